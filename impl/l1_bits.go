@@ -111,7 +111,7 @@ func DivWords(a uint32, b uint32, mode int) uint32 {
 	case x == floatNought || y == floatInfinite:
 		return sign
 	}
-	return roundExact(quotientOf(a, b), wordForm, mode)
+	return roundExact(quotientOf(exactOf(a, wordForm), exactOf(b, wordForm)), wordForm, mode)
 }
 
 func FuseWords(a uint32, b uint32, c uint32, mode int) uint32 {
@@ -271,10 +271,11 @@ func productOf(a uint32, b uint32) exact {
 	return exact{negative: x.negative != y.negative, size: x.size * y.size, power: x.power + y.power}
 }
 
-// quotientOf lifts what is divided: its quotient then has more bits than any
-// rounding keeps, so that more tells all that is left.
-func quotientOf(a uint32, b uint32) exact {
-	x, y := liftTo(exactOf(a, wordForm), 62), exactOf(b, wordForm)
+// quotientOf: of two that are not 0, y of at most 30 bits. It lifts what is
+// divided: its quotient then has more bits than any rounding keeps, so that
+// more tells all that is left.
+func quotientOf(x exact, y exact) exact {
+	x = liftTo(x, 62)
 	return exact{
 		negative: x.negative != y.negative,
 		size:     x.size / y.size,
