@@ -316,6 +316,32 @@ func (s *scene) newName() string {
 	return "q" + s.plain(6)
 }
 
+// outcomeOf: an operation of a letter with at least so many operands.
+func (c chance) outcomeOf(letter byte, least int) outcome {
+	var l []outcome
+	for _, o := range outcomes {
+		if o.letter == letter && len(o.operands) >= least {
+			l = append(l, o)
+		}
+	}
+	return l[c.Intn(len(l))]
+}
+
+// applied: an operation with an operand for each of its letters.
+func (o outcome) applied(operand func(letter byte) tree) tree {
+	t := tree{kind: impl.NBinary, text: o.text}
+	switch {
+	case isCall(o.text):
+		t.kind = impl.NCall
+	case len(o.operands) == 1:
+		t.kind = impl.NUnary
+	}
+	for i := range len(o.operands) {
+		t.kids = append(t.kids, operand(o.operands[i]))
+	}
+	return t
+}
+
 // leafOf: an expression of a letter without operands.
 func (s *scene) leafOf(letter byte) tree {
 	name, ok := s.named(func(k known) bool { return k.letter == letter && k.maker <= impl.NFloatIn })
@@ -346,24 +372,8 @@ func (s *scene) of(letter byte, n int) tree {
 			return tree{impl.NLoad, name, []tree{s.of('i', n-1)}}
 		}
 	}
-	var l []outcome
-	for _, o := range outcomes {
-		if o.letter == letter {
-			l = append(l, o)
-		}
-	}
-	o := l[s.Intn(len(l))]
-	t := tree{kind: impl.NBinary, text: o.text}
-	switch {
-	case isCall(o.text):
-		t.kind = impl.NCall
-	case len(o.operands) == 1:
-		t.kind = impl.NUnary
-	}
-	for i := range len(o.operands) {
-		t.kids = append(t.kids, s.of(o.operands[i], (n-1)/len(o.operands)))
-	}
-	return t
+	o := s.outcomeOf(letter, 0)
+	return o.applied(func(letter byte) tree { return s.of(letter, (n-1)/len(o.operands)) })
 }
 
 func (s *scene) anyLetter() byte { return typeLetters[1+s.Intn(3)] }
