@@ -398,6 +398,20 @@ func TestListsThatAreNoOneExpression(t *testing.T) {
 	noConst(t, []impl.Node{{}})
 }
 
+// Signs that may not stand there, with operands of every type.
+func TestSignsThatMayNotStand(t *testing.T) {
+	for _, operand := range nodesOf("1 1 0, 2 0.5 0, 3 true 0") {
+		for _, sign := range slices.Concat(wrongTexts, brokenRunes, []string{"--", "!!", "- ", " !"}) {
+			if sign != "-" && sign != "!" {
+				noConst(t, []impl.Node{{Kind: impl.NUnary, Text: sign, Kids: 1}, operand})
+			}
+			if !slices.Contains(betweenSigns, sign) {
+				noConst(t, []impl.Node{{Kind: impl.NBinary, Text: sign, Kids: 2}, operand, operand})
+			}
+		}
+	}
+}
+
 // sumOfOnes: a sum of so many ones, of 2 n - 1 nodes.
 func sumOfOnes(n int) tree {
 	t := tree{kind: impl.NWhole, text: "1"}
