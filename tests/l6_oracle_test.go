@@ -236,15 +236,20 @@ func worth(t tree) (byte, uint32) {
 	case impl.NBool:
 		return 'b', wordOf(t.text == "true")
 	}
-	letter := wantOutcome(t.text, letters)
+	return worthOf(t.kind, t.text, letters, words)
+}
+
+// worthOf: the same of an operation, by the letters and words of its operands.
+func worthOf(node int, text, letters string, words []uint32) (byte, uint32) {
+	letter := wantOutcome(text, letters)
 	if letter == '-' {
 		return '-', 0
 	}
-	if t.kind == impl.NUnary {
+	if node == impl.NUnary {
 		return letter, wantAhead(letter, words[0])
 	}
 	kind := strings.IndexByte(typeLetters, letters[0])
-	if strings.Contains(letters, "f") || t.text == "fma" || t.text == "sqrt" {
+	if strings.Contains(letters, "f") || text == "fma" || text == "sqrt" {
 		kind = impl.TFloat
 		for i := range words {
 			if letters[i] == 'i' {
@@ -252,10 +257,10 @@ func worth(t tree) (byte, uint32) {
 			}
 		}
 	}
-	if t.kind == impl.NCall {
-		return letter, wantCall(t.text, kind, words)
+	if node == impl.NCall {
+		return letter, wantCall(text, kind, words)
 	}
-	return letter, wantOp(t.text, kind, words[0], words[1])
+	return letter, wantOp(text, kind, words[0], words[1])
 }
 
 // wantAhead: the one sign ahead that what is of a letter may have.
