@@ -456,8 +456,34 @@ func overwrite(l [][]uint32) {
 	}
 }
 
-// Promise 25: no buffer that is answered shares its memory with one that was
+// newBuffersOf: no buffer that a run answers shares its memory with one that was
 // given, with another one of the answer, or with one of another answer.
+func newBuffersOf(t *testing.T, x impl.Launch, run func(impl.Launch) impl.Ran) {
+	t.Helper()
+	kept := keptLaunch(x)
+	want, got, again := run(x), run(kept), run(kept)
+	for i := range got.Buffers {
+		others := slices.Concat(got.Buffers[:i], got.Buffers[i+1:])
+		was := flat(others)
+		overwrite(got.Buffers[i : i+1])
+		if !slices.Equal(flat(others), was) {
+			t.Errorf("buffer %d of what %v leaves shares its memory with another one", i, x)
+		}
+	}
+	clear(got.Buffers[:cap(got.Buffers)])
+	if !sameRan(again, want) || !launchUnchanged(kept, x) {
+		t.Errorf("what %v leaves shares its memory", x)
+	}
+	if third := run(kept); !sameRan(third, want) {
+		t.Errorf("%v leaves %v, and then %v", x, want, third)
+	}
+	overwrite(kept.Buffers)
+	if !sameRan(again, want) {
+		t.Errorf("what %v leaves is that which was given", x)
+	}
+}
+
+// Promise 25: buffers that are answered are new memory.
 func TestPromise25NewBuffers(t *testing.T) {
 	c := newChance(162)
 	for n := range 200 {
@@ -466,33 +492,11 @@ func TestPromise25NewBuffers(t *testing.T) {
 		if n%4 == 0 { // all buffers are one list: what is answered is not
 			x.Buffers = [][]uint32{x.Buffers[0], x.Buffers[0], x.Buffers[0], x.Buffers[0]}
 		}
-		kept := keptLaunch(x)
-		want := impl.RunKernel(l, x)
-		for _, run := range []func() impl.Ran{
-			func() impl.Ran { return impl.RunKernel(l, kept) },
-			func() impl.Ran { return impl.RunInOrder(l, kept, upTo(x.Groups), upTo(x.Size)) },
+		for _, run := range []func(impl.Launch) impl.Ran{
+			func(x impl.Launch) impl.Ran { return impl.RunKernel(l, x) },
+			func(x impl.Launch) impl.Ran { return impl.RunInOrder(l, x, upTo(x.Groups), upTo(x.Size)) },
 		} {
-			got, again := run(), run()
-			for i := range got.Buffers {
-				others := slices.Concat(got.Buffers[:i], got.Buffers[i+1:])
-				was := flat(others)
-				overwrite(got.Buffers[i : i+1])
-				if !slices.Equal(flat(others), was) {
-					t.Errorf("buffer %d of %v shares its memory with another one", i, l)
-				}
-			}
-			clear(got.Buffers[:cap(got.Buffers)])
-			if !sameRan(again, want) || !launchUnchanged(kept, x) {
-				t.Errorf("what %v leaves shares its memory", l)
-			}
-			if third := run(); !sameRan(third, want) {
-				t.Errorf("%v leaves %v, and then %v", l, want, third)
-			}
-			overwrite(kept.Buffers)
-			if !sameRan(again, want) {
-				t.Errorf("what %v leaves is that which was given", l)
-			}
-			overwrite(kept.Buffers)
+			newBuffersOf(t, x, run)
 		}
 	}
 	empty := make([]uint32, 3)
