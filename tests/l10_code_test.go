@@ -470,27 +470,32 @@ func TestRunsOfAnyCode(t *testing.T) {
 	}
 }
 
+// oneWrong: a launch, or code, with one thing of it changed, but for some.
+func (c chance) oneWrong(l []impl.Instr, x impl.Launch) ([]impl.Instr, impl.Launch) {
+	switch c.Intn(8) {
+	case 0:
+		x.Groups = wrongInts[c.Intn(len(wrongInts))]
+	case 1:
+		x.Size = wrongInts[c.Intn(len(wrongInts))]
+	case 2:
+		x.Words = c.words(14 + c.Intn(5))
+	case 3:
+		x.Buffers = slices.Repeat([][]uint32{{1, 2, 3}}, 14+c.Intn(5))
+	case 4:
+		x.Buffers = append(x.Buffers, c.words(62+c.Intn(5)))
+	case 5:
+		at := c.Intn(len(l))
+		l[at] = c.changedInstr(l[at], len(l))
+	}
+	return l, x
+}
+
 // Launches with one thing changed, and code that is not good.
 func TestLaunchesForCodeByChance(t *testing.T) {
 	c := newChance(179)
 	bad := 0
 	for range 1500 {
-		l, x := c.walkable(1+c.Intn(6)), c.codeLaunch()
-		switch c.Intn(8) {
-		case 0:
-			x.Groups = wrongInts[c.Intn(len(wrongInts))]
-		case 1:
-			x.Size = wrongInts[c.Intn(len(wrongInts))]
-		case 2:
-			x.Words = c.words(14 + c.Intn(5))
-		case 3:
-			x.Buffers = slices.Repeat([][]uint32{{1, 2, 3}}, 14+c.Intn(5))
-		case 4:
-			x.Buffers = append(x.Buffers, c.words(62+c.Intn(5)))
-		case 5:
-			at := c.Intn(len(l))
-			l[at] = c.changedInstr(l[at], len(l))
-		}
+		l, x := c.oneWrong(c.walkable(1+c.Intn(6)), c.codeLaunch())
 		if heldRanCode(t, l, x).Code == impl.RunBad {
 			bad++
 		}

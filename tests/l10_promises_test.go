@@ -188,9 +188,9 @@ func (c chance) anyInstr() impl.Instr {
 	return impl.Instr{Op: some(15), D: some(3), A: some(3), B: some(3), C: some(3), Word: [...]uint32{c.Uint32(), uint32(c.Intn(130)), uint32(c.Intn(4))}[c.Intn(3)]}
 }
 
-// Promise 25: instructions with fields of any kind, alone and among others.
-func TestPromise25AnyInstructions(t *testing.T) {
-	c := newChance(186)
+// anyInstrs: lists of instructions with fields of any kind, alone and among
+// others, and launches for them.
+func (c chance) anyInstrs(look func([]impl.Instr, impl.Launch)) {
 	for n := range 6000 {
 		var l []impl.Instr
 		for range 1 + n%4 {
@@ -199,18 +199,23 @@ func TestPromise25AnyInstructions(t *testing.T) {
 		if n%2 == 0 {
 			l = append(l, impl.Instr{Op: impl.IEnd})
 		}
-		heldCode(t, l)
-		heldRanCode(t, l, impl.Launch{Groups: 1, Size: 2, Buffers: [][]uint32{{1, 2, 3}}})
+		look(l, impl.Launch{Groups: 1, Size: 2, Buffers: [][]uint32{{1, 2, 3}}})
 	}
 	for _, value := range wrongInts {
 		for op := range 15 {
 			for _, field := range fieldNames {
-				l := []impl.Instr{withField(impl.Instr{Op: op}, field, value), {Op: impl.IEnd}}
-				heldCode(t, l)
-				heldRanCode(t, l, launchOf(3, 2))
+				look([]impl.Instr{withField(impl.Instr{Op: op}, field, value), {Op: impl.IEnd}}, launchOf(3, 2))
 			}
 		}
 	}
+}
+
+// Promise 25: instructions with fields of any kind.
+func TestPromise25AnyInstructions(t *testing.T) {
+	newChance(186).anyInstrs(func(l []impl.Instr, x impl.Launch) {
+		heldCode(t, l)
+		heldRanCode(t, l, x)
+	})
 }
 
 // Promise 25: no code at all, and far too much of it.
@@ -277,15 +282,20 @@ func TestPromise25NoKernelsAreCompiled(t *testing.T) {
 	}
 }
 
-// Promise 25: launches of any kind for code.
-func TestPromise25LaunchesForCode(t *testing.T) {
-	l := instrs("in 0 0 | in 1 4 | load 2 0 0 | store 0 1 0 | barrier | load 2 0 15 | store 0 2 1 | end")
-	for _, x := range []impl.Launch{
+// oddLaunches: of any kind.
+func oddLaunches() []impl.Launch {
+	return []impl.Launch{
 		{}, {Groups: 1}, {Size: 1}, {Groups: 1, Size: 1}, {Groups: 1, Size: 1, Buffers: [][]uint32{nil}}, {Groups: 4, Size: 8, Buffers: make([][]uint32, 16), Words: make([]uint32, 16)},
 		{Groups: 1, Size: 1, Words: make([]uint32, 1<<20)}, {Groups: 1, Size: 1, Buffers: make([][]uint32, 1<<20)},
 		{Groups: 1, Size: 1, Buffers: [][]uint32{nil, make([]uint32, 1<<20)}},
 		{Groups: math.MaxInt64, Size: math.MaxInt64}, {Groups: math.MinInt64, Size: math.MinInt64}, {Groups: 1 << 32, Size: 1 << 32}, {Groups: 1<<32 + 1, Size: 1<<32 + 1}, {Groups: -1, Size: -1}, {Groups: 1, Size: math.MaxInt64}, {Groups: math.MaxInt64, Size: 1},
-	} {
+	}
+}
+
+// Promise 25: launches of any kind for code.
+func TestPromise25LaunchesForCode(t *testing.T) {
+	l := instrs("in 0 0 | in 1 4 | load 2 0 0 | store 0 1 0 | barrier | load 2 0 15 | store 0 2 1 | end")
+	for _, x := range oddLaunches() {
 		got := heldRanCode(t, l, x)
 		if bad := !wantCodeLaunch(x); bad != (got.Code == impl.RunBad) {
 			t.Errorf("%v with %v", got, x)

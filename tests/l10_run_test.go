@@ -172,7 +172,9 @@ func isBad(t *testing.T, x impl.Launch, want bool) {
 	heldRanCode(t, instrs("end"), x)
 }
 
-func TestLaunchesForCode(t *testing.T) {
+// launchesForCode: launches at and beyond each limit, and whether they are bad.
+func launchesForCode(t *testing.T, isBad func(*testing.T, impl.Launch, bool)) {
+	t.Helper()
 	for groups := -2; groups <= 10; groups++ {
 		for size := -2; size <= 12; size++ {
 			isBad(t, impl.Launch{Groups: groups, Size: size}, groups < 1 || groups > 4 || size < 1 || size > 8)
@@ -194,6 +196,10 @@ func TestLaunchesForCode(t *testing.T) {
 			isBad(t, x, count > 64)
 		}
 	}
+}
+
+func TestLaunchesForCode(t *testing.T) {
+	launchesForCode(t, isBad)
 }
 
 // Code that is not good is bad whatever the launch, and the other way round.
