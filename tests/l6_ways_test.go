@@ -8,8 +8,8 @@ import (
 	"testing"
 )
 
-// How chapter 6 is built: its table of operations stands, init fills it, and an
-// exported function reads it.
+// How chapter 6 is built: its table of operations stands, init fills it, and OpWords
+// alone reads it; all others work their answers out by functions.
 
 // functionsOf: the bodies of the functions of package impl, by their names; of
 // several with one name, as of init, all of them.
@@ -76,5 +76,15 @@ func TestTableOfOperations(t *testing.T) {
 	}
 	if readers == 0 {
 		t.Error("no exported function reads the table")
+	}
+}
+
+// No other function names the table, or OpWords, by which it would be read.
+func TestOnlyOpWordsReadsTheTable(t *testing.T) {
+	for name, bodies := range functionsOf(t) {
+		named, _ := namedIn(bodies)
+		if named["operations"] != (name == "OpWords") || named["OpWords"] {
+			t.Errorf("%s reads the table of operations, or OpWords does not", name)
+		}
 	}
 }
