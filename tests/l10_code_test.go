@@ -127,6 +127,7 @@ func (c chance) someCount() int {
 }
 
 func TestCodeByChance(t *testing.T) {
+	t.Parallel()
 	c := newChance(170)
 	for range 400 {
 		if l := c.code(c.someCount()); !heldCode(t, l) {
@@ -147,6 +148,7 @@ func (c chance) changedInstr(i impl.Instr, count int) impl.Instr {
 }
 
 func TestCodeWithOneChange(t *testing.T) {
+	t.Parallel()
 	c := newChance(171)
 	good := 0
 	for n := range 4000 {
@@ -167,6 +169,7 @@ func TestCodeWithOneChange(t *testing.T) {
 
 // Every two ops, the second one as the last.
 func TestEveryTwoOps(t *testing.T) {
+	t.Parallel()
 	c := newChance(172)
 	for first := range 15 {
 		for last := range 15 {
@@ -221,6 +224,7 @@ func (c chance) changedText(text string) string {
 }
 
 func TestTextsOfCodeByChance(t *testing.T) {
+	t.Parallel()
 	c := newChance(173)
 	good := 0
 	for n := range 3000 {
@@ -263,6 +267,7 @@ func (c chance) changedBytes(data []byte) []byte {
 }
 
 func TestBytesOfCodeByChance(t *testing.T) {
+	t.Parallel()
 	c := newChance(174)
 	good := 0
 	for n := range 3000 {
@@ -300,6 +305,7 @@ func (c chance) someKernel(n int) []impl.Node {
 }
 
 func TestKernelsAreCompiled(t *testing.T) {
+	t.Parallel()
 	c := newChance(175)
 	done := [14]int{}
 	for n := range 700 {
@@ -319,6 +325,7 @@ func TestKernelsAreCompiled(t *testing.T) {
 }
 
 func TestKernelsWithFaultsAreNotCompiled(t *testing.T) {
+	t.Parallel()
 	c := newChance(176)
 	good := 0
 	for n := range 600 {
@@ -338,6 +345,7 @@ func TestKernelsWithFaultsAreNotCompiled(t *testing.T) {
 
 // Every operation at operands of every row of types.
 func TestEveryOperationIsCompiled(t *testing.T) {
+	t.Parallel()
 	forms := map[rune][]string{'i': {"n", "a [ 1 ]", "- 7"}, 'f': {"f", "b [ 1 ]", "- 0.5"}, 'b': {"true", "! ( n < f )"}}
 	for _, text := range slices.Concat(betweenSigns, wantCalls, []string{"-", "!"}) {
 		counts := []int{2}
@@ -431,6 +439,7 @@ func (c chance) smallWords(n int) []uint32 {
 }
 
 func TestRunsOfCodeByChance(t *testing.T) {
+	t.Parallel()
 	c := newChance(177)
 	codes, passed, done := [4]int{}, 0, [14]int{}
 	for n := range 2500 {
@@ -460,6 +469,7 @@ func TestRunsOfCodeByChance(t *testing.T) {
 
 // Code of any kind goes round, or ends.
 func TestRunsOfAnyCode(t *testing.T) {
+	t.Parallel()
 	c := newChance(178)
 	codes := [4]int{}
 	for n := range 60 {
@@ -492,6 +502,7 @@ func (c chance) oneWrong(l []impl.Instr, x impl.Launch) ([]impl.Instr, impl.Laun
 
 // Launches with one thing changed, and code that is not good.
 func TestLaunchesForCodeByChance(t *testing.T) {
+	t.Parallel()
 	c := newChance(179)
 	bad := 0
 	for range 1500 {
@@ -507,6 +518,7 @@ func TestLaunchesForCodeByChance(t *testing.T) {
 
 // What kernels become does what the other way does with it.
 func TestRunsOfCompiledKernels(t *testing.T) {
+	t.Parallel()
 	c := newChance(180)
 	codes := [4]int{}
 	for n := range 150 {

@@ -38,6 +38,7 @@ func compiled(t *testing.T, source, want string) {
 }
 
 func TestParametersBecomeRegisters(t *testing.T) {
+	t.Parallel()
 	compiled(t, "kernel k ( ) { }", "end\n")
 	compiled(t, "kernel k ( int n ) { }", "in 0 4\nend\n")
 	compiled(t, "kernel k ( float n ) { }", "in 0 4\nend\n")
@@ -50,6 +51,7 @@ func TestParametersBecomeRegisters(t *testing.T) {
 }
 
 func TestNumbersBecomeConstants(t *testing.T) {
+	t.Parallel()
 	becomes(t, "let x = 0 ;", "const 2 0 | move 3 2")
 	becomes(t, "let x = 2147483647 ;", "const 2 2147483647 | move 3 2")
 	becomes(t, "let x = 0.0 ;", "const 2 0 | move 3 2")
@@ -63,6 +65,7 @@ func TestNumbersBecomeConstants(t *testing.T) {
 // `-` of whole numbers has its nought ahead of the operand's instructions and
 // registers.
 func TestSignsAheadAreCompiled(t *testing.T) {
+	t.Parallel()
 	becomes(t, "let x = - n ;", "const 2 0 | op 3 2 0 41 | move 4 3")
 	becomes(t, "let x = - 7 ;", "const 2 0 | const 3 7 | op 4 2 3 41 | move 5 4")
 	becomes(t, "let x = - - 7 ;", "const 2 0 | const 3 0 | const 4 7 | op 5 3 4 41 | op 6 2 5 41 | move 7 6")
@@ -78,6 +81,7 @@ func TestSignsAheadAreCompiled(t *testing.T) {
 
 // The number of a sign is that in the whole list.
 func TestSignsAreCompiled(t *testing.T) {
+	t.Parallel()
 	for sign, word := range map[string]int{"!=": 5, "%": 9, "&": 13, "*": 29, "+": 33, "-": 41, "/": 49, "<": 61, "<<": 65, "<=": 69, "==": 77, ">": 81, ">=": 85, ">>": 89, "^": 101, "|": 109} {
 		becomes(t, "let x = n "+sign+" n ;", "op 2 0 0 "+strconv.Itoa(word)+" | move 3 2")
 		if !strings.Contains("% & << >> ^ |", sign) {
@@ -93,6 +97,7 @@ func TestSignsAreCompiled(t *testing.T) {
 
 // What is made a float is made one right ahead of the instruction that wants it.
 func TestWholesBecomeFloats(t *testing.T) {
+	t.Parallel()
 	becomes(t, "let x = n + f ;", "call 2 0 0 0 5 | op 3 2 1 34 | move 4 3")
 	becomes(t, "let x = f + n ;", "call 2 0 0 0 5 | op 3 1 2 34 | move 4 3")
 	becomes(t, "let x = 1 + 0.5 ;", "const 2 1 | const 3 1056964608 | call 4 2 0 0 5 | op 5 4 3 34 | move 6 5")
@@ -116,6 +121,7 @@ func TestWholesBecomeFloats(t *testing.T) {
 }
 
 func TestCallsAreCompiled(t *testing.T) {
+	t.Parallel()
 	becomes(t, "let x = tid ( ) + local ( ) + group ( ) + size ( ) ;", "in 2 0 | in 3 1 | op 4 2 3 33 | in 5 2 | op 6 4 5 33 | in 7 3 | op 8 6 7 33 | move 9 8")
 	becomes(t, "let x = abs ( n ) ;", "call 2 0 0 0 1 | move 3 2")
 	becomes(t, "let x = abs ( f ) ;", "call 2 1 0 0 2 | move 3 2")
@@ -133,6 +139,7 @@ func TestCallsAreCompiled(t *testing.T) {
 }
 
 func TestLoadsAndStoresAreCompiled(t *testing.T) {
+	t.Parallel()
 	becomes(t, "a [ n ] = n ;", "store 0 0 0")
 	becomes(t, "b [ n ] = f ;", "store 0 1 1")
 	becomes(t, "a [ a [ n ] ] = a [ a [ 0 ] ] ;", "load 2 0 0 | const 3 0 | load 4 3 0 | load 5 4 0 | store 2 5 0")
@@ -141,6 +148,7 @@ func TestLoadsAndStoresAreCompiled(t *testing.T) {
 }
 
 func TestIfsAreCompiled(t *testing.T) {
+	t.Parallel()
 	becomes(t, "if true { }", "const 2 1 | zero 2 4 4")
 	becomes(t, "if true { } else { }", "const 2 1 | zero 2 5 5 | jump 5")
 	becomes(t, "if n < 3 { a [ n ] = n ; }", "const 2 3 | op 3 0 2 61 | zero 3 6 6 | store 0 0 0")
@@ -156,6 +164,7 @@ func TestIfsAreCompiled(t *testing.T) {
 }
 
 func TestLoopsAreCompiled(t *testing.T) {
+	t.Parallel()
 	becomes(t, "for i in 0 .. n { }", "const 2 0 | move 3 2 | move 4 0 | op 5 3 4 61 | zero 5 11 11 | const 6 1 | op 7 3 6 33 | move 3 7 | jump 5")
 	becomes(t, "for i in n .. 5 { }", "move 2 0 | const 3 5 | move 4 3 | op 5 2 4 61 | zero 5 11 11 | const 6 1 | op 7 2 6 33 | move 2 7 | jump 5")
 	becomes(t, "for i in n .. n { a [ i ] = i ; } a [ n ] = n ;", "move 2 0 | move 3 0 | op 4 2 3 61 | zero 4 11 11 | store 2 2 0 | const 5 1 | op 6 2 5 33 | move 2 6 | jump 4 | store 0 0 0")
@@ -167,6 +176,7 @@ func TestLoopsAreCompiled(t *testing.T) {
 
 // Names of one text in several blocks have registers of their own.
 func TestNamesOfOneTextAreCompiled(t *testing.T) {
+	t.Parallel()
 	becomes(t, "if true { let x = n ; x = x ; } else { let x = f ; x = x ; } let x = n ; x = x ;", "const 2 1 | zero 2 7 9 | move 3 0 | move 3 3 | jump 9 | move 4 1 | move 4 4 | move 5 0 | move 5 5")
 	becomes(t, "for x in n .. n { let y = x ; } for x in n .. n { let y = x ; }", "move 2 0 | move 3 0 | op 4 2 3 61 | zero 4 11 11 | move 5 2 | const 6 1 | op 7 2 6 33 | move 2 7 | jump 4 | move 8 0 | move 9 0 | op 10 8 9 61 | zero 10 20 20 | move 11 8 | const 12 1 | op 13 8 12 33 | move 8 13 | jump 13")
 	becomes(t, "if true { let y = n ; } let x = f ; if true { let y = x ; x = y ; } x = f ;", "const 2 1 | zero 2 5 5 | move 3 0 | move 4 1 | const 5 1 | zero 5 10 10 | move 6 4 | move 4 6 | move 4 1")
@@ -175,6 +185,7 @@ func TestNamesOfOneTextAreCompiled(t *testing.T) {
 }
 
 func TestBarriersAreCompiled(t *testing.T) {
+	t.Parallel()
 	becomes(t, "barrier ;", "barrier")
 	becomes(t, "barrier ; a [ n ] = n ; barrier ; barrier ;", "barrier | store 0 0 0 | barrier | barrier")
 }
@@ -188,6 +199,7 @@ func notCompiled(t *testing.T, l []impl.Node) {
 }
 
 func TestKernelsWithoutTypesAreNotCompiled(t *testing.T) {
+	t.Parallel()
 	for _, fault := range faultyStatements {
 		l := impl.ReadKernel(given(fault.text)).Nodes
 		if len(l) == 0 {
@@ -218,6 +230,7 @@ func kernelOfMany(counts ...any) []impl.Node {
 // 10 instructions, a choice by a bool 1 and 2, a name that is given a number 2 and
 // 2, a barrier none and 1.
 func TestRegistersAtTheirLimit(t *testing.T) {
+	t.Parallel()
 	loop, let, choice := "for i in 0 .. 0 { }", "if true { let x = 1 ; }", "if true { }"
 	for _, at := range []struct {
 		l    []impl.Node
@@ -253,6 +266,7 @@ func TestRegistersAtTheirLimit(t *testing.T) {
 // three of each NFor, and the last one write a new one. So no kernel of 250 nodes
 // has more than 591 instructions beside 400 registers.
 func TestCodeAtItsLimit(t *testing.T) {
+	t.Parallel()
 	loop := "for i in 0 .. 0 { }"
 	for code, l := range map[int][]impl.Node{
 		591: kernelOfMany(57, loop, 20, "barrier ;"),
@@ -274,6 +288,7 @@ func TestCodeAtItsLimit(t *testing.T) {
 
 // Kernels with as many nodes, and as deep, as they may be.
 func TestGreatestKernelsAreCompiled(t *testing.T) {
+	t.Parallel()
 	l := kernelWith(t, given("a [ - 0 ] = n"+strings.Repeat(" + n", 120)+" ;"))
 	code, ok := heldCompiled(t, l)
 	if !ok || len(l) != impl.MaxNodes || len(code) != 2+3+120+1+1 || impl.RegsOf(code) != 2+3+120 {

@@ -64,6 +64,7 @@ func goodAhead(t *testing.T, i impl.Instr, others int, want bool) {
 }
 
 func TestOpsByTheirNumbers(t *testing.T) {
+	t.Parallel()
 	got := []int{impl.IConst, impl.IMove, impl.IOp, impl.ICall, impl.IIn, impl.ILoad, impl.IStore, impl.IJump, impl.IZero, impl.IBarrier, impl.IEnd, impl.INot, impl.INeg}
 	if !slices.Equal(got, upTo(14)[1:]) || impl.MaxCode != 600 || impl.MaxRegs != 400 || impl.MaxCodeSteps != 100000 || impl.RunStuck != 3 {
 		t.Errorf("ops %v", got)
@@ -92,6 +93,7 @@ func plainInstr(op int) impl.Instr {
 
 // Each field that an op names, at and beyond both ends.
 func TestFieldsAtTheirEnds(t *testing.T) {
+	t.Parallel()
 	ends := map[string][]int{"register": {0, 1, 398, 399}, "constant": {0, 1, 999, 1000, 1 << 31, math.MaxUint32}, "given": {0, 1, 998, 999}}
 	beyond := map[string][]int{"register": {-1, -2, 400, 401, 599, 600, 999, 1 << 32, -1 << 32, math.MinInt64, math.MaxInt64}, "given": {1000, 1001, 1 << 16, 1 << 31, math.MaxUint32}}
 	for op := 1; op <= 13; op++ {
@@ -119,6 +121,7 @@ func TestFieldsAtTheirEnds(t *testing.T) {
 
 // Each field that an op does not name is 0.
 func TestFieldsThatAreNotNamed(t *testing.T) {
+	t.Parallel()
 	tried := 0
 	for op := 1; op <= 13; op++ {
 		goodAhead(t, plainInstr(op), 1, true)
@@ -144,6 +147,7 @@ func TestFieldsThatAreNotNamed(t *testing.T) {
 
 // IOp: the signs with a strength, of kinds 1 to 3.
 func TestWordsOfSigns(t *testing.T) {
+	t.Parallel()
 	strong := []int{1, 2, 3, 4, 7, 8, 10, 12, 15, 16, 17, 19, 20, 21, 22, 25, 27, 28}
 	for word := range 140 {
 		goodAhead(t, impl.Instr{Op: impl.IOp, Word: uint32(word)}, 1, slices.Contains(strong, word/4) && word%4 != 0)
@@ -156,6 +160,7 @@ func TestWordsOfSigns(t *testing.T) {
 // ICall: the calls with operands, of kinds 1 and 2; operands that a call does not
 // have are 0.
 func TestWordsOfCalls(t *testing.T) {
+	t.Parallel()
 	arity := map[int]int{0: 1, 1: 1, 2: 3, 4: 1, 6: 2, 7: 2, 9: 1}
 	for word := range 60 {
 		good := arity[word/4] > 0 && (word%4 == 1 || word%4 == 2)
@@ -176,6 +181,7 @@ func TestWordsOfCalls(t *testing.T) {
 
 // A constant may be any word: floats are constants, too.
 func TestConstantsOfCode(t *testing.T) {
+	t.Parallel()
 	for _, word := range []uint32{0, 1, 999, 1000, 1065353216, 1 << 31, impl.TheNaN, math.MaxUint32} {
 		l := []impl.Instr{{Op: impl.IConst, D: 3, Word: word}, {Op: impl.IConst, D: 2}, {Op: impl.IStore, A: 2, B: 3}, {Op: impl.IEnd}}
 		isGood(t, l, true)
@@ -186,6 +192,7 @@ func TestConstantsOfCode(t *testing.T) {
 }
 
 func TestHowManyInstructions(t *testing.T) {
+	t.Parallel()
 	isGood(t, nil, false)
 	isGood(t, []impl.Instr{}, false)
 	for _, count := range []int{1, 2, 599, 600} {
@@ -198,6 +205,7 @@ func TestHowManyInstructions(t *testing.T) {
 }
 
 func TestTheLastInstruction(t *testing.T) {
+	t.Parallel()
 	for op := 1; op <= 13; op++ {
 		last := plainInstr(op)
 		want := op == impl.IEnd || op == impl.IJump
@@ -216,6 +224,7 @@ func TestTheLastInstruction(t *testing.T) {
 
 // One that is not as said, wherever it stands.
 func TestOneThatIsNotAsSaid(t *testing.T) {
+	t.Parallel()
 	for at := range 6 {
 		l := instrs("in 0 0 | const 1 2 | op 2 0 1 33 | zero 2 5 5 | jump 0 | end")
 		isGood(t, l, true)
@@ -235,6 +244,7 @@ func reads(t *testing.T, text string, want ...int) {
 }
 
 func TestReadsOfEveryOp(t *testing.T) {
+	t.Parallel()
 	reads(t, "const 3 7")
 	reads(t, "move 3 7", 7)
 	reads(t, "op 3 7 5 33", 5, 7)
@@ -263,6 +273,7 @@ func TestReadsOfEveryOp(t *testing.T) {
 }
 
 func TestReadsOfRegistersNamedTwice(t *testing.T) {
+	t.Parallel()
 	reads(t, "move 7 7", 7)
 	reads(t, "op 7 7 7 33", 7)
 	reads(t, "op 7 7 3 33", 3, 7)
@@ -281,6 +292,7 @@ func TestReadsOfRegistersNamedTwice(t *testing.T) {
 
 // Of one that is not as said none; numbers may be those of any code.
 func TestReadsOfWhatIsNotAsSaid(t *testing.T) {
+	t.Parallel()
 	reads(t, "zero 7 599 599", 7)
 	reads(t, "zero 7 0 599", 7)
 	for _, text := range []string{"zero 7 600 0", "zero 7 0 600", "zero 7 -1 0", "zero 7 0 -1", "zero 400 0 0", "zero -1 0 0", "move 400 7", "move 7 400", "move -1 7", "move 7 -1", "op 1 2 3 32", "op 1 2 3 0", "op 1 2 3 1", "op 1 2 3 73", "op 1 2 3 121", "op 1 2 400 33", "op 1 400 2 33", "op 400 1 2 33", "call 1 2 3 0 1", "call 1 2 0 3 1", "call 1 2 0 3 25", "call 1 2 3 4 13", "call 1 2 3 4 8", "call 1 2 3 4 11", "call 1 0 0 0 41", "call 1 0 0 0 45", "load 1 2 1000", "load 1 -2 1", "store 1 2 1000", "store 1 400 0", "not 1 400", "not 400 1", "neg 1 400", "neg 400 1", "neg 1 -1"} {
@@ -304,6 +316,7 @@ func TestReadsOfWhatIsNotAsSaid(t *testing.T) {
 }
 
 func TestRegistersOfCode(t *testing.T) {
+	t.Parallel()
 	for text, want := range map[string]int{
 		"end": 0, "jump 0": 0, "jump 1 | end": 0, "barrier | barrier | end": 0,
 		"const 0 7 | end": 1, "const 399 7 | end": 400, "move 3 5 | end": 6, "move 5 3 | end": 6,
@@ -328,6 +341,7 @@ func TestRegistersOfCode(t *testing.T) {
 
 // Every op's text and bytes.
 func TestTextAndBytesOfEveryOp(t *testing.T) {
+	t.Parallel()
 	text := "const 399 4294967295\nmove 1 2\nop 3 4 5 33\ncall 6 7 8 9 10\ncall 6 7 0 0 5\nin 10 999\nload 11 12 13\nstore 14 15 16\njump 9\nzero 17 599 18\nbarrier\nend\nnot 19 20\nneg 21 300\n"
 	text += strings.Repeat("end\n", 600-14)
 	l := instrs(text)
@@ -381,6 +395,7 @@ func notRead(t *testing.T, texts ...string) {
 }
 
 func TestTextsOfNoCode(t *testing.T) {
+	t.Parallel()
 	notRead(t, "", "\n", " ", "end", "end\r\n", "end\n\n", "\nend\n", "end \n", " end\n", "end\nend", "END\n", "End\n", "ends\n", "en\n", "stop\n", "0\n", "11\n", "end 0\n", "end\x00\n", "end\n\x00", "barrier\n", "jump 0 \n", "jump  0\n", "jump\t0\n", "jump\n", "jump 0 0\n", "jump 00\n", "jump +0\n", "jump -0\n", "jump 0.0\n", "jump x\n", "jump 1\n", "jump -1\n", "jump 0\njump 2\n", "jump 0x0\n", "jump 0_0\n", "jump \n", "jump 0\n0\n", "jump\n0\n", "jump 18446744073709551616\n", "jump 4294967296\n", "jump ٠\n", "jump 0")
 	for _, line := range []string{"const 0", "const 0 0 0", "const 0  0", "const 01 0", "const 0 00", "const 0 +1", "const 0 -1", "const -1 0", "const 400 0", "const 0 4294967296", "const 0 18446744073709551616", "const 0 1e1", "const 0 1.0", "const 0 0 ", "const 0, 0", "const\t0 0", "constant 0 0", "cons 0 0", " 0 0", "0 0", "", " ", "const", "// x", "move 0", "move 0 0 0", "move 0 400", "move 0 01", "op 0 0 0", "op 0 0 0 0", "op 0 0 0 33 0", "op 0 0 0 1000", "call 0 0 1", "call 0 0 0 0 0 1", "call 0 0 1", "call 0 0 0 1", "call 0 0 1 0 1", "call 0 0 0 1 1", "call 0 0 0 0 13", "in 0", "in 0 1000", "in 0 04", "load 0 0", "load 0 0 1000", "load 0 0 0 0", "store 0 0", "store 0 0 1000", "store 0 0 0 0", "jump", "jump 2", "jump 0 0", "zero 0 0", "zero 0 0 2", "zero 0 2 0", "zero 0 0 0 0", "barrier 0", "end 0", "not 0", "not 0 0 0", "neg 0", "neg 0 0 0", "neg 0 400"} {
 		notRead(t, line+"\nend\n")
@@ -412,6 +427,7 @@ const everyOp = "const 1 1065353216 | move 2 1 | op 3 1 2 34 | call 4 1 2 3 10 |
 // Bytes cut off at every place, and with bytes behind them; with the Crc as it
 // was, and as it would be.
 func TestBytesCutOff(t *testing.T) {
+	t.Parallel()
 	for _, text := range []string{everyOp, "end", "jump 0", "end | end | end"} {
 		data, ok := impl.EncodeCode(instrs(text))
 		if !ok || !heldDecoded(t, data) {
@@ -433,6 +449,7 @@ func TestBytesCutOff(t *testing.T) {
 
 // Bytes of code that is not good, with the Crc that they would have.
 func TestBytesOfCodeThatIsNotGood(t *testing.T) {
+	t.Parallel()
 	for _, text := range []string{"barrier", "const 0 0", "end | barrier", "const 400 0 | end", "const 65535 0 | end", "jump 1", "jump 65535", "zero 0 2 0 | end", "zero 0 0 2 | end", "zero 400 0 0 | end", "op 0 0 0 32 | end", "op 0 0 0 1 | end", "op 0 0 0 1000 | end", "call 0 0 1 0 1 | end", "call 0 0 0 1 25 | end", "call 0 0 0 0 13 | end", "call 0 0 0 0 3 | end", "in 0 1000 | end", "in 0 4294967295 | end", "load 0 0 1000 | end", "load 0 400 0 | end", "store 0 0 1000 | end", "store 0 400 0 | end", "not 0 400 | end", "neg 400 0 | end", "move 0 400 | end"} {
 		isGood(t, instrs(text), false)
 		notDecoded(t, withCrc(bytesOfCode(instrs(text))))

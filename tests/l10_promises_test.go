@@ -30,6 +30,7 @@ func sameAsCode(t *testing.T, l []impl.Node, x impl.Launch) (int, int) {
 
 // Promise 10: the code does what the kernel does.
 func TestPromise10CodeDoesWhatTheKernelDoes(t *testing.T) {
+	t.Parallel()
 	c := newChance(181)
 	both, changed := [3][3]int{}, 0
 	for n := range 1200 {
@@ -51,6 +52,7 @@ func TestPromise10CodeDoesWhatTheKernelDoes(t *testing.T) {
 
 // Promise 10: what stands in each statement, at operands of each sort.
 func TestPromise10EveryStatement(t *testing.T) {
+	t.Parallel()
 	for _, text := range []string{"7", "- 7", "n", "- n", "n + 2 * 3", "n - 1 - 2", "a [ 1 ]", "a [ n ]", "tid ( )", "local ( ) - 3", "group ( )", "size ( )", "n / 0", "n % - 2", "n << 33", "- n >> 1", "n & 3 | 8 ^ 2", "abs ( - n )", "min ( n , 2 )", "max ( n , tid ( ) )", "int ( 2.5 )", "int ( - f )", "int ( b [ 2 ] )", "2147483647 + n", "- 2147483647 - n"} {
 		for _, form := range []string{"a [ 0 ] = # ;", "a [ # ] = 7 ;", "b [ 1 ] = # ;", "let x = # ; x = x * 2 ; a [ 2 ] = x ;", "let x = 0.5 ; x = # ; b [ 0 ] = x / 2 ;", "for i in # .. ( # ) + 2 { a [ i ] = i ; }", "for i in 0 .. ( # ) % 5 { a [ tid ( ) ] = a [ tid ( ) ] * 3 + i ; }", "if ( # ) < 2 && 1 == 1 { a [ 1 ] = 1 ; } else { a [ 2 ] = 1 ; }", "if ! ( ( # ) == n ) { a [ 1 ] = 1 ; }", "a [ 3 ] = a [ ( # ) - 1 ] ;", "b [ 2 ] = fma ( # , 1.5 , f ) ;", "b [ 0 ] = - ( ( # ) + f ) ;", "b [ 0 ] = sqrt ( # ) ; b [ 1 ] = float ( # ) ;", "b [ 1 ] = min ( f , # ) ;", "a [ tid ( ) ] = # ; barrier ; a [ 3 - tid ( ) ] = a [ tid ( ) ] + ( # ) ;"} {
 			l := kernelWith(t, given(strings.ReplaceAll(form, "#", text)))
@@ -65,6 +67,7 @@ func TestPromise10EveryStatement(t *testing.T) {
 
 // Promise 10: words of any sort go through code bit by bit.
 func TestPromise10AnyWords(t *testing.T) {
+	t.Parallel()
 	c := newChance(182)
 	l := kernelWith(t, given("let x = f ; b [ 0 ] = x ; x = b [ 1 ] ; b [ 2 ] = x ; b [ 3 ] = - x ; b [ 4 ] = x + f ; b [ 5 ] = x * f ; b [ 6 ] = x / f ; b [ 7 ] = abs ( x ) ; b [ 8 ] = min ( x , f ) ; b [ 9 ] = max ( x , f ) ; b [ 10 ] = sqrt ( x ) ; b [ 11 ] = fma ( x , f , n ) ; b [ 12 ] = float ( x ) ; b [ 13 ] = n ; a [ 0 ] = int ( x ) ; if x < f { a [ 1 ] = 1 ; } if x == f { a [ 2 ] = 1 ; } if x != f { a [ 3 ] = 1 ; } if x >= n { a [ 4 ] = 1 ; } let p = x <= f ; p = ! p ; if p { a [ 5 ] = 1 ; }"))
 	odd := []uint32{0, 1 << 31, impl.TheNaN, 0x7f800001, 0xffc00000, 0xffffffff, 0x7f800000, 0xff800000, 1, 0x80000001, 0x7f7fffff, 0x3f800000}
@@ -84,6 +87,7 @@ func TestPromise10AnyWords(t *testing.T) {
 // Promise 10: a run of the kernel that ends may be too long as code, and the
 // other way round.
 func TestPromise10OneOfTwoIsTooLong(t *testing.T) {
+	t.Parallel()
 	long := "a [ 0 ] = n" + strings.Repeat(" + n", 110) + " ;"
 	l := kernelWith(t, given("for i in 0 .. 1000 { "+long+" }"))
 	if of, by := sameAsCode(t, l, around(1, 1, 0)); of != 0 || by != impl.RunSteps {
@@ -119,6 +123,7 @@ func codeComesBack(t *testing.T, l []impl.Instr) (string, []byte) {
 
 // Promise 10: code comes back from its text and its bytes.
 func TestPromise10CodeComesBack(t *testing.T) {
+	t.Parallel()
 	c := newChance(183)
 	texts := map[string]string{}
 	for n := range 1500 {
@@ -137,6 +142,7 @@ func TestPromise10CodeComesBack(t *testing.T) {
 
 // Promise 10: with any one bit turned bytes are none of any code.
 func TestPromise10OneBitTurned(t *testing.T) {
+	t.Parallel()
 	c := newChance(184)
 	codes := [][]impl.Instr{instrs("end"), instrs("jump 0"), instrs(everyOp), c.code(40), c.code(600)}
 	for n := range 40 {
@@ -164,6 +170,7 @@ func TestPromise10OneBitTurned(t *testing.T) {
 
 // Promise 10: code that came back does the same.
 func TestPromise10ComesBackAndDoesTheSame(t *testing.T) {
+	t.Parallel()
 	c := newChance(185)
 	for n := range 200 {
 		l, x := c.walkable(1+n%40), c.codeLaunch()
@@ -212,6 +219,7 @@ func (c chance) anyInstrs(look func([]impl.Instr, impl.Launch)) {
 
 // Promise 25: instructions with fields of any kind.
 func TestPromise25AnyInstructions(t *testing.T) {
+	t.Parallel()
 	newChance(186).anyInstrs(func(l []impl.Instr, x impl.Launch) {
 		heldCode(t, l)
 		heldRanCode(t, l, x)
@@ -220,6 +228,7 @@ func TestPromise25AnyInstructions(t *testing.T) {
 
 // Promise 25: no code at all, and far too much of it.
 func TestPromise25NoCode(t *testing.T) {
+	t.Parallel()
 	for _, l := range [][]impl.Instr{nil, {}, {{}}, slices.Repeat([]impl.Instr{{}}, 600), slices.Repeat(instrs("end"), 601), slices.Repeat(instrs("end"), 1<<20)} {
 		if text, ok := impl.CodeText(l); ok || text != "" {
 			t.Errorf("CodeText of %d: %q", len(l), text)
@@ -238,6 +247,7 @@ func TestPromise25NoCode(t *testing.T) {
 
 // Promise 25: trees that are no good kernel, and kernels with one change.
 func TestPromise25NoKernelsAreCompiled(t *testing.T) {
+	t.Parallel()
 	l := impl.ReadKernel(typedAll).Nodes
 	if _, ok := heldCompiled(t, l); !ok {
 		t.Fatal("all of it has no code")
@@ -294,6 +304,7 @@ func oddLaunches() []impl.Launch {
 
 // Promise 25: launches of any kind for code.
 func TestPromise25LaunchesForCode(t *testing.T) {
+	t.Parallel()
 	l := instrs("in 0 0 | in 1 4 | load 2 0 0 | store 0 1 0 | barrier | load 2 0 15 | store 0 2 1 | end")
 	for _, x := range oddLaunches() {
 		got := heldRanCode(t, l, x)
@@ -306,6 +317,7 @@ func TestPromise25LaunchesForCode(t *testing.T) {
 
 // Promise 25: texts and bytes of any kind.
 func TestPromise25AnyTextsAndBytes(t *testing.T) {
+	t.Parallel()
 	c := newChance(188)
 	for _, text := range slices.Concat(wrongTexts, brokenRunes, wholeRunes, notTokens()) {
 		for _, form := range []string{"#", "#\n", "#\nend\n", "end\n#\n", "jump #\n", "const 0 #\nend\n", "const # 0\nend\n", "# 0\nend\n", "end\n#"} {
@@ -346,6 +358,7 @@ func TestPromise25AnyTextsAndBytes(t *testing.T) {
 // Promise 25: nothing is written into code, bytes and launches, and no answer
 // shares their memory.
 func TestPromise25CodeIsKept(t *testing.T) {
+	t.Parallel()
 	c := newChance(189)
 	for n := range 300 {
 		l, x := c.walkable(1+n%40), c.codeLaunch()
@@ -379,6 +392,7 @@ func TestPromise25CodeIsKept(t *testing.T) {
 
 // Promise 25: buffers that are answered are new memory.
 func TestPromise25NewBuffersOfCode(t *testing.T) {
+	t.Parallel()
 	c := newChance(190)
 	for n := range 200 {
 		l, x := c.walkable(1+n%40), c.codeLaunch()
@@ -398,6 +412,7 @@ func TestPromise25NewBuffersOfCode(t *testing.T) {
 
 // Promise 25: what lies behind the lengths of lists is not looked at.
 func TestPromise25BehindCode(t *testing.T) {
+	t.Parallel()
 	c := newChance(191)
 	for n := range 300 {
 		l, x := c.walkable(1+n%40), c.codeLaunch()
@@ -419,6 +434,7 @@ func TestPromise25BehindCode(t *testing.T) {
 
 // Promise 25: answers hang on what is given alone, whatever was asked between.
 func TestPromise25CodeAgain(t *testing.T) {
+	t.Parallel()
 	c := newChance(192)
 	for n := range 60 {
 		kernel := c.someKernel(n)

@@ -53,6 +53,7 @@ func makes(t *testing.T, text string, want uint32) {
 }
 
 func TestWhatEachOpMakes(t *testing.T) {
+	t.Parallel()
 	makes(t, "barrier", 0)
 	makes(t, "const 9 7", 7)
 	makes(t, "const 9 4294967295", math.MaxUint32)
@@ -89,6 +90,7 @@ func TestWhatEachOpMakes(t *testing.T) {
 }
 
 func TestNotAndNeg(t *testing.T) {
+	t.Parallel()
 	for word, want := range map[uint32]uint32{0: 1, 1: 0, 2: 1, 3: 0, 1 << 31: 1, 1<<31 + 1: 0, math.MaxUint32: 0, math.MaxUint32 - 1: 1} {
 		makes(t, "const 1 "+strconv.Itoa(int(word))+" | not 9 1", want)
 	}
@@ -99,6 +101,7 @@ func TestNotAndNeg(t *testing.T) {
 
 // Each thread's own numbers, and the words of a launch.
 func TestWhatIsGiven(t *testing.T) {
+	t.Parallel()
 	store := " | store 0 1 0 | end"
 	does(t, spread(2, 3, 9, 9, 9, 9, 9, 9, 9), "in 0 0 | in 1 0"+store, "0 1 2 3 4 5 9 | 24")
 	does(t, spread(2, 3, 9, 9, 9, 9, 9, 9, 9), "in 0 0 | in 1 1"+store, "0 1 2 0 1 2 9 | 24")
@@ -124,6 +127,7 @@ func TestWhatIsGiven(t *testing.T) {
 
 // Places that are not there: nothing is written, 0 is read.
 func TestPlacesOfCodeThatAreNotThere(t *testing.T) {
+	t.Parallel()
 	for _, place := range []uint32{3, 4, 63, 64, 65, 1 << 16, 1<<31 - 1, 1 << 31, math.MaxUint32, math.MaxUint32 - 1} {
 		at := strconv.Itoa(int(place))
 		does(t, spread(1, 1, 5, 6, 7), "const 0 "+at+" | const 1 9 | store 0 1 0 | end", "5 6 7 | 4")
@@ -139,6 +143,7 @@ func TestPlacesOfCodeThatAreNotThere(t *testing.T) {
 
 // Buffers that are not there, and each of sixteen that is.
 func TestBuffersOfCode(t *testing.T) {
+	t.Parallel()
 	for count := range 17 {
 		x := impl.Launch{Groups: 1, Size: 1}
 		for i := range count {
@@ -199,11 +204,13 @@ func launchesForCode(t *testing.T, isBad func(*testing.T, impl.Launch, bool)) {
 }
 
 func TestLaunchesForCode(t *testing.T) {
+	t.Parallel()
 	launchesForCode(t, isBad)
 }
 
 // Code that is not good is bad whatever the launch, and the other way round.
 func TestRunsThatAreBad(t *testing.T) {
+	t.Parallel()
 	for _, text := range []string{"barrier", "const 0 0", "jump 1", "end | barrier", "const 400 0 | end", "zero 0 2 0 | end", "op 0 0 0 0 | end"} {
 		for _, x := range []impl.Launch{{}, spread(1, 1), spread(4, 8, 1, 2), spread(5, 1), spread(1, 9)} {
 			does(t, x, text, "RunBad")
@@ -217,6 +224,7 @@ func TestRunsThatAreBad(t *testing.T) {
 }
 
 func TestJumps(t *testing.T) {
+	t.Parallel()
 	does(t, spread(1, 1, 0), "jump 2 | end | const 1 7 | store 0 1 0 | jump 1", "7 | 5")
 	does(t, spread(1, 1, 0), "const 1 7 | zero 1 3 3 | store 0 1 0 | end", "7 | 4")
 	does(t, spread(1, 1, 0), "const 1 7 | zero 2 3 3 | store 0 1 0 | end", "0 | 3")
@@ -229,6 +237,7 @@ func TestJumps(t *testing.T) {
 
 // Registers are 0 at first in each thread, and its own.
 func TestRegistersOfThreads(t *testing.T) {
+	t.Parallel()
 	does(t, spread(2, 2, 0, 0, 0, 0), "in 0 0 | const 2 5 | op 1 1 2 33 | store 0 1 0 | end", "5 5 5 5 | 20")
 	does(t, spread(1, 3, 0, 0, 0), "in 0 0 | op 1 0 0 33 | barrier | store 0 1 0 | end", "0 2 4 | 15")
 	does(t, spread(2, 2, 9, 9, 9, 9), "in 0 0 | store 0 399 0 | const 399 1 | end", "0 0 0 0 | 16")
@@ -236,6 +245,7 @@ func TestRegistersOfThreads(t *testing.T) {
 
 // Threads of a group go on from their barrier when all have come to it.
 func TestBarriersOfCode(t *testing.T) {
+	t.Parallel()
 	// each thread reads what the one behind it wrote
 	ring := "in 0 0 | in 1 1 | const 2 1 | op 3 1 2 33 | in 4 3 | op 3 3 4 9 | in 5 2 | op 5 5 4 29 | op 3 5 3 33 | op 6 0 2 33 | store 0 6 0 | %s | load 7 3 0 | %s | store 0 7 0 | end"
 	with := func(a, b string) string { return strings.Replace(strings.Replace(ring, "%s", a, 1), "%s", b, 1) }
@@ -252,6 +262,7 @@ func TestBarriersOfCode(t *testing.T) {
 
 // Threads part on their way, but come to one barrier.
 func TestBarriersThatAllComeTo(t *testing.T) {
+	t.Parallel()
 	does(t, spread(1, 4, 0, 0, 0, 0), "in 0 0 | zero 0 3 3 | const 1 5 | barrier | store 0 1 0 | end", "0 5 5 5 | 23")
 	does(t, spread(1, 2, 0, 0), "in 0 0 | zero 0 4 4 | const 1 5 | jump 5 | const 1 6 | barrier | store 0 1 0 | end", "6 5 | 13")
 	// to unlike ends: these are ends all the same
@@ -260,6 +271,7 @@ func TestBarriersThatAllComeTo(t *testing.T) {
 }
 
 func TestThreadsThatGetStuck(t *testing.T) {
+	t.Parallel()
 	// a barrier that some pass by
 	does(t, spread(1, 2, 0, 0), "in 0 0 | zero 0 3 3 | barrier | end", "RunStuck")
 	does(t, spread(1, 2, 0, 0), "in 0 0 | not 0 0 | zero 0 4 4 | barrier | end", "RunStuck")
@@ -282,6 +294,7 @@ func TestThreadsThatGetStuck(t *testing.T) {
 
 // Of several codes the one that is met first.
 func TestTheCodeThatIsMetFirst(t *testing.T) {
+	t.Parallel()
 	// thread 0 waits, thread 1 ends, thread 2 would go round: stuck ahead of that
 	does(t, spread(1, 3), "in 0 0 | zero 0 5 5 | const 1 2 | op 1 0 1 77 | zero 1 6 7 | barrier | end | jump 7", "RunStuck")
 	// thread 0 waits, thread 1 goes round, thread 2 would end
@@ -297,6 +310,7 @@ func TestTheCodeThatIsMetFirst(t *testing.T) {
 }
 
 func TestCodeThatGoesRound(t *testing.T) {
+	t.Parallel()
 	for _, text := range []string{"jump 0", "barrier | jump 0", "move 0 0 | jump 0", "zero 0 0 1 | end", "in 0 0 | store 0 0 0 | jump 1", "jump 1 | jump 0", "end | jump 1 | jump 0"} {
 		for _, x := range []impl.Launch{spread(1, 1), spread(4, 8, 1, 2, 3), spread(1, 8)} {
 			want := "RunSteps"
@@ -320,6 +334,7 @@ func counting(lines string, steps int) string {
 
 // Just as many steps as there may be, and one more.
 func TestStepsAtTheirLimit(t *testing.T) {
+	t.Parallel()
 	for steps, want := range map[int]string{20: "5 | 20", 21: "5 | 21", 22: "5 | 22", 99999: "5 | 99999", 100000: "5 | 100000", 100001: "RunSteps", 100002: "RunSteps"} {
 		does(t, spread(1, 1, 5), counting("", steps)+"end", want)
 		does(t, spread(1, 1, 5), counting("", steps-1)+"barrier | end", want)
@@ -338,6 +353,7 @@ func TestStepsAtTheirLimit(t *testing.T) {
 // Thread 0 ends, thread 1 comes to a barrier: stuck, where that is a step that may
 // still be taken.
 func TestStuckAtTheLastStep(t *testing.T) {
+	t.Parallel()
 	part := func(steps int, more string) string {
 		text := counting("in 7 0 | ", steps)
 		end := strconv.Itoa(strings.Count(text+more, "|") + 2)

@@ -13,6 +13,7 @@ import (
 // variable that start-up fills by a call.
 
 func TestOpsAreCountedByIota(t *testing.T) {
+	t.Parallel()
 	file := parsedCode(t)
 	counted := []string{}
 	for _, d := range file.Decls {
@@ -34,6 +35,7 @@ func TestOpsAreCountedByIota(t *testing.T) {
 }
 
 func TestFieldsByASwitchThatFallsThrough(t *testing.T) {
+	t.Parallel()
 	falls := 0
 	ast.Inspect(parsedCode(t), func(n ast.Node) bool {
 		s, ok := n.(*ast.SwitchStmt)
@@ -57,6 +59,7 @@ func TestFieldsByASwitchThatFallsThrough(t *testing.T) {
 }
 
 func TestNamesOfOpsAreFilledAtStart(t *testing.T) {
+	t.Parallel()
 	filled := map[string]bool{}
 	for _, d := range parsedCode(t).Decls {
 		group, ok := d.(*ast.GenDecl)

@@ -76,6 +76,7 @@ func warps(t *testing.T, x impl.Launch, text, want string) {
 // Each op that writes a register, with all lanes on, with some, with one and with
 // none; lanes below a bound, or those from it on.
 func TestOpsWithSomeLanesOn(t *testing.T) {
+	t.Parallel()
 	forms := map[string]func(lane uint32) uint32{
 		"const 9 7":       func(uint32) uint32 { return 7 },
 		"move 9 0":        func(lane uint32) uint32 { return lane },
@@ -129,6 +130,7 @@ func TestOpsWithSomeLanesOn(t *testing.T) {
 
 // Of several lanes that write one word the last one is left.
 func TestLanesWriteInOrder(t *testing.T) {
+	t.Parallel()
 	warps(t, spread(1, 8, 9), "in 0 1 | store 4 0 0 | end", "7 | 3 24 1")
 	warps(t, spread(1, 1, 9), "in 0 1 | store 4 0 0 | end", "0 | 3 3 1")
 	warps(t, spread(4, 3, 9), "in 0 0 | store 4 0 0 | end", "11 | 12 36 1")
@@ -142,6 +144,7 @@ func TestLanesWriteInOrder(t *testing.T) {
 // Where all lanes have 0, where none has, and where they part: the others go
 // first, then those that have 0, then all from the join on.
 func TestLanesThatPart(t *testing.T) {
+	t.Parallel()
 	choice := "const 6 1 | in 0 1 | %s | zero 1 @b @c | log 1 | jump @c | b: log 2 | c: log 3 | end"
 	with := func(line string) string { return strings.Replace(choice, "%s", line, 1) }
 	warps(t, spread(1, 3, 0, 0, 0, 0, 0), with("const 1 0"), "2 2 3 0 0 | 15 45 1, 3 1 0")
@@ -167,6 +170,7 @@ func TestLanesThatPart(t *testing.T) {
 // B and C at one number, C right behind the IZero, both there, and C at the IZero
 // itself.
 func TestJoinsNearTheirZero(t *testing.T) {
+	t.Parallel()
 	warps(t, spread(1, 3, 0, 0, 0, 0), "const 6 1 | in 0 1 | zero 0 @c @c | log 1 | c: log 3 | end", "2 1 3 0 | 14 37 3, 2 1 1")
 	warps(t, spread(1, 3, 0, 0, 0, 0), "const 6 1 | in 0 1 | zero 0 @b @c | c: log 3 | end | b: log 2 | jump @c", "2 2 3 0 | 15 33 2, 2 1 1")
 	warps(t, spread(1, 3, 0, 0, 0, 0), "const 6 1 | in 0 1 | zero 0 @c @c | c: log 3 | end", "1 3 0 0 | 9 27 1, 2 1 1")
@@ -180,6 +184,7 @@ func TestJoinsNearTheirZero(t *testing.T) {
 // The last instruction may be the join, and an entry that meets its join is not
 // issued there.
 func TestEntriesAtTheirJoin(t *testing.T) {
+	t.Parallel()
 	warps(t, spread(1, 2, 0), "in 0 1 | zero 0 @c @c | jump @c | c: end", "0 | 4 7 3, 1 1 1")
 	warps(t, spread(1, 2, 0), "in 0 1 | zero 0 @b @c | jump @c | b: move 1 1 | c: end", "0 | 5 8 3, 1 1 1")
 	// one that goes over its join
@@ -193,6 +198,7 @@ func TestEntriesAtTheirJoin(t *testing.T) {
 // Lanes that end are taken out of all entries: in the one entry, in the other one,
 // in both, and within entries that lie on others.
 func TestLanesThatEndApart(t *testing.T) {
+	t.Parallel()
 	begin := "const 6 1 | const 8 2 | in 0 1 | op 1 0 8 13 | op 2 0 6 13 | "
 	warps(t, spread(1, 3, 0, 0, 0, 0, 0), "const 6 1 | in 0 1 | zero 0 @b @c | log 1 | end | b: log 2 | c: log 3 | end", "3 1 2 3 0 | 20 32 3, 2 1 1")
 	warps(t, spread(1, 3, 0, 0, 0, 0, 0), "const 6 1 | in 0 1 | zero 0 @b @c | log 1 | jump @c | b: log 2 | end | c: log 3 | end", "3 1 2 3 0 | 21 39 3, 2 1 1")
@@ -214,6 +220,7 @@ func TestLanesThatEndApart(t *testing.T) {
 
 // Lanes leave a loop one after the other, and wait for the last one.
 func TestLoopsThatLanesLeave(t *testing.T) {
+	t.Parallel()
 	loop := "const 6 1 | in 0 %s | z: zero 0 @c @c | op 0 0 6 41 | log 1 | jump @z | c: log 3 | end"
 	by := func(word string) string { return strings.Replace(loop, "%s", word, 1) }
 	warps(t, spread(1, 3, 0, 0, 0, 0, 0), by("1"), "3 1 1 3 0 | 25 51 5, 2 3 2")
@@ -235,6 +242,7 @@ func TestLoopsThatLanesLeave(t *testing.T) {
 // The most entries that there can be: each time lanes part there are two more,
 // and the topmost one has fewer lanes.
 func TestMostEntries(t *testing.T) {
+	t.Parallel()
 	for size := 1; size <= 8; size++ {
 		got, branches := heldWarps(t, instrs(linked("in 0 1 | const 6 1 | z: zero 0 @c @c | op 0 0 6 41 | jump @z | c: end")), spread(1, size))
 		if got.Code != 0 || got.Deepest != 2*size-1 || !slices.Equal(branches, []impl.Branch{{At: 2, Taken: size, Split: size - 1}}) {
@@ -249,6 +257,7 @@ func TestMostEntries(t *testing.T) {
 }
 
 func TestBarriersOfWarps(t *testing.T) {
+	t.Parallel()
 	warps(t, spread(1, 8), "barrier | end", " | 2 16 1")
 	warps(t, spread(1, 1), "barrier | barrier | barrier | end", " | 4 4 1")
 	warps(t, spread(4, 2), "barrier | end", " | 8 16 1")
@@ -264,6 +273,7 @@ func TestBarriersOfWarps(t *testing.T) {
 }
 
 func TestBarriersWhereLanesHaveEnded(t *testing.T) {
+	t.Parallel()
 	warps(t, spread(1, 3), "in 0 1 | zero 0 @b @c | end | b: move 1 1 | c: barrier | end", " | 6 11 3, 1 1 1")
 	warps(t, spread(1, 3), "in 0 1 | zero 0 @c @c | end | c: barrier | end", " | 5 10 3, 1 1 1")
 	warps(t, spread(1, 3), "in 0 1 | zero 0 @b @c | jump @c | b: end | c: barrier | end", " | 6 13 3, 1 1 1")
@@ -274,6 +284,7 @@ func TestBarriersWhereLanesHaveEnded(t *testing.T) {
 }
 
 func TestWarpsThatGetStuck(t *testing.T) {
+	t.Parallel()
 	warps(t, spread(1, 2), "in 0 1 | zero 0 @c @c | barrier | c: end", "RunStuck")
 	warps(t, spread(1, 1), "in 0 1 | zero 0 @c @c | barrier | c: end", " | 3 3 1, 1 1 0")
 	warps(t, spread(1, 2), "in 0 1 | zero 0 @b @c | jump @c | b: barrier | c: end", "RunStuck")
@@ -292,6 +303,7 @@ func TestWarpsThatGetStuck(t *testing.T) {
 }
 
 func TestWarpsThatGoRound(t *testing.T) {
+	t.Parallel()
 	for _, text := range []string{"jump 0", "barrier | jump 0", "move 0 0 | jump 0", "zero 0 0 1 | end", "zero 0 0 0 | end", "in 0 0 | store 0 0 0 | jump 1", "jump 1 | jump 0"} {
 		for _, x := range []impl.Launch{spread(1, 1), spread(4, 3, 1, 2, 3), spread(1, 2)} {
 			warps(t, x, text, "RunSteps")
@@ -306,6 +318,7 @@ func TestWarpsThatGoRound(t *testing.T) {
 // Of several codes the one that is met first: the others go ahead of those that
 // have 0.
 func TestTheCodeOfWarpsThatIsMetFirst(t *testing.T) {
+	t.Parallel()
 	warps(t, spread(1, 2), "in 0 1 | zero 0 @b @c | r: jump @r | b: barrier | c: end", "RunSteps")
 	warps(t, spread(1, 2), "in 0 1 | zero 0 @b @c | barrier | b: jump @b | c: end", "RunStuck")
 	warps(t, spread(1, 2), "in 0 1 | zero 0 @b @c | jump @c | b: barrier | c: jump @c", "RunStuck")
@@ -320,6 +333,7 @@ func TestTheCodeOfWarpsThatIsMetFirst(t *testing.T) {
 
 // Just as many issues as there may be, and one more, however many lanes are on.
 func TestIssuesAtTheirLimit(t *testing.T) {
+	t.Parallel()
 	for issues, want := range map[int]string{20: "5 | 20 %d 1", 99999: "5 | 99999 %d 1", 100000: "5 | 100000 %d 1", 100001: "RunSteps", 100002: "RunSteps"} {
 		for _, size := range []int{1, 3} {
 			told := func(at, taken int) string {
@@ -353,6 +367,7 @@ func parted(issues int, more string) string {
 // A barrier where it is not allowed, as the last issue that there may be; an entry
 // that is taken away is no issue.
 func TestStuckAtTheLastIssue(t *testing.T) {
+	t.Parallel()
 	warps(t, spread(1, 2), parted(99998, "barrier | "), "RunStuck")
 	warps(t, spread(1, 2), parted(99999, "barrier | "), "RunStuck") // at issue 100000
 	warps(t, spread(1, 2), parted(100000, "barrier | "), "RunSteps")
@@ -369,6 +384,7 @@ func TestStuckAtTheLastIssue(t *testing.T) {
 // Groups go one after the other: what one leaves in the buffers the next one
 // finds, but no registers; the numbers of all add up, the most entries do not.
 func TestGroupsOfWarps(t *testing.T) {
+	t.Parallel()
 	warps(t, spread(1, 2, 0), "const 6 1 | load 1 4 0 | op 1 1 6 33 | store 4 1 0 | end", "1 | 5 10 1")
 	warps(t, spread(4, 2, 0), "const 6 1 | load 1 4 0 | op 1 1 6 33 | store 4 1 0 | end", "4 | 20 40 1")
 	warps(t, spread(4, 2, 0), "const 6 1 | op 1 1 6 33 | store 4 1 0 | end", "1 | 16 32 1")
@@ -390,6 +406,7 @@ func TestGroupsOfWarps(t *testing.T) {
 
 // Words, buffers and places that are not there: 0 is read, nothing is written.
 func TestWhatIsNotThereForWarps(t *testing.T) {
+	t.Parallel()
 	for count := range 17 {
 		x := spread(1, 2, 9, 9)
 		x.Words = slices.Repeat(wholes(7), count)
@@ -436,11 +453,13 @@ func badForWarps(t *testing.T, x impl.Launch, want bool) {
 }
 
 func TestLaunchesForWarps(t *testing.T) {
+	t.Parallel()
 	launchesForCode(t, badForWarps)
 }
 
 // Code that is not good is bad whatever the launch.
 func TestWarpsThatAreBad(t *testing.T) {
+	t.Parallel()
 	for _, text := range []string{"barrier", "const 0 0", "jump 1", "end | barrier", "const 400 0 | end", "zero 0 2 0 | end", "zero 0 0 2 | end", "zero 400 0 0 | end", "op 0 0 0 0 | end", "jump 0 | zero 0 0 0"} {
 		for _, x := range []impl.Launch{{}, spread(1, 1), spread(4, 8, 1, 2), spread(5, 1), spread(1, 9)} {
 			warps(t, x, text, "RunBad")
@@ -467,6 +486,7 @@ func branches(t *testing.T, x impl.Launch, text string, wantOk bool, want ...imp
 }
 
 func TestBranchesOfRuns(t *testing.T) {
+	t.Parallel()
 	branches(t, spread(1, 1), "end", true)
 	branches(t, spread(4, 8), "move 0 0 | barrier | end", true)
 	branches(t, spread(1, 2), "jump @e | zero 0 0 0 | e: end", true) // never issued
@@ -504,6 +524,7 @@ func fine(t *testing.T, want bool, texts ...string) {
 }
 
 func TestJoinsOfCodeThatIsNotGood(t *testing.T) {
+	t.Parallel()
 	fine(t, false, "barrier", "move 0 0", "jump 1", "jump -1", "zero 0 1 1 | barrier", "zero 0 2 2 | end", "zero 0 1 2 | end", "zero 400 1 1 | end", "zero -1 1 1 | end", "const 400 0 | end", "end | zero 0 1 1")
 	for _, l := range [][]impl.Instr{nil, {}, {{}}, slices.Repeat(instrs("end"), 601), append(instrs("zero 0 1 1"), slices.Repeat(instrs("end"), 600)...)} {
 		if heldJoins(t, l) {
@@ -519,11 +540,13 @@ func TestJoinsOfCodeThatIsNotGood(t *testing.T) {
 
 // Code without an IZero is fine, wherever it jumps.
 func TestJoinsWithoutZeros(t *testing.T) {
+	t.Parallel()
 	fine(t, true, "end", "jump 0", "jump 1 | jump 0", "jump 2 | end | jump 0", "barrier | end", everyOp)
 }
 
 // B and C behind the IZero, B not behind C.
 func TestWhereBAndCMayBe(t *testing.T) {
+	t.Parallel()
 	for b := range 6 {
 		for c := range 6 {
 			text := "move 0 0 | move 0 0 | zero 0 " + strconv.Itoa(b) + " " + strconv.Itoa(c) + " | move 0 0 | move 0 0 | end"
@@ -540,6 +563,7 @@ func TestWhereBAndCMayBe(t *testing.T) {
 // An IJump between the IZero at number 2 and C, number 6, from each place to
 // each.
 func TestJumpsInBetween(t *testing.T) {
+	t.Parallel()
 	for from := 3; from < 6; from++ {
 		for to := range 9 {
 			l := instrs("move 0 0 | move 0 0 | zero 0 6 6 | move 0 0 | move 0 0 | move 0 0 | move 0 0 | move 0 0 | end")
@@ -558,6 +582,7 @@ func TestJumpsInBetween(t *testing.T) {
 // An IZero between the IZero at number 2 and C, number 6: its B and C are at most
 // there, and behind itself.
 func TestZerosInBetween(t *testing.T) {
+	t.Parallel()
 	for from := 3; from < 6; from++ {
 		for b := range 9 {
 			for c := range 9 {
@@ -574,6 +599,7 @@ func TestZerosInBetween(t *testing.T) {
 // An IJump from elsewhere, ahead of the IZero at number 2, at C, number 6, and
 // behind it, to each number: it may not lead in.
 func TestJumpsFromElsewhere(t *testing.T) {
+	t.Parallel()
 	for _, from := range []int{0, 1, 6, 7, 8} {
 		for to := range 9 {
 			l := instrs("move 0 0 | move 0 0 | zero 0 5 6 | move 0 0 | move 0 0 | move 0 0 | move 0 0 | move 0 0 | end")
@@ -588,6 +614,7 @@ func TestJumpsFromElsewhere(t *testing.T) {
 // An IZero from elsewhere: it may lead over all of it, or to its beginning or its
 // end.
 func TestZerosFromElsewhere(t *testing.T) {
+	t.Parallel()
 	for b := range 9 {
 		for c := range 9 {
 			l := instrs("zero 0 1 1 | move 0 0 | zero 0 5 6 | move 0 0 | move 0 0 | move 0 0 | move 0 0 | move 0 0 | end")
@@ -607,6 +634,7 @@ func TestZerosFromElsewhere(t *testing.T) {
 
 // The jump of a loop: right ahead of C, to the IZero or to what stands ahead.
 func TestJumpsOfLoops(t *testing.T) {
+	t.Parallel()
 	fine(t, true, "z: zero 0 @c @c | move 0 0 | jump @z | c: end", "l: move 0 0 | zero 0 @c @c | jump @l | c: end", "l: move 0 0 | move 0 0 | zero 0 @c @c | jump @l | c: end")
 	fine(t, false, "z: zero 0 @c @c | jump @z | move 0 0 | c: end", "l: move 0 0 | zero 0 @c @c | jump @l | barrier | c: end")
 	// C is the jump itself, or the one behind it
@@ -629,6 +657,7 @@ func TestJumpsOfLoops(t *testing.T) {
 
 // Kernels of each form become code that is fine.
 func TestJoinsOfKernels(t *testing.T) {
+	t.Parallel()
 	for _, statements := range []string{
 		"", "if n == 0 { }", "if n == 0 { } else { }", "if n == 0 { if n == 1 { } }", "if n == 0 { if n == 1 { } else { } } else { if n == 2 { } else { } }",
 		"for i in 0 .. 3 { }", "for i in 0 .. n { for j in 0 .. i { } }", "for i in 0 .. n { if i == 1 { } }", "for i in 0 .. n { if i == 1 { } else { } }", "if n == 0 { for i in 0 .. n { } }", "if n == 0 { for i in 0 .. n { } } else { for i in 0 .. n { } }",

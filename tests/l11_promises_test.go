@@ -39,6 +39,7 @@ func sameByWarps(t *testing.T, l []impl.Node, x impl.Launch) (bool, int) {
 
 // Promise 11: of drawn kernels and launches without races.
 func TestPromise11WarpsLeaveWhatThreadsLeave(t *testing.T) {
+	t.Parallel()
 	c := newChance(210)
 	tried, changed, deep := 0, 0, [16]int{}
 	for n := range 1500 {
@@ -65,6 +66,7 @@ func TestPromise11WarpsLeaveWhatThreadsLeave(t *testing.T) {
 
 // Promise 11: choices and loops of each form, at lanes that part in every way.
 func TestPromise11EveryForm(t *testing.T) {
+	t.Parallel()
 	parts := 0
 	for _, condition := range []string{"tid ( ) == 0", "local ( ) != 0", "local ( ) < 2", "local ( ) % 2 == 0", "local ( ) >= size ( ) - 1", "n == 5", "n != 5", "a [ tid ( ) ] < 3", "b [ 0 ] < float ( tid ( ) )"} {
 		for _, form := range []string{
@@ -96,6 +98,7 @@ func TestPromise11EveryForm(t *testing.T) {
 // Promise 11: what stands ahead of a kernel's end is issued once a group, with all
 // lanes on, wherever they parted.
 func TestPromise11AllLanesAreTogetherInTheEnd(t *testing.T) {
+	t.Parallel()
 	c := newChance(211)
 	tried, parts := 0, 0
 	for n := range 900 {
@@ -146,6 +149,7 @@ func (c chance) alone(n int) []impl.Instr {
 // Promise 11: wherever lanes part and come together, each does what its thread
 // does.
 func TestPromise11AnyJoins(t *testing.T) {
+	t.Parallel()
 	c := newChance(212)
 	tried, parts, notFine := 0, 0, 0
 	for n := range 3000 {
@@ -175,6 +179,7 @@ func TestPromise11AnyJoins(t *testing.T) {
 
 // Promise 11: fine code is never stuck at a barrier that stands in no choice.
 func TestPromise11FineCodeComesTogether(t *testing.T) {
+	t.Parallel()
 	c := newChance(213)
 	fine, parts := 0, 0
 	for n := range 2500 {
@@ -200,6 +205,7 @@ func TestPromise11FineCodeComesTogether(t *testing.T) {
 
 // Promise 25: instructions with fields of any kind, and no code at all.
 func TestPromise25AnyInstructionsForWarps(t *testing.T) {
+	t.Parallel()
 	newChance(214).anyInstrs(func(l []impl.Instr, x impl.Launch) {
 		heldJoins(t, l)
 		heldWarps(t, l, x)
@@ -216,6 +222,7 @@ func TestPromise25AnyInstructionsForWarps(t *testing.T) {
 
 // Promise 25: launches of any kind.
 func TestPromise25LaunchesForWarps(t *testing.T) {
+	t.Parallel()
 	l := instrs("in 0 1 | in 1 4 | load 2 0 0 | zero 0 5 5 | store 0 1 0 | barrier | load 2 0 15 | store 0 2 1 | end")
 	for _, x := range oddLaunches() {
 		got, _ := heldWarps(t, l, x)
@@ -237,6 +244,7 @@ func (c chance) someParting(n int) ([]impl.Instr, impl.Launch) {
 // Promise 25: nothing is written into code and launches, and no answer shares
 // their memory.
 func TestPromise25WarpsKeepWhatIsGiven(t *testing.T) {
+	t.Parallel()
 	c := newChance(215)
 	for n := range 400 {
 		l, x := c.someParting(n)
@@ -261,6 +269,7 @@ func ranByWarps(l []impl.Instr, x impl.Launch) impl.Ran {
 
 // Promise 25: buffers that are answered are new memory.
 func TestPromise25NewBuffersOfWarps(t *testing.T) {
+	t.Parallel()
 	c := newChance(216)
 	for n := range 300 {
 		l, x := c.someParting(n)
@@ -280,6 +289,7 @@ func TestPromise25NewBuffersOfWarps(t *testing.T) {
 
 // Promise 25: what lies behind the lengths of lists is not looked at.
 func TestPromise25BehindCodeForWarps(t *testing.T) {
+	t.Parallel()
 	c := newChance(217)
 	for n := range 300 {
 		l, x := c.someParting(n)
@@ -301,6 +311,7 @@ func TestPromise25BehindCodeForWarps(t *testing.T) {
 
 // Promise 25: answers hang on what is given alone, whatever was asked between.
 func TestPromise25WarpsAgain(t *testing.T) {
+	t.Parallel()
 	c := newChance(218)
 	for n := range 100 {
 		l, x := c.someParting(n)

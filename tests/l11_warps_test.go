@@ -180,6 +180,7 @@ func (w *toldOfWarps) add(t *testing.T, l []impl.Instr, x impl.Launch) {
 }
 
 func TestWarpsByChance(t *testing.T) {
+	t.Parallel()
 	c := newChance(200)
 	w := &toldOfWarps{}
 	for n := range 4000 {
@@ -191,6 +192,7 @@ func TestWarpsByChance(t *testing.T) {
 }
 
 func TestWarpsOfNestedCode(t *testing.T) {
+	t.Parallel()
 	c := newChance(206)
 	w := &toldOfWarps{}
 	for n := range 5000 {
@@ -208,6 +210,7 @@ func TestWarpsOfNestedCode(t *testing.T) {
 
 // Code of chapter 10, whose numbers are any.
 func TestWarpsOfAnyCode(t *testing.T) {
+	t.Parallel()
 	c := newChance(201)
 	codes := [4]int{}
 	for n := range 600 {
@@ -224,6 +227,7 @@ func TestWarpsOfAnyCode(t *testing.T) {
 }
 
 func TestWarpsOfCompiledKernels(t *testing.T) {
+	t.Parallel()
 	c := newChance(202)
 	codes, splits := [4]int{}, 0
 	for n := range 125 {
@@ -249,6 +253,7 @@ func TestWarpsOfCompiledKernels(t *testing.T) {
 
 // Launches with one thing changed, and code that is not good.
 func TestWarpsThatAreBadByChance(t *testing.T) {
+	t.Parallel()
 	c := newChance(203)
 	bad := 0
 	for range 1500 {
@@ -284,6 +289,7 @@ func (c chance) skipping(count int) []impl.Instr {
 }
 
 func TestJoinsByChance(t *testing.T) {
+	t.Parallel()
 	c := newChance(204)
 	fine := 0
 	for n := range 6000 {
@@ -305,6 +311,7 @@ func TestJoinsByChance(t *testing.T) {
 
 // All code of four instructions of which each is a jump, an IZero, or neither.
 func TestJoinsOfAllSmallCode(t *testing.T) {
+	t.Parallel()
 	forms := instrs("move 0 0")
 	for a := range 4 {
 		forms = append(forms, impl.Instr{Op: impl.IJump, A: a})
@@ -331,6 +338,7 @@ func TestJoinsOfAllSmallCode(t *testing.T) {
 
 // Compiled code with one number changed: mostly no longer fine.
 func TestJoinsWithOneChange(t *testing.T) {
+	t.Parallel()
 	c := newChance(205)
 	fine, tried := 0, 0
 	for n := range 300 {

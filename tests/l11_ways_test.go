@@ -38,6 +38,7 @@ func arraysOf(t *testing.T, path string) (map[string]bool, *ast.File) {
 }
 
 func TestLanesRegistersAreArrays(t *testing.T) {
+	t.Parallel()
 	if arrays, _ := arraysOf(t, "../impl/l10_code.go"); !arrays["regs"] {
 		t.Error("registers are no array")
 	}
@@ -64,6 +65,7 @@ func TestLanesRegistersAreArrays(t *testing.T) {
 }
 
 func TestLanesByRangeOverAnInteger(t *testing.T) {
+	t.Parallel()
 	_, file := arraysOf(t, "../impl/l11_warps.go")
 	ranges := 0
 	ast.Inspect(file, func(n ast.Node) bool {

@@ -60,6 +60,7 @@ func reaches(t *testing.T, text, want string) {
 }
 
 func TestReachedByEachOp(t *testing.T) {
+	t.Parallel()
 	reaches(t, "end", "1")
 	reaches(t, "jump 0", "1")
 	for _, line := range []string{"const 0 1", "move 0 1", "op 0 1 2 33", "call 0 1 2 3 10", "in 0 0", "load 0 1 0", "store 0 1 0", "barrier", "not 0 1", "neg 0 1"} {
@@ -77,6 +78,7 @@ func TestReachedByEachOp(t *testing.T) {
 
 // An IZero leads to B, to C and behind itself, whatever its register has.
 func TestReachedByZero(t *testing.T) {
+	t.Parallel()
 	reaches(t, "zero 0 2 4 | jump 6 | end | end | end | end | end", "1110101")
 	reaches(t, "zero 0 4 2 | jump 6 | end | end | end | end | end", "1110101")
 	reaches(t, "zero 0 3 3 | end | end | end", "1101")
@@ -88,6 +90,7 @@ func TestReachedByZero(t *testing.T) {
 }
 
 func TestReachedInLoops(t *testing.T) {
+	t.Parallel()
 	reaches(t, "const 0 1 | jump 0 | end", "110")
 	reaches(t, "jump 2 | jump 3 | jump 1 | jump 2 | end", "11110")
 	reaches(t, "jump 4 | end | jump 1 | end | jump 2 | end", "111010")
@@ -102,6 +105,7 @@ func TestReachedInLoops(t *testing.T) {
 
 // Every third of 600 is reached, from the last one of them to the first.
 func TestReachedInLongCode(t *testing.T) {
+	t.Parallel()
 	l := slices.Repeat(instrs("end"), 600)
 	want := make([]bool, 600)
 	var left []impl.Instr
@@ -118,6 +122,7 @@ func TestReachedInLongCode(t *testing.T) {
 }
 
 func TestDropUnreached(t *testing.T) {
+	t.Parallel()
 	passKeeps(t, "DropUnreached",
 		"end", "jump 0", "const 0 1 | end", "const 0 1 | jump 0", "zero 0 2 1 | end | end", "jump 1 | end",
 		"const 0 1 | zero 0 @e @e | store 0 0 0 | e: end", "barrier | jump 0")
@@ -143,6 +148,7 @@ func TestDropUnreached(t *testing.T) {
 // A register that some instruction reads, and one that none does, for each op that
 // writes one.
 func TestDropUnreadOfEachOp(t *testing.T) {
+	t.Parallel()
 	for _, line := range []string{"const 9 1", "move 9 0", "op 9 0 0 33", "op 9 0 0 35", "call 9 0 0 0 1", "call 9 0 0 0 10", "in 9 0", "in 9 999", "load 9 0 0", "load 9 0 999", "not 9 0", "neg 9 0"} {
 		passMakes(t, "DropUnread", line+" | end", "end")
 		passMakes(t, "DropUnread", "barrier | "+line+" | store 1 0 0 | jump 1", "barrier | store 1 0 0 | jump 1")
@@ -161,6 +167,7 @@ func TestDropUnreadOfEachOp(t *testing.T) {
 }
 
 func TestDropUnreadKeepsWhatWritesNone(t *testing.T) {
+	t.Parallel()
 	passKeeps(t, "DropUnread",
 		"end", "jump 0", "barrier | end", "store 0 0 0 | end", "store 3 4 999 | jump 0", "zero 5 0 0 | end", "zero 0 1 2 | end | end", "jump 1 | end",
 		"jump 1 | jump 0", "end | end | end", "jump 2 | barrier | end | barrier | jump 4")
@@ -178,12 +185,14 @@ func TestDropUnreadKeepsWhatWritesNone(t *testing.T) {
 
 // An instruction that reads what it alone writes: some instruction reads it.
 func TestDropUnreadOfItsOwnRegister(t *testing.T) {
+	t.Parallel()
 	passKeeps(t, "DropUnread", "op 9 9 9 33 | end", "op 9 9 0 33 | end", "op 9 0 9 33 | end", "call 9 9 0 0 1 | end", "call 9 0 0 9 10 | end", "load 9 9 0 | end", "not 9 9 | end", "neg 9 9 | end",
 		"const 9 1 | not 9 9 | end", "not 8 9 | neg 9 8 | end", "const 7 1 | not 8 9 | op 9 8 7 33 | end")
 	passMakes(t, "DropUnread", "not 9 9 | neg 8 9 | end", "not 9 9 | end")
 }
 
 func TestDropUnreadAgainAndAgain(t *testing.T) {
+	t.Parallel()
 	passMakes(t, "DropUnread", "const 1 1 | move 2 1 | not 3 2 | op 4 3 3 33 | end", "end")
 	passMakes(t, "DropUnread", "op 4 3 3 33 | not 3 2 | move 2 1 | const 1 1 | end", "end")
 	passMakes(t, "DropUnread", "const 1 1 | move 2 1 | not 3 2 | op 4 3 1 33 | store 2 2 0 | end", "const 1 1 | move 2 1 | store 2 2 0 | end")
@@ -207,6 +216,7 @@ func wellEnded(l []impl.Instr, text string) string {
 // An IMove of a register to itself reads it; it goes in any case, and what it alone
 // read goes, too.
 func TestDropUnreadOfIdleMoves(t *testing.T) {
+	t.Parallel()
 	passMakes(t, "DropUnread", "move 9 9 | end", "end")
 	passMakes(t, "DropUnread", "move 0 0 | move 399 399 | end", "end")
 	passMakes(t, "DropUnread", "move 9 9 | store 9 9 0 | end", "store 9 9 0 | end")
@@ -220,6 +230,7 @@ func TestDropUnreadOfIdleMoves(t *testing.T) {
 // Numbers by DropUnread: to one that stays, to one that is taken out with others
 // behind it, in all three fields that tell one.
 func TestNumbersOfWhatIsTakenOut(t *testing.T) {
+	t.Parallel()
 	passMakes(t, "DropUnread", "jump @a | a: const 1 1 | b: const 2 2 | c: barrier | d: end", "jump @c | c: barrier | d: end")
 	passMakes(t, "DropUnread", "jump @b | a: const 1 1 | b: const 2 2 | c: barrier | d: end", "jump @c | c: barrier | d: end")
 	passMakes(t, "DropUnread", "jump @c | a: const 1 1 | b: const 2 2 | c: barrier | d: end", "jump @c | c: barrier | d: end")

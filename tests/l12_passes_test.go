@@ -85,6 +85,7 @@ func (c chance) someCode(n int) []impl.Instr {
 }
 
 func TestPassesByChance(t *testing.T) {
+	t.Parallel()
 	c := newChance(220)
 	changed := map[string]int{}
 	for n := range 6000 {
@@ -102,6 +103,7 @@ func TestPassesByChance(t *testing.T) {
 }
 
 func TestPassesOfLongCode(t *testing.T) {
+	t.Parallel()
 	c := newChance(221)
 	for range 4 {
 		heldPasses(t, c.copying(600))
@@ -110,6 +112,7 @@ func TestPassesOfLongCode(t *testing.T) {
 }
 
 func TestPassesOfCompiledKernels(t *testing.T) {
+	t.Parallel()
 	c := newChance(222)
 	changed := map[string]int{}
 	for n := range 300 {
@@ -127,6 +130,7 @@ func TestPassesOfCompiledKernels(t *testing.T) {
 
 // All code of three instructions, of a few of each op, ahead of an end or a jump.
 func TestPassesOfAllSmallCode(t *testing.T) {
+	t.Parallel()
 	forms := instrs("const 1 0 | move 1 0 | move 0 1 | move 1 1 | store 0 1 0 | barrier | end | not 0 0 | load 1 1 0 | jump 0 | jump 1 | jump 2 | jump 3 | zero 1 2 3 | zero 1 3 2 | zero 0 1 0 | zero 1 0 3 | zero 1 3 3")
 	for _, first := range forms {
 		for _, second := range forms {
@@ -141,6 +145,7 @@ func TestPassesOfAllSmallCode(t *testing.T) {
 
 // All code of up to five jumps, ahead of an end or alone.
 func TestPassesOfAllJumps(t *testing.T) {
+	t.Parallel()
 	for count := 1; count <= 5; count++ {
 		goals := make([]int, count)
 		for more := true; more; {

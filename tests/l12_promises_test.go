@@ -33,6 +33,7 @@ func sameByPasses(t *testing.T, l []impl.Instr, x impl.Launch) int {
 
 // Promise 12: of drawn good code, whatever the launch.
 func TestPromise12PassesKeepTheMeaning(t *testing.T) {
+	t.Parallel()
 	c := newChance(224)
 	codes, changed := [4]int{}, 0
 	for n := range 2500 {
@@ -54,6 +55,7 @@ func TestPromise12PassesKeepTheMeaning(t *testing.T) {
 // Promise 12: of drawn kernels' code; improved it does what the kernel does, and is
 // mostly shorter.
 func TestPromise12OfKernels(t *testing.T) {
+	t.Parallel()
 	c := newChance(225)
 	tried, changed, before, behind := 0, 0, 0, 0
 	for n := range 800 {
@@ -85,6 +87,7 @@ func TestPromise12OfKernels(t *testing.T) {
 
 // Promise 12: passes in any order, one after the other.
 func TestPromise12PassesInAnyOrder(t *testing.T) {
+	t.Parallel()
 	c := newChance(226)
 	tried := 0
 	for n := range 2000 {
@@ -112,6 +115,7 @@ func TestPromise12PassesInAnyOrder(t *testing.T) {
 
 // Promise 12: each statement, at operands of which some are known.
 func TestPromise12EveryStatement(t *testing.T) {
+	t.Parallel()
 	shorter := 0
 	for _, text := range []string{"7", "- 7", "n", "n + 2 * 3", "2 * 3 - 6", "a [ 1 ]", "tid ( )", "local ( ) - 3", "n / 0", "5 / 0", "5 % 0", "7 << 33", "- 7 >> 1", "abs ( - 7 )", "min ( 3 , 2 )", "max ( n , 4 )", "int ( 2.5 )", "int ( - f )", "2147483647 + 1", "- 2147483647 - 1 - n"} {
 		for _, form := range []string{"a [ 0 ] = # ;", "a [ # ] = 7 ;", "b [ 1 ] = # ;", "let x = # ; let y = x ; x = y * 2 ; a [ 2 ] = x + y ;", "let x = 0.5 ; x = # ; b [ 0 ] = x / 2 ;", "for i in # .. ( # ) + 2 { a [ i ] = i ; }", "for i in 0 .. ( # ) % 5 { a [ tid ( ) ] = a [ tid ( ) ] * 3 + i ; }", "if ( # ) < 2 && 1 == 1 { a [ 1 ] = 1 ; } else { a [ 2 ] = 1 ; }", "if ( # ) != ( # ) { a [ 1 ] = 1 ; } else { a [ 2 ] = # ; }", "if ! ( ( # ) == n ) { a [ 1 ] = 1 ; }", "let x = # ; if x == 7 { if x != 7 { a [ 0 ] = 9 ; } x = 8 ; } else { x = 5 ; } a [ 1 ] = x ;", "b [ 2 ] = fma ( # , 1.5 , f ) ;", "b [ 0 ] = sqrt ( # ) ; b [ 1 ] = - float ( # ) ;", "a [ tid ( ) ] = # ; barrier ; a [ 3 - tid ( ) ] = a [ tid ( ) ] + ( # ) ;"} {
@@ -136,6 +140,7 @@ func TestPromise12EveryStatement(t *testing.T) {
 
 // Promise 12: all words of a lane go through a pass bit by bit.
 func TestPromise12AnyWords(t *testing.T) {
+	t.Parallel()
 	c := newChance(227)
 	for range 600 {
 		l := c.copying(4 + c.Intn(30))
@@ -168,6 +173,7 @@ func notPassed(t *testing.T, l []impl.Instr) {
 
 // Promise 25: instructions with fields of any kind.
 func TestPromise25AnyInstructionsForPasses(t *testing.T) {
+	t.Parallel()
 	good := 0
 	newChance(228).anyInstrs(func(l []impl.Instr, _ impl.Launch) {
 		if wantCode(l) {
@@ -184,6 +190,7 @@ func TestPromise25AnyInstructionsForPasses(t *testing.T) {
 
 // Promise 25: no code at all, too much of it, and code that ends as it must not.
 func TestPromise25NoCodeForPasses(t *testing.T) {
+	t.Parallel()
 	for _, l := range [][]impl.Instr{nil, {}, {{}}, slices.Repeat([]impl.Instr{{}}, 600), slices.Repeat(instrs("end"), 601), slices.Repeat(instrs("end"), 1<<20), slices.Repeat(instrs("jump 0"), 601)} {
 		notPassed(t, l)
 	}
@@ -199,6 +206,7 @@ func TestPromise25NoCodeForPasses(t *testing.T) {
 
 // Promise 25: good code with one thing changed.
 func TestPromise25PassesWithOneChange(t *testing.T) {
+	t.Parallel()
 	c := newChance(229)
 	good := 0
 	for n := range 4000 {
@@ -220,6 +228,7 @@ func TestPromise25PassesWithOneChange(t *testing.T) {
 // Promise 25: nothing is written into code, and no answer shares its memory, or
 // that of another one.
 func TestPromise25PassesKeepWhatIsGiven(t *testing.T) {
+	t.Parallel()
 	c := newChance(230)
 	for n := range 600 {
 		l := c.someCode(n)
@@ -235,6 +244,7 @@ func TestPromise25PassesKeepWhatIsGiven(t *testing.T) {
 
 // Promise 25: what lies behind the length of code is not looked at.
 func TestPromise25BehindCodeForPasses(t *testing.T) {
+	t.Parallel()
 	c := newChance(231)
 	for n := range 400 {
 		l := c.someCode(n)
@@ -246,6 +256,7 @@ func TestPromise25BehindCodeForPasses(t *testing.T) {
 
 // Promise 25: answers hang on what is given alone, whatever was asked between.
 func TestPromise25PassesAgain(t *testing.T) {
+	t.Parallel()
 	c := newChance(232)
 	for n := range 200 {
 		l := c.someCode(n)

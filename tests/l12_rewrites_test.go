@@ -47,6 +47,7 @@ func filled(form, ahead, at string) string {
 }
 
 func TestWhereBlocksBegin(t *testing.T) {
+	t.Parallel()
 	for name, form := range seams {
 		passKeeps(t, "FoldConsts", filled(form, "const 1 5", "not 2 1"))
 		passKeeps(t, "FollowMoves", filled(form, "move 1 5", "not 2 1"))
@@ -118,6 +119,7 @@ func foldedAtAll(t *testing.T, i impl.Instr, words []uint32) {
 var edgeWords = []uint32{0, 1, 2, 3, 31, 32, 33, math.MaxUint32, math.MaxUint32 - 6, 1 << 31, 1<<31 - 1, 1<<31 + 1, impl.TheNaN, 0x7f800001, 0xffc00000, 0x7f800000, 0xff800000, 0x7f7fffff, 0xff7fffff, 0x3f800000, 0xbf800000, 0x00800000, 0x40490fdb}
 
 func TestFoldsEverySign(t *testing.T) {
+	t.Parallel()
 	for _, sign := range betweenSigns {
 		for kind := 1; kind <= 3; kind++ {
 			word := uint32(slices.Index(wantSigns, sign)*4 + kind)
@@ -137,6 +139,7 @@ func TestFoldsEverySign(t *testing.T) {
 }
 
 func TestFoldsEveryCall(t *testing.T) {
+	t.Parallel()
 	done := map[int]int{}
 	for number, call := range wantCalls {
 		arity := wantArity[call]
@@ -162,6 +165,7 @@ func TestFoldsEveryCall(t *testing.T) {
 }
 
 func TestFoldsMovesNotsAndNegs(t *testing.T) {
+	t.Parallel()
 	for _, word := range append(slices.Clone(edgeWords), 0xffffffff) {
 		for _, op := range []int{impl.IMove, impl.INot, impl.INeg} {
 			foldedAtAll(t, impl.Instr{Op: op, D: 5, A: 1}, []uint32{word})
@@ -180,6 +184,7 @@ func TestFoldsMovesNotsAndNegs(t *testing.T) {
 
 // What becomes known, and what is known no longer.
 func TestWhatIsKnown(t *testing.T) {
+	t.Parallel()
 	passMakes(t, "FoldConsts", "const 1 5 | move 2 1 | move 3 2 | op 4 3 1 33 | not 5 4 | end", "const 1 5 | const 2 5 | const 3 5 | const 4 10 | const 5 1 | end")
 	passMakes(t, "FoldConsts", "const 1 5 | const 1 6 | move 2 1 | end", "const 1 5 | const 1 6 | const 2 6 | end")
 	passMakes(t, "FoldConsts", "const 1 5 | move 2 1 | const 1 6 | move 3 1 | op 4 2 3 33 | end", "const 1 5 | const 2 5 | const 1 6 | const 3 6 | const 4 11 | end")
@@ -200,6 +205,7 @@ func TestWhatIsKnown(t *testing.T) {
 }
 
 func TestZerosOfWhatIsKnown(t *testing.T) {
+	t.Parallel()
 	code := "const 1 # | zero 1 @b @c | store 0 0 0 | b: store 1 1 1 | c: end"
 	passMakes(t, "FoldConsts", strings.Replace(code, "#", "0", 1), "const 1 0 | jump @b | store 0 0 0 | b: store 1 1 1 | c: end")
 	for _, word := range []string{"1", "2", "2147483648", "4294967295", "1065353216"} {
@@ -217,6 +223,7 @@ func TestZerosOfWhatIsKnown(t *testing.T) {
 
 // Each field of each op that reads a register.
 func TestFollowsMovesInEachField(t *testing.T) {
+	t.Parallel()
 	for line, want := range map[string]string{
 		"move 2 9":        "move 2 8",
 		"op 2 9 3 33":     "op 2 8 3 33",
@@ -271,6 +278,7 @@ func TestFollowsMovesInEachField(t *testing.T) {
 
 // Up to the next instruction that writes one of the two.
 func TestHowFarMovesAreFollowed(t *testing.T) {
+	t.Parallel()
 	for _, line := range []string{"const # 1", "move # 3", "op # 3 3 33", "call # 3 0 0 1", "in # 0", "load # 3 0", "not # 3", "neg # 3"} {
 		for _, reg := range []string{"9", "8"} {
 			write := strings.Replace(line, "#", reg, 1)
@@ -295,6 +303,7 @@ func TestHowFarMovesAreFollowed(t *testing.T) {
 }
 
 func TestMovesOfMoves(t *testing.T) {
+	t.Parallel()
 	passMakes(t, "FollowMoves", "move 2 1 | move 3 2 | move 4 3 | store 4 3 0 | store 2 1 0 | end", "move 2 1 | move 3 1 | move 4 1 | store 1 1 0 | store 1 1 0 | end")
 	passMakes(t, "FollowMoves", "move 2 1 | move 3 2 | const 2 5 | store 3 2 0 | end", "move 2 1 | move 3 1 | const 2 5 | store 1 2 0 | end")
 	passMakes(t, "FollowMoves", "move 2 1 | move 3 2 | const 1 5 | store 3 2 0 | end", "move 2 1 | move 3 1 | const 1 5 | store 3 2 0 | end")
@@ -310,6 +319,7 @@ func TestMovesOfMoves(t *testing.T) {
 
 // One of a register to itself is none to follow, but it writes the register.
 func TestMovesToThemselves(t *testing.T) {
+	t.Parallel()
 	passKeeps(t, "FollowMoves", "move 8 8 | store 8 8 0 | end", "move 8 8 | move 8 8 | not 7 8 | end")
 	passKeeps(t, "FollowMoves", "move 9 8 | move 8 8 | store 9 8 0 | end")
 	passMakes(t, "FollowMoves", "move 9 8 | move 9 9 | store 9 8 0 | end", "move 9 8 | move 9 8 | store 8 8 0 | end")
@@ -318,6 +328,7 @@ func TestMovesToThemselves(t *testing.T) {
 }
 
 func TestJumpsToJumps(t *testing.T) {
+	t.Parallel()
 	passMakes(t, "ShortJumps", "jump @a | barrier | a: jump @b | barrier | b: end", "jump @b | barrier | a: jump @b | barrier | b: end")
 	passMakes(t, "ShortJumps", "jump @a | barrier | b: jump @c | barrier | a: jump @b | barrier | c: barrier | jump @a", "jump @c | barrier | b: jump @c | barrier | a: jump @c | barrier | c: barrier | jump @c")
 	passMakes(t, "ShortJumps", "barrier | jump @a | barrier | a: jump 0", "barrier | jump 0 | barrier | a: jump 0")
@@ -334,6 +345,7 @@ func TestJumpsToJumps(t *testing.T) {
 // Jumps that go round are done from the first one on, each by those ahead of it as
 // they are then.
 func TestJumpsThatGoRound(t *testing.T) {
+	t.Parallel()
 	passKeeps(t, "ShortJumps", "jump 0", "jump 0 | end", "barrier | jump 1", "jump @a | barrier | a: jump @a", "zero 0 @a @a | barrier | a: jump @a", "jump 0 | jump 1 | jump 2")
 	passMakes(t, "ShortJumps", "jump 1 | jump 0", "jump 0 | jump 0")
 	passMakes(t, "ShortJumps", "jump 1 | jump 0 | end", "jump 0 | jump 0 | end")
@@ -350,6 +362,7 @@ func TestJumpsThatGoRound(t *testing.T) {
 
 // As many jumps in a row as there can be, in either direction.
 func TestLongRowsOfJumps(t *testing.T) {
+	t.Parallel()
 	var ahead, back []impl.Instr
 	for at := range 599 {
 		ahead = append(ahead, impl.Instr{Op: impl.IJump, A: at + 1})
@@ -366,6 +379,7 @@ func TestLongRowsOfJumps(t *testing.T) {
 }
 
 func TestJumpsRightBehind(t *testing.T) {
+	t.Parallel()
 	passMakes(t, "ShortJumps", "jump 1 | end", "end")
 	passMakes(t, "ShortJumps", "barrier | jump 2 | end", "barrier | end")
 	passMakes(t, "ShortJumps", "jump 1 | barrier | jump 3 | store 0 0 0 | jump 5 | end", "barrier | store 0 0 0 | end")
@@ -389,6 +403,7 @@ func TestJumpsRightBehind(t *testing.T) {
 
 // Of one pass after the other, each because of the one ahead.
 func TestImproveByTurns(t *testing.T) {
+	t.Parallel()
 	passKeeps(t, "Improve", "end", "jump 0", "barrier | end", "in 0 0 | store 0 0 0 | end", "in 0 0 | a: zero 0 @e @e | load 0 0 0 | jump @a | e: end", "const 0 1 | store 0 0 0 | end", "const 0 1 | zero 0 @e @e | store 0 0 0 | e: end")
 	passMakes(t, "Improve", "const 0 2 | move 1 0 | const 2 3 | op 3 1 2 29 | move 4 3 | const 5 6 | op 6 4 5 77 | zero 6 @e @e | const 7 0 | store 7 4 0 | e: end",
 		"const 4 6 | const 6 1 | zero 6 @e @e | const 7 0 | store 7 4 0 | e: end")
@@ -422,6 +437,7 @@ func falseChoices(count int) string {
 // Each choice takes two rounds: one in which it becomes a jump and what it jumps over
 // goes, one in which the jump goes.
 func TestImproveTenTimes(t *testing.T) {
+	t.Parallel()
 	for count := range 6 {
 		passMakes(t, "Improve", falseChoices(count), "end")
 	}
@@ -448,6 +464,7 @@ func TestImproveTenTimes(t *testing.T) {
 
 // Improved again it is as short, and the same where ten rounds were enough.
 func TestImprovedAgain(t *testing.T) {
+	t.Parallel()
 	c := newChance(223)
 	enough, most := 0, 0
 	for n := range 4000 {

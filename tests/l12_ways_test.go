@@ -38,6 +38,7 @@ func methodsOf(file *ast.File) map[string]map[string]bool {
 }
 
 func TestPassesAreMethodExpressionsInARow(t *testing.T) {
+	t.Parallel()
 	file := parsedPasses(t)
 	methods := methodsOf(file)
 	most := 0
@@ -63,6 +64,7 @@ func TestPassesAreMethodExpressionsInARow(t *testing.T) {
 }
 
 func TestSetsAreJoinedByVariadicArguments(t *testing.T) {
+	t.Parallel()
 	file := parsedPasses(t)
 	variadic := map[string]bool{}
 	ast.Inspect(file, func(n ast.Node) bool {

@@ -68,6 +68,7 @@ func stands(t *testing.T, text string, places int, where string, kept, slots int
 }
 
 func TestLivesFromWriteToRead(t *testing.T) {
+	t.Parallel()
 	lives(t, "end", "")
 	lives(t, "jump 0", "")
 	lives(t, "const 0 1 | end", "|")
@@ -85,6 +86,7 @@ func TestLivesFromWriteToRead(t *testing.T) {
 // All registers that an op reads live ahead of it; those that it names otherwise,
 // and its numbers, do not.
 func TestLivesByEachOp(t *testing.T) {
+	t.Parallel()
 	for line, want := range map[string]string{
 		"const 9 5": "", "move 9 1": "1", "op 9 1 2 33": "1 2", "op 9 2 2 33": "2", "op 9 2 1 35": "1 2", "call 9 1 0 0 1": "1", "call 9 2 1 0 29": "1 2", "call 9 3 2 1 10": "1 2 3", "call 9 3 3 3 10": "3",
 		"in 9 5": "", "load 9 1 5": "1", "store 1 2 5": "1 2", "store 2 1 5": "1 2", "store 1 1 5": "1", "zero 1 2 2": "1", "barrier": "", "not 9 1": "1", "neg 9 1": "1",
@@ -98,6 +100,7 @@ func TestLivesByEachOp(t *testing.T) {
 
 // One that reads and writes a register reads it first.
 func TestLivesThroughWhatReadsAndWrites(t *testing.T) {
+	t.Parallel()
 	for _, line := range []string{"move 9 9", "op 9 9 9 33", "op 9 9 1 33", "op 9 1 9 33", "call 9 9 0 0 1", "call 9 1 9 0 29", "call 9 1 1 9 10", "load 9 9 0", "not 9 9", "neg 9 9"} {
 		other := ""
 		if strings.Contains(line, " 1 ") {
@@ -118,6 +121,7 @@ func TestLivesThroughWhatReadsAndWrites(t *testing.T) {
 }
 
 func TestLivesAlongEachWay(t *testing.T) {
+	t.Parallel()
 	// an IZero leads to B, to C and behind itself
 	lives(t, "zero 0 @b @c | store 1 1 0 | end | b: store 2 2 0 | end | c: store 3 3 0 | end", "1 2 3 | | | | | |")
 	lives(t, "zero 0 @b @b | store 1 1 0 | end | b: store 2 2 0 | end", "1 2 | | | |")
@@ -140,6 +144,7 @@ func TestLivesAlongEachWay(t *testing.T) {
 }
 
 func TestLivesThroughLoops(t *testing.T) {
+	t.Parallel()
 	lives(t, "a: store 0 0 0 | jump @a", "0 | 0")
 	lives(t, "in 0 0 | a: store 0 0 0 | jump @a", "0 | 0 | 0")
 	lives(t, "a: in 0 0 | store 0 0 0 | jump @a", "0 | |")
@@ -154,6 +159,7 @@ func TestLivesThroughLoops(t *testing.T) {
 
 // What is not reached has its own ways.
 func TestLivesInWhatIsNotReached(t *testing.T) {
+	t.Parallel()
 	lives(t, "end | barrier | store 5 6 0 | end", "| 5 6 | |")
 	lives(t, "end | a: store 5 5 0 | jump @a", "| 5 | 5")
 	lives(t, "jump @e | barrier | store 5 5 0 | e: store 6 6 0 | end", "6 | 5 6 | 6 | |")
@@ -161,6 +167,7 @@ func TestLivesInWhatIsNotReached(t *testing.T) {
 }
 
 func TestLivesInLongCode(t *testing.T) {
+	t.Parallel()
 	// 300 are written in turn, and read from the last one to the first
 	var l []impl.Instr
 	for reg := range 300 {
@@ -214,6 +221,7 @@ func TestLivesInLongCode(t *testing.T) {
 }
 
 func TestClashesByWrites(t *testing.T) {
+	t.Parallel()
 	clash(t, "end", "")
 	if clashes, ok := impl.ClashesOf(instrs("end")); !ok || len(clashes) > 0 {
 		t.Errorf("without registers clash %v", clashes)
@@ -246,6 +254,7 @@ func TestClashesByWrites(t *testing.T) {
 
 // What is written and never read clashes with what lives behind.
 func TestClashesOfWhatIsNeverRead(t *testing.T) {
+	t.Parallel()
 	clash(t, "in 0 0 | in 1 0 | store 0 0 0 | end", "1 | 0")
 	clash(t, "in 1 0 | in 0 0 | store 0 0 0 | end", "|")
 	clash(t, "in 0 0 | in 1 0 | end", "|")
@@ -256,6 +265,7 @@ func TestClashesOfWhatIsNeverRead(t *testing.T) {
 }
 
 func TestClashesOfMoves(t *testing.T) {
+	t.Parallel()
 	clash(t, "in 0 0 | move 1 0 | store 0 1 0 | end", "|")
 	clash(t, "in 1 0 | move 0 1 | store 0 1 0 | end", "|")
 	// with all others it makes them clash
@@ -285,6 +295,7 @@ func TestClashesOfMoves(t *testing.T) {
 // Registers that live ahead of number 0, as behind an instruction ahead of it that
 // does nothing.
 func TestClashesAheadOfTheFirst(t *testing.T) {
+	t.Parallel()
 	clash(t, "store 0 1 0 | end", "1 | 0")
 	clash(t, "store 0 0 0 | end", "")
 	clash(t, "store 0 0 0 | store 1 1 0 | end", "1 | 0")
@@ -305,6 +316,7 @@ func TestClashesAheadOfTheFirst(t *testing.T) {
 }
 
 func TestPlacesInOrder(t *testing.T) {
+	t.Parallel()
 	stands(t, "end", 1, "", 0, 0)
 	stands(t, "barrier | jump 0", 64, "", 0, 0)
 	stands(t, "const 0 1 | end", 1, "0", 1, 0)
@@ -327,6 +339,7 @@ func TestPlacesInOrder(t *testing.T) {
 }
 
 func TestTheLeastPlaceThatIsFree(t *testing.T) {
+	t.Parallel()
 	// 0 and 2 clash with 1 alone
 	stands(t, "in 0 0 | in 1 0 | store 0 0 0 | in 2 0 | store 2 1 0 | end", 2, "0 1 0", 3, 0)
 	// a gap: 3 clashes with those at 0 and 2
@@ -355,6 +368,7 @@ func TestTheLeastPlaceThatIsFree(t *testing.T) {
 }
 
 func TestHowManyPlaces(t *testing.T) {
+	t.Parallel()
 	for _, text := range []string{"end", "in 0 0 | end", "in 0 0 | in 1 0 | store 0 1 0 | end"} {
 		l := instrs(text)
 		for _, places := range []int{0, -1, 65, 66, math.MinInt, math.MaxInt, 1 << 32, 1<<32 + 1, -64} {
@@ -401,6 +415,7 @@ func holdsForNone(t *testing.T, text string, allocs ...impl.Alloc) {
 }
 
 func TestWhichAllocsHold(t *testing.T) {
+	t.Parallel()
 	holdsFor(t, threeThatClash, counted(0, 1, 2, 0), 3)
 	holdsFor(t, threeThatClash, counted(2, 0, 1, 2), 3)
 	holdsFor(t, threeThatClash, counted(0, 1, 2, 63), 64)
@@ -426,6 +441,7 @@ func TestWhichAllocsHold(t *testing.T) {
 }
 
 func TestCountsOfAllocs(t *testing.T) {
+	t.Parallel()
 	for _, a := range []impl.Alloc{counted(0, 1, 2, 0), counted(0, 1, -1, 0), counted(0, -1, -2, -3), counted(-1, -2, -3, -4)} {
 		for _, off := range []int{-1, 1, 2, -a.Kept - 1, 400, math.MinInt, math.MaxInt} {
 			other := a
@@ -455,6 +471,7 @@ func by(t *testing.T, text string, a impl.Alloc, want string) {
 }
 
 func TestCodeByAnAlloc(t *testing.T) {
+	t.Parallel()
 	by(t, "end", impl.Alloc{}, "end")
 	by(t, "in 0 0 | end", counted(0), "in 0 0 | end")
 	by(t, "in 0 0 | end", counted(63), "in 63 0 | end")
@@ -473,6 +490,7 @@ func TestCodeByAnAlloc(t *testing.T) {
 
 // Each field that names a register is another one then, and no other field.
 func TestEachFieldByAnAlloc(t *testing.T) {
+	t.Parallel()
 	for line, want := range map[string]string{
 		"const 1 1": "const 11 1", "const 1 4294967295": "const 11 4294967295", "move 1 2": "move 11 12", "move 2 1": "move 12 11", "op 1 2 3 33": "op 11 12 13 33", "op 3 1 2 35": "op 13 11 12 35",
 		"call 1 2 3 4 10": "call 11 12 13 14 10", "call 4 3 2 1 10": "call 14 13 12 11 10", "call 1 2 3 0 29": "call 11 12 13 0 29", "call 1 2 0 0 1": "call 11 12 0 0 1",
@@ -491,6 +509,7 @@ func TestEachFieldByAnAlloc(t *testing.T) {
 
 // All registers must be below 400.
 func TestRegistersThatAreTooHigh(t *testing.T) {
+	t.Parallel()
 	const text = "in 0 0 | in 1 0 | store 0 1 0 | end"
 	by(t, text, counted(0, -399), "in 0 0 | in 399 0 | store 0 399 0 | end")
 	by(t, text, counted(-400, -1), "in 399 0 | in 0 0 | store 399 0 0 | end")
@@ -519,6 +538,7 @@ func presses(t *testing.T, text string, want int) {
 }
 
 func TestPressure(t *testing.T) {
+	t.Parallel()
 	presses(t, "end", 0)
 	presses(t, "jump 0", 0)
 	presses(t, "in 0 0 | end", 0)
@@ -547,6 +567,7 @@ func TestPressure(t *testing.T) {
 }
 
 func TestOccupancy(t *testing.T) {
+	t.Parallel()
 	for _, row := range [][4]int{
 		// no bound but 8 groups
 		{0, 0, 1, 8}, {0, 0, 8, 8}, {1, 0, 1, 8}, {1, 1, 1, 8}, {4, 8, 8, 8}, {32, 64, 1, 8}, {32, 0, 1, 8}, {0, 64, 1, 8},

@@ -29,6 +29,7 @@ func (s *study) sharing(a impl.Alloc) map[[2]int]bool {
 // Promise 13: no two that live at once share, but a copy with what it is a copy of;
 // wherever there are enough places and nothing is moved, none do.
 func TestPromise13NoTwoThatLiveAtOnceShare(t *testing.T) {
+	t.Parallel()
 	c := newChance(237)
 	copies, without := 0, 0
 	for n := range 2400 {
@@ -61,6 +62,7 @@ func TestPromise13NoTwoThatLiveAtOnceShare(t *testing.T) {
 
 // Promise 13: step by step, those that live and share have one word.
 func TestPromise13SharedWords(t *testing.T) {
+	t.Parallel()
 	c := newChance(238)
 	held, shared := 0, 0
 	for n := range 1200 {
@@ -114,6 +116,7 @@ func sameByAlloc(t *testing.T, l []impl.Instr, a impl.Alloc, x impl.Launch) impl
 
 // Promise 13: of drawn good code, whatever the launch and however few the places.
 func TestPromise13CodeByItsAlloc(t *testing.T) {
+	t.Parallel()
 	c := newChance(239)
 	codes, changed, fewer, slots := [4]int{}, 0, 0, 0
 	for n := range 1200 {
@@ -145,6 +148,7 @@ func TestPromise13CodeByItsAlloc(t *testing.T) {
 // Promise 13: of drawn kernels' code, as it is and improved; it does what the
 // kernel does.
 func TestPromise13OfKernels(t *testing.T) {
+	t.Parallel()
 	c := newChance(240)
 	tried, changed, before, behind := 0, 0, 0, 0
 	for n := range 500 {
@@ -195,6 +199,7 @@ func (c chance) otherAlloc(s *study) impl.Alloc {
 
 // Promise 13: by any alloc that holds.
 func TestPromise13CodeByAnyAlloc(t *testing.T) {
+	t.Parallel()
 	c := newChance(241)
 	tried := 0
 	for n := range 1200 {
@@ -214,6 +219,7 @@ func TestPromise13CodeByAnyAlloc(t *testing.T) {
 
 // Promise 13: each statement, with one place and with two.
 func TestPromise13EveryStatement(t *testing.T) {
+	t.Parallel()
 	for _, text := range []string{"7", "- 7", "n + 2 * 3", "a [ 1 ] + a [ 2 ]", "tid ( ) - local ( )", "min ( 3 , n ) * max ( n , 4 )", "int ( - f )", "( n - ( 3 - ( n - ( 5 - n ) ) ) ) * ( n + 1 )"} {
 		for _, form := range []string{"a [ 0 ] = # ;", "b [ 1 ] = # ;", "let x = # ; let y = x ; x = y * 2 ; a [ 2 ] = x + y ;", "for i in # .. ( # ) + 2 { a [ i ] = i ; }", "for i in 0 .. ( # ) % 5 { for j in i .. 3 { a [ tid ( ) ] = a [ tid ( ) ] * 3 + i - j ; } }", "if ( # ) < 2 { a [ 1 ] = 1 ; } else { a [ 2 ] = # ; }", "let x = # ; if x == 7 { x = 8 ; } else { x = x + 5 ; } a [ 1 ] = x ;", "b [ 2 ] = fma ( # , 1.5 , f ) ;", "let x = # ; a [ tid ( ) ] = # ; barrier ; a [ 3 - tid ( ) ] = a [ tid ( ) ] + x ;"} {
 			l := kernelWith(t, given(strings.ReplaceAll(form, "#", text)))
@@ -259,6 +265,7 @@ func noRegisters(t *testing.T, l []impl.Instr, allocs ...impl.Alloc) {
 
 // Promise 25: instructions with fields of any kind.
 func TestPromise25AnyInstructionsForRegisters(t *testing.T) {
+	t.Parallel()
 	good := 0
 	newChance(242).anyInstrs(func(l []impl.Instr, _ impl.Launch) {
 		if wantCode(l) {
@@ -275,6 +282,7 @@ func TestPromise25AnyInstructionsForRegisters(t *testing.T) {
 
 // Promise 25: no code at all, too much of it, and code that ends as it must not.
 func TestPromise25NoCodeForRegisters(t *testing.T) {
+	t.Parallel()
 	for _, l := range [][]impl.Instr{nil, {}, {{}}, slices.Repeat([]impl.Instr{{}}, 600), slices.Repeat(instrs("end"), 601), slices.Repeat(instrs("end"), 1<<20), slices.Repeat(instrs("jump 0"), 601)} {
 		noRegisters(t, l)
 	}
@@ -290,6 +298,7 @@ func TestPromise25NoCodeForRegisters(t *testing.T) {
 
 // Promise 25: good code with one thing changed, and the alloc of what it was.
 func TestPromise25RegistersWithOneChange(t *testing.T) {
+	t.Parallel()
 	c := newChance(243)
 	good := 0
 	for n := range 1500 {
@@ -312,6 +321,7 @@ func TestPromise25RegistersWithOneChange(t *testing.T) {
 
 // Promise 25: allocs and places of any numbers.
 func TestPromise25AnyAllocs(t *testing.T) {
+	t.Parallel()
 	c := newChance(244)
 	numbers := append([]int{math.MinInt, math.MinInt + 1, math.MaxInt, math.MaxInt - 1, -401, -400, -399, -2, -1, 0, 1, 2, 63, 64, 65, 399, 400, 1 << 32, -1 << 32}, wrongInts...)
 	hold := 0
@@ -386,6 +396,7 @@ func rowsApart(t *testing.T, what string, l []impl.Instr, call func([]impl.Instr
 // Promise 25: nothing is written into an argument, and no answer shares its memory,
 // that of another one, or that of another list of its own.
 func TestPromise25RegistersKeepWhatIsGiven(t *testing.T) {
+	t.Parallel()
 	c := newChance(245)
 	for n := range 500 {
 		l := c.codeForRegisters(n)
@@ -412,6 +423,7 @@ func TestPromise25RegistersKeepWhatIsGiven(t *testing.T) {
 
 // Promise 25: what lies behind the length of code, and of an alloc, is not looked at.
 func TestPromise25BehindCodeForRegisters(t *testing.T) {
+	t.Parallel()
 	c := newChance(246)
 	for n := range 300 {
 		l := c.codeForRegisters(n)
@@ -433,6 +445,7 @@ func TestPromise25BehindCodeForRegisters(t *testing.T) {
 
 // Promise 25: answers hang on what is given alone, whatever was asked between.
 func TestPromise25RegistersAgain(t *testing.T) {
+	t.Parallel()
 	c := newChance(247)
 	for n := range 150 {
 		l, places := c.codeForRegisters(n), c.somePlaces()

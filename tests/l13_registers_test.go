@@ -125,6 +125,7 @@ func (c chance) somePlaces() int {
 }
 
 func TestRegistersByChance(t *testing.T) {
+	t.Parallel()
 	c := newChance(233)
 	slots, bothLive, alone := 0, 0, 0
 	for n := range 2400 {
@@ -145,6 +146,7 @@ func TestRegistersByChance(t *testing.T) {
 }
 
 func TestRegistersOfLongCode(t *testing.T) {
+	t.Parallel()
 	c := newChance(234)
 	for range 2 {
 		heldRegisters(t, c.crowded(600), 1, 3, 64)
@@ -160,6 +162,7 @@ func TestRegistersOfLongCode(t *testing.T) {
 
 // All code of three instructions, of a few of each op, ahead of an end or a jump.
 func TestRegistersOfAllSmallCode(t *testing.T) {
+	t.Parallel()
 	forms := instrs("const 1 0 | move 1 0 | move 0 1 | move 2 1 | move 1 1 | store 0 1 0 | barrier | end | not 0 2 | op 1 1 2 33 | call 2 0 1 0 29 | jump 0 | jump 3 | zero 1 3 2 | zero 2 0 3 | zero 0 1 0")
 	for _, first := range forms {
 		for _, second := range forms {
@@ -212,6 +215,7 @@ func counted(where ...int) impl.Alloc {
 }
 
 func TestAllocsWithOneChange(t *testing.T) {
+	t.Parallel()
 	c := newChance(235)
 	hold, not := 0, 0
 	for n := range 700 {
@@ -237,6 +241,7 @@ func TestAllocsWithOneChange(t *testing.T) {
 
 // Places and slots of which many are free, in any order.
 func TestAllocsByChance(t *testing.T) {
+	t.Parallel()
 	c := newChance(236)
 	hold, tooHigh := 0, 0
 	for n := range 1500 {
@@ -265,6 +270,7 @@ func TestAllocsByChance(t *testing.T) {
 }
 
 func TestOccupancyOfAll(t *testing.T) {
+	t.Parallel()
 	for places := -2; places <= 66; places++ {
 		for slots := -2; slots <= 402; slots++ {
 			for size := -1; size <= 10; size++ {

@@ -42,6 +42,7 @@ func calledIn(piece ast.Node) []string {
 }
 
 func TestSetsByGenericFunctions(t *testing.T) {
+	t.Parallel()
 	file := parsedRegisters(t)
 	var generic, plain []ast.Node
 	called := map[string]int{}
@@ -79,6 +80,7 @@ func TestSetsByGenericFunctions(t *testing.T) {
 }
 
 func TestRowsAreCutByAThirdIndex(t *testing.T) {
+	t.Parallel()
 	file := parsedRegisters(t)
 	cut := 0
 	ast.Inspect(file, func(n ast.Node) bool {

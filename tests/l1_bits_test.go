@@ -63,6 +63,7 @@ func heldNumber(t *testing.T, num, power int) {
 }
 
 func TestConstantsOfBits(t *testing.T) {
+	t.Parallel()
 	if impl.NearEven != 0 || impl.NearAway != 1 || impl.ToZero != 2 || impl.ToUp != 3 || impl.ToDown != 4 {
 		t.Error("modes")
 	}
@@ -72,6 +73,7 @@ func TestConstantsOfBits(t *testing.T) {
 }
 
 func TestGoodMode(t *testing.T) {
+	t.Parallel()
 	for _, mode := range allModes {
 		if !impl.GoodMode(mode) {
 			t.Errorf("mode %d", mode)
@@ -85,6 +87,7 @@ func TestGoodMode(t *testing.T) {
 }
 
 func TestPairsOfWords(t *testing.T) {
+	t.Parallel()
 	l := moreWords()
 	for _, a := range l {
 		for _, b := range l {
@@ -98,6 +101,7 @@ func TestPairsOfWords(t *testing.T) {
 }
 
 func TestFusedWords(t *testing.T) {
+	t.Parallel()
 	l := fewWords()
 	for _, a := range l {
 		for _, b := range l {
@@ -119,6 +123,7 @@ func TestFusedWords(t *testing.T) {
 }
 
 func TestSingleWords(t *testing.T) {
+	t.Parallel()
 	for _, a := range moreWords() {
 		heldOne(t, a)
 	}
@@ -131,6 +136,7 @@ func TestSingleWords(t *testing.T) {
 
 // Squares, and what lies beside them, have roots that end, or nearly do.
 func TestRootsOfSquares(t *testing.T) {
+	t.Parallel()
 	c := newChance(4)
 	for range 3000 {
 		a := 0x20000000 + uint32(c.Intn(0x3f000000))&^uint32(0xfff) // 12 bits: the square has 24
@@ -144,6 +150,7 @@ func TestRootsOfSquares(t *testing.T) {
 }
 
 func TestNumbersRounded(t *testing.T) {
+	t.Parallel()
 	nums := []int{0, 1, 2, 3, 5, 7, 1<<23 - 1, 1 << 23, 1<<24 - 1, 1 << 24, 1<<24 + 1, 1<<24 + 2, 1<<24 + 3,
 		1<<25 - 1, 1<<25 + 1, 1<<25 + 2, 1<<25 + 3, 1<<25 + 6, 1<<53 + 1, 1<<62 + 1, 1<<62 + 1<<38, 1<<62 + 1<<38 + 1, math.MaxInt64, math.MaxInt64 - 1<<38}
 	powers := []int{-400, -399, -300, -214, -213, -212, -200, -190, -176, -175, -174, -173, -172, -152, -151, -150, -149, -148, -127, -126, -125, -64, -1, 0, 1, 64, 65, 66, 101, 102, 103, 104, 105, 126, 127, 128, 200, 399, 400}
@@ -165,6 +172,7 @@ func TestNumbersRounded(t *testing.T) {
 
 // By NearEven the machine's own floats are a second judge, of many words.
 func TestNearEvenAsTheMachine(t *testing.T) {
+	t.Parallel()
 	c := newChance(6)
 	for range 400000 {
 		a, b := c.word(), c.word()
@@ -193,6 +201,7 @@ func bitsOf(f float32) uint32 {
 }
 
 func TestCmpWords(t *testing.T) {
+	t.Parallel()
 	rising := []uint32{infinite | minus, greatest | minus, one | minus, 0x800000 | minus, 1 | minus, 0, 1, 2, 0x7fffff, 0x800000, one - 1, one, one + 1, greatest, infinite}
 	for i, a := range rising {
 		for k, b := range rising {
@@ -220,6 +229,7 @@ func TestCmpWords(t *testing.T) {
 }
 
 func TestHalvesAround(t *testing.T) {
+	t.Parallel()
 	for h := uint32(0); h < 0x7c00; h++ {
 		low := impl.WordOfHalf(h)
 		high := impl.RoundNumber(65536, 0, impl.ToZero)

@@ -51,6 +51,7 @@ func half(a uint32) func(int) uint32 {
 }
 
 func TestHalvesBetweenTwo(t *testing.T) {
+	t.Parallel()
 	heldEdges(t, []edge{
 		{"2^24 + 1", number(1<<24+1, 0), [5]uint32{0x4b800000, 0x4b800001, 0x4b800000, 0x4b800001, 0x4b800000}},
 		{"2^24 + 3", number(1<<24+3, 0), [5]uint32{0x4b800002, 0x4b800002, 0x4b800001, 0x4b800002, 0x4b800001}},
@@ -79,6 +80,7 @@ func TestHalvesBetweenTwo(t *testing.T) {
 }
 
 func TestSignsOfNoughts(t *testing.T) {
+	t.Parallel()
 	mixed := [5]uint32{0, 0, 0, 0, minus}
 	heldEdges(t, []edge{
 		{"0 of RoundNumber", number(0, 0), alike(0)},
@@ -123,6 +125,7 @@ func TestSignsOfNoughts(t *testing.T) {
 }
 
 func TestStepsThatEnd(t *testing.T) {
+	t.Parallel()
 	heldEdges(t, []edge{
 		{"2^-149", number(1, -149), alike(1)},
 		{"2^-150", number(1, -150), [5]uint32{0, 1, 0, 1, 0}},
@@ -149,6 +152,7 @@ func TestStepsThatEnd(t *testing.T) {
 }
 
 func TestBeyondTheGreatest(t *testing.T) {
+	t.Parallel()
 	above := [5]uint32{infinite, infinite, greatest, infinite, greatest}
 	below := [5]uint32{infinite | minus, infinite | minus, greatest | minus, greatest | minus, infinite | minus}
 	heldEdges(t, []edge{
@@ -183,6 +187,7 @@ func TestBeyondTheGreatest(t *testing.T) {
 }
 
 func TestInfiniteOnesStay(t *testing.T) {
+	t.Parallel()
 	heldEdges(t, []edge{
 		{"infinite + 1", sum(infinite, one), alike(infinite)},
 		{"-greatest + infinite", sum(greatest|minus, infinite), alike(infinite)},
@@ -212,6 +217,7 @@ func TestInfiniteOnesStay(t *testing.T) {
 }
 
 func TestNaNsThatComeOut(t *testing.T) {
+	t.Parallel()
 	nan := alike(impl.TheNaN)
 	heldEdges(t, []edge{
 		{"infinite - infinite", sum(infinite, infinite|minus), nan},
@@ -252,6 +258,7 @@ func TestNaNsThatComeOut(t *testing.T) {
 }
 
 func TestWholesAtTheirBounds(t *testing.T) {
+	t.Parallel()
 	for _, e := range []struct {
 		a    uint32
 		want [5]int

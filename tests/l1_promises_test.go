@@ -25,6 +25,7 @@ func somePairs(each func(a, b uint32)) {
 
 // Promise 1: sums and products do not hang on their order.
 func TestPromise1Order(t *testing.T) {
+	t.Parallel()
 	c := newChance(12)
 	somePairs(func(a, b uint32) {
 		w := c.word()
@@ -70,6 +71,7 @@ func liesAround(t *testing.T, what string, got func(mode int) uint32) {
 
 // Promise 1: roundings lie around.
 func TestPromise1Around(t *testing.T) {
+	t.Parallel()
 	c := newChance(13)
 	somePairs(func(a, b uint32) {
 		liesAround(t, "a sum", sum(a, b))
@@ -99,6 +101,7 @@ func liesAroundWhole(t *testing.T, a uint32) {
 
 // Roundings of a number and of it with the other sign mirror each other.
 func TestPromise1Mirrored(t *testing.T) {
+	t.Parallel()
 	mirror := [...]int{impl.NearEven, impl.NearAway, impl.ToZero, impl.ToDown, impl.ToUp}
 	somePairs(func(a, b uint32) {
 		for _, mode := range allModes {
@@ -116,6 +119,7 @@ func TestPromise1Mirrored(t *testing.T) {
 
 // Promise 1: what is fused with 1 is the sum.
 func TestPromise1FusedWithOne(t *testing.T) {
+	t.Parallel()
 	somePairs(func(a, b uint32) {
 		for i, mode := range allModes {
 			s := impl.AddWords(a, b, mode)
@@ -132,6 +136,7 @@ func TestPromise1FusedWithOne(t *testing.T) {
 // Promise 1: what is fused with a nought is the product; where that is 0 itself
 // the nought of the other sign makes it a sum of two noughts.
 func TestPromise1FusedWithNoughts(t *testing.T) {
+	t.Parallel()
 	somePairs(func(a, b uint32) {
 		for i, mode := range allModes {
 			p := impl.MulWords(a, b, mode)
@@ -159,6 +164,7 @@ func TestPromise1FusedWithNoughts(t *testing.T) {
 
 // Promise 1: halves come back.
 func TestPromise1HalvesComeBack(t *testing.T) {
+	t.Parallel()
 	for h := range uint32(65536) {
 		want := h
 		if h&0x7fff > 0x7c00 {
@@ -174,6 +180,7 @@ func TestPromise1HalvesComeBack(t *testing.T) {
 
 // Promise 25: modes that are none.
 func TestPromise25Modes(t *testing.T) {
+	t.Parallel()
 	for _, mode := range badModes {
 		for _, a := range moreWords() {
 			for _, b := range fewWords() {
@@ -195,6 +202,7 @@ func TestPromise25Modes(t *testing.T) {
 
 // Promise 25: powers outside -400..400.
 func TestPromise25Powers(t *testing.T) {
+	t.Parallel()
 	nums := []int{0, 1, -1, 3, math.MinInt64, math.MaxInt64}
 	for _, power := range []int{-401, 401, -402, 1000, -1000, 1 << 32, -1 << 32, math.MinInt64, math.MaxInt64} {
 		for _, num := range nums {
@@ -210,6 +218,7 @@ func TestPromise25Powers(t *testing.T) {
 
 // Promise 25: words that are no halves.
 func TestPromise25Halves(t *testing.T) {
+	t.Parallel()
 	for _, h := range []uint32{65536, 65537, 65536 + 0x3c00, 65536 + 0x7c00, 1 << 17, one, infinite, impl.TheNaN, minus, math.MaxUint32} {
 		if w := impl.WordOfHalf(h); w != 0 {
 			t.Errorf("WordOfHalf(%#x) = %#x, want 0", h, w)
@@ -219,6 +228,7 @@ func TestPromise25Halves(t *testing.T) {
 
 // Promise 25: the least and the greatest int, as what they are.
 func TestPromise25Ints(t *testing.T) {
+	t.Parallel()
 	heldEdges(t, []edge{
 		{"the least int", number(math.MinInt64, 0), alike(0xdf000000)},
 		{"the greatest int", number(math.MaxInt64, 0), [5]uint32{0x5f000000, 0x5f000000, 0x5effffff, 0x5f000000, 0x5effffff}},

@@ -18,6 +18,7 @@ var badMasks = [...]int{-1, -2, -65535, -65536, -1 << 32, math.MinInt64, math.Mi
 func cwOf(re, im uint32) impl.Cw { return impl.Cw{Re: re, Im: im} }
 
 func TestSignsOfNoughtsInSums(t *testing.T) {
+	t.Parallel()
 	for _, e := range []struct{ a, b, sum, product impl.Cw }{
 		{cwOf(0, 0), cwOf(0, 0), cwOf(0, 0), cwOf(0, 0)},
 		{cwOf(minus, minus), cwOf(minus, minus), cwOf(minus, minus), cwOf(0, 0)},
@@ -38,6 +39,7 @@ func TestSignsOfNoughtsInSums(t *testing.T) {
 }
 
 func TestInfinitePartsOfProducts(t *testing.T) {
+	t.Parallel()
 	nan := uint32(impl.TheNaN)
 	for _, e := range []struct{ a, b, product impl.Cw }{
 		{cwOf(infinite, 0), cwOf(one, 0), cwOf(infinite, nan)},
@@ -54,6 +56,7 @@ func TestInfinitePartsOfProducts(t *testing.T) {
 }
 
 func TestTurnsOfNoughtsAndNaNs(t *testing.T) {
+	t.Parallel()
 	nan := uint32(impl.TheNaN)
 	for _, e := range []struct {
 		a        impl.Cw
@@ -90,6 +93,7 @@ func TestTurnsOfNoughtsAndNaNs(t *testing.T) {
 }
 
 func TestWavesWrittenOut(t *testing.T) {
+	t.Parallel()
 	nan := uint32(impl.TheNaN)
 	above, below := uint32(1060439283), uint32(3207922931)
 	for _, e := range []struct{ l, want []impl.Cw }{
@@ -118,6 +122,7 @@ func TestWavesWrittenOut(t *testing.T) {
 // Each product is rounded ahead of the sum: rounded once, number 1 would be
 // (0x3fb504f7, 0x34e24630).
 func TestWavesRoundEachProduct(t *testing.T) {
+	t.Parallel()
 	l := make([]impl.Cw, 8)
 	l[1] = cwOf(one, one+5)
 	want := cwOf(0x3fb504f6, 0x34e00000)
@@ -130,6 +135,7 @@ func TestWavesRoundEachProduct(t *testing.T) {
 }
 
 func TestWavesOfOtherLengths(t *testing.T) {
+	t.Parallel()
 	for n := range 40 {
 		got := impl.WavesCw(make([]impl.Cw, n))
 		want := 0
@@ -146,6 +152,7 @@ func TestWavesOfOtherLengths(t *testing.T) {
 }
 
 func TestMasksAtTheirEdges(t *testing.T) {
+	t.Parallel()
 	for n := 0; n <= 16; n++ {
 		last := 1<<n - 1
 		if !impl.GoodMask(n, 0) || !impl.GoodMask(n, last) || impl.GoodMask(n, last+1) || impl.GoodMask(n, -1) {
@@ -167,6 +174,7 @@ func TestMasksAtTheirEdges(t *testing.T) {
 }
 
 func TestBallotsAtTheirEdges(t *testing.T) {
+	t.Parallel()
 	all := make([]bool, 20)
 	for i := range all {
 		all[i] = true
@@ -186,6 +194,7 @@ func TestBallotsAtTheirEdges(t *testing.T) {
 }
 
 func TestFirstLanesAtTheirEdges(t *testing.T) {
+	t.Parallel()
 	for _, mask := range append([]int{0}, badMasks[:]...) {
 		if n := impl.FirstLane(mask); n != -1 {
 			t.Errorf("FirstLane(%d) = %d, want -1", mask, n)
@@ -199,6 +208,7 @@ func TestFirstLanesAtTheirEdges(t *testing.T) {
 }
 
 func TestShufflesWithLanesOff(t *testing.T) {
+	t.Parallel()
 	l := []uint32{10, 11, 12, 13}
 	for _, e := range []struct {
 		from []int
@@ -222,6 +232,7 @@ func TestShufflesWithLanesOff(t *testing.T) {
 }
 
 func TestSumsOfWholesWrap(t *testing.T) {
+	t.Parallel()
 	l := []uint32{math.MaxUint32, 5, 1, minus, minus}
 	for mask, want := range map[int]uint32{0: 0, 1: math.MaxUint32, 2: 5, 5: 0, 7: 5, 24: 0, 31: 5, 16: minus} {
 		if got, ok := impl.SumWholes(l, mask); !ok || got != want {
@@ -241,6 +252,7 @@ func TestSumsOfWholesWrap(t *testing.T) {
 }
 
 func TestSumsOfFloatsByHalves(t *testing.T) {
+	t.Parallel()
 	far := uint32(0x4b800000) // 2^24: one 1 more is lost upon it, two are not
 	for _, e := range []struct {
 		l    []uint32
@@ -275,6 +287,7 @@ func TestSumsOfFloatsByHalves(t *testing.T) {
 }
 
 func TestReducedLanes(t *testing.T) {
+	t.Parallel()
 	l := []uint32{5, math.MaxUint32, minus, minus - 1, 3}
 	for _, e := range []struct {
 		mask int

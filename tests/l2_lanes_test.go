@@ -9,6 +9,7 @@ import (
 )
 
 func TestConstantsOfLanes(t *testing.T) {
+	t.Parallel()
 	if impl.MaxLanes != 16 {
 		t.Error("MaxLanes")
 	}
@@ -25,6 +26,7 @@ func heldCws(t *testing.T, a, b impl.Cw) {
 }
 
 func TestSumsAndProductsOfComplexNumbers(t *testing.T) {
+	t.Parallel()
 	c := newChance(21)
 	l := fewWords()
 	for _, re := range l {
@@ -42,6 +44,7 @@ func TestSumsAndProductsOfComplexNumbers(t *testing.T) {
 
 // The parts of these products nearly cancel, so that one rounding less shows.
 func TestProductsThatCancel(t *testing.T) {
+	t.Parallel()
 	c := newChance(22)
 	for range 3000 {
 		a := c.cw()
@@ -52,6 +55,7 @@ func TestProductsThatCancel(t *testing.T) {
 }
 
 func TestTurnsOfComplexNumbers(t *testing.T) {
+	t.Parallel()
 	c := newChance(23)
 	for range 500 {
 		a := c.cw()
@@ -72,6 +76,7 @@ func heldWaves(t *testing.T, l []impl.Cw) {
 }
 
 func TestWavesByTheirWords(t *testing.T) {
+	t.Parallel()
 	c := newChance(24)
 	edges := moreWords()
 	for _, n := range []int{1, 2, 4, 8} {
@@ -96,6 +101,7 @@ func TestWavesByTheirWords(t *testing.T) {
 
 // Near to 1 nothing is infinite, and each rounding shows.
 func TestWavesNearToOne(t *testing.T) {
+	t.Parallel()
 	c := newChance(25)
 	for _, n := range []int{2, 4, 8} {
 		for range 20000 {
@@ -109,6 +115,7 @@ func TestWavesNearToOne(t *testing.T) {
 }
 
 func TestMasksThatAreGood(t *testing.T) {
+	t.Parallel()
 	for n := -3; n <= 20; n++ {
 		for _, mask := range []int{-1 << 32, -65536, -2, -1, 0, 1, 2, 3, 7, 8, 255, 256, 32767, 32768, 65534, 65535, 65536, 131071, 1 << 32, 1<<32 + 1} {
 			want := n >= 0 && n <= 16 && mask >= 0 && float64(mask) <= math.Exp2(float64(n))-1
@@ -120,6 +127,7 @@ func TestMasksThatAreGood(t *testing.T) {
 }
 
 func TestBallots(t *testing.T) {
+	t.Parallel()
 	for mask := range 65536 {
 		lanes := make([]bool, 16)
 		for i := range lanes {
@@ -139,6 +147,7 @@ func TestBallots(t *testing.T) {
 }
 
 func TestFirstLanes(t *testing.T) {
+	t.Parallel()
 	for mask := 1; mask < 65536; mask++ {
 		want := 0
 		for !isOn(mask, want) {
@@ -177,6 +186,7 @@ func heldLanes(t *testing.T, l []uint32, from []int, mask int) {
 }
 
 func TestLanesOfEachMask(t *testing.T) {
+	t.Parallel()
 	c := newChance(26)
 	for n := 0; n <= 7; n++ {
 		for mask := range 1 << n {

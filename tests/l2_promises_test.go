@@ -26,6 +26,7 @@ func apart(w uint32, times int, of uint32) float64 {
 // Promise 2: waves twice are turned round, times how many. Of 8 the factors of
 // the eighths are rounded, so their waves are only near.
 func TestPromise2WavesTwice(t *testing.T) {
+	t.Parallel()
 	c := newChance(31)
 	for n, near := range map[int]float64{1: 0, 2: 0, 4: 0, 8: 1.0 / 1024} {
 		for range 2000 {
@@ -46,6 +47,7 @@ func TestPromise2WavesTwice(t *testing.T) {
 
 // Waves of 8 have the numbers turned round themselves, once they are rounded.
 func TestPromise2WavesOfEight(t *testing.T) {
+	t.Parallel()
 	c := newChance(32)
 	for range 2000 {
 		l := c.smallWholes(8)
@@ -61,6 +63,7 @@ func TestPromise2WavesOfEight(t *testing.T) {
 
 // Promise 2: turns add up, also where the sum of the quarters wraps.
 func TestPromise2TurnsAddUp(t *testing.T) {
+	t.Parallel()
 	c := newChance(33)
 	quarters := []int{-1 << 32, -9, -8, -7, -6, -5, -4, -3, -2, -1, 0, 1, 2, 3, 4, 5, 6, 7, 8, 9, 1 << 32, math.MinInt64, math.MinInt64 + 3, math.MaxInt64, math.MaxInt64 - 1}
 	numbers := []impl.Cw{cwOf(0, 0), cwOf(minus, 0), cwOf(0, minus), cwOf(impl.TheNaN, farNaN), cwOf(infinite, one)}
@@ -83,6 +86,7 @@ func TestPromise2TurnsAddUp(t *testing.T) {
 
 // A turn is the product with what (1, 0) is turned to, noughts aside.
 func TestPromise2TurnsAreProducts(t *testing.T) {
+	t.Parallel()
 	c := newChance(34)
 	for range 3000 {
 		a := impl.Cw{Re: c.word(), Im: c.word()}
@@ -101,6 +105,7 @@ func TestPromise2TurnsAreProducts(t *testing.T) {
 
 // Promise 2: what is ahead, and the last one, are the sum.
 func TestPromise2AheadAndTheLast(t *testing.T) {
+	t.Parallel()
 	c := newChance(35)
 	for n := 1; n <= 16; n++ {
 		for range 500 {
@@ -121,6 +126,7 @@ func TestPromise2AheadAndTheLast(t *testing.T) {
 
 // Promise 25: masks that are not good for the lanes, and lanes that are too many.
 func TestPromise25Masks(t *testing.T) {
+	t.Parallel()
 	c := newChance(36)
 	for n := 0; n <= 20; n++ {
 		masks := append([]int{1 << n, 1<<n + 1}, badMasks[:]...)
@@ -160,6 +166,7 @@ func refused(t *testing.T, l []uint32, from []int, mask int) {
 
 // Promise 25: from of another length than the lanes.
 func TestPromise25OtherLengths(t *testing.T) {
+	t.Parallel()
 	for n := 0; n <= 16; n++ {
 		for m := 0; m <= 20; m++ {
 			got, ok := impl.ShuffleLanes(make([]uint32, n), make([]int, m), 0)
@@ -175,6 +182,7 @@ func TestPromise25OtherLengths(t *testing.T) {
 
 // Promise 25: no lanes at all are lanes, too.
 func TestPromise25NoLanes(t *testing.T) {
+	t.Parallel()
 	for _, l := range [][]uint32{nil, {}} {
 		for _, from := range [][]int{nil, {}} {
 			if got, ok := impl.ShuffleLanes(l, from, 0); !ok || len(got) != 0 {
@@ -231,6 +239,7 @@ func apartFrom[T, U comparable](t *testing.T, what string, l []T, call func([]T)
 // Promise 25: nothing is written into an argument, and no answer shares its
 // memory with one.
 func TestPromise25NewMemory(t *testing.T) {
+	t.Parallel()
 	c := newChance(37)
 	for _, n := range []int{1, 2, 4, 8} {
 		l := c.cws(n)

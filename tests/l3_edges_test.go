@@ -47,6 +47,7 @@ func heldTold(t *testing.T, l []string) {
 }
 
 func TestLongestSign(t *testing.T) {
+	t.Parallel()
 	heldTold(t, []string{
 		"<", "sign <",
 		"<<", "sign <<",
@@ -83,6 +84,7 @@ func TestLongestSign(t *testing.T) {
 }
 
 func TestPoints(t *testing.T) {
+	t.Parallel()
 	heldTold(t, []string{
 		".", "LexRune at 0",
 		"..", "sign ..",
@@ -116,6 +118,7 @@ func TestPoints(t *testing.T) {
 }
 
 func TestComments(t *testing.T) {
+	t.Parallel()
 	heldTold(t, []string{
 		"/", "sign /",
 		"//", "",
@@ -146,6 +149,7 @@ func TestComments(t *testing.T) {
 }
 
 func TestBlanksAndOtherBytes(t *testing.T) {
+	t.Parallel()
 	heldTold(t, []string{
 		"", "",
 		" ", "",
@@ -173,6 +177,7 @@ func TestBlanksAndOtherBytes(t *testing.T) {
 }
 
 func TestNamesAndWords(t *testing.T) {
+	t.Parallel()
 	heldTold(t, []string{
 		"if", "word if",
 		"iff", "name iff",
@@ -208,6 +213,7 @@ func TestNamesAndWords(t *testing.T) {
 }
 
 func TestNumbers(t *testing.T) {
+	t.Parallel()
 	nine, ten := strings.Repeat("9", 9), strings.Repeat("1", 10)
 	heldTold(t, []string{
 		"0", "whole 0",
@@ -254,6 +260,7 @@ func TestNumbers(t *testing.T) {
 
 // Broken runes alone, within a name and at its end, and behind all else.
 func TestBrokenRunes(t *testing.T) {
+	t.Parallel()
 	twenty := strings.Repeat("é", 20)
 	for _, s := range brokenRunes {
 		heldTold(t, []string{
@@ -285,6 +292,7 @@ func TestBrokenRunes(t *testing.T) {
 }
 
 func TestWholeRunes(t *testing.T) {
+	t.Parallel()
 	for _, s := range wholeRunes {
 		heldTold(t, []string{
 			s, "name " + s,
@@ -304,6 +312,7 @@ func TestWholeRunes(t *testing.T) {
 }
 
 func TestLongSources(t *testing.T) {
+	t.Parallel()
 	blanks := strings.Repeat(" ", 1999)
 	heldTold(t, []string{
 		blanks + " ", "",
@@ -322,6 +331,7 @@ func TestLongSources(t *testing.T) {
 }
 
 func TestManyTokens(t *testing.T) {
+	t.Parallel()
 	full := strings.Repeat("+", 400)
 	if r := impl.ReadTokens(full); r.Code != 0 || len(r.Tokens) != 400 || r.Tokens[399] != (impl.Token{Kind: impl.TokSign, Text: "+", At: 399}) {
 		t.Errorf("%d tokens, %d", len(r.Tokens), r.Code)
@@ -354,6 +364,7 @@ func TestManyTokens(t *testing.T) {
 }
 
 func TestLongNames(t *testing.T) {
+	t.Parallel()
 	for _, r := range []string{"a", "Z", "_", "é", "€", "\ufffd", "😀"} {
 		twenty := strings.Repeat(r, 20)
 		heldTold(t, []string{
@@ -373,6 +384,7 @@ func TestLongNames(t *testing.T) {
 }
 
 func TestGoodNameEdges(t *testing.T) {
+	t.Parallel()
 	for _, s := range []string{"_", "a", "Z9", "_0", "é", "If", "tru", "trues", "barrier_", "in0", "\ufffd", "a\u0301"} {
 		if !impl.GoodName(s) {
 			t.Errorf("GoodName(%q) is false", s)
@@ -386,6 +398,7 @@ func TestGoodNameEdges(t *testing.T) {
 }
 
 func TestFloatOfEdges(t *testing.T) {
+	t.Parallel()
 	for text, want := range map[string]uint32{
 		"0.0": 0, "0.000000000": 0, "0.00": 0,
 		"0.000000001": 0x3089705f, "0.1": 1036831949, "0.5": 0x3f000000, "0.25": 0x3e800000,

@@ -59,6 +59,7 @@ func allTokens() []impl.Token {
 
 // Promise 3: tokens come back from their text, each alone and every two.
 func TestPromise3EveryTwo(t *testing.T) {
+	t.Parallel()
 	comesBack(t, nil)
 	comesBack(t, []impl.Token{})
 	all := allTokens()
@@ -71,6 +72,7 @@ func TestPromise3EveryTwo(t *testing.T) {
 }
 
 func TestPromise3ManyTokens(t *testing.T) {
+	t.Parallel()
 	c := newChance(51)
 	for n := range 401 {
 		comesBack(t, c.tokens(n))
@@ -81,6 +83,7 @@ func TestPromise3ManyTokens(t *testing.T) {
 
 // Promise 3: a source that is read, its tokens' text read again.
 func TestPromise3Sources(t *testing.T) {
+	t.Parallel()
 	c := newChance(52)
 	readAgain(t, "kernel add(a buffer float, n int) {\n\tlet i = 0 // first\n\tfor k in 0..n { a[k] = a[k]*1.50+2.0; }\n\tif i<=1&&!(n>>2!=0) { barrier; } else { a[0] = -0.5; }\n}\n")
 	read := 0
@@ -116,6 +119,7 @@ func readAgain(t *testing.T, source string) bool {
 
 // A text may be longer than a source is.
 func TestPromise3LongTexts(t *testing.T) {
+	t.Parallel()
 	twenty := impl.Token{Kind: impl.TokName, Text: strings.Repeat("😀", 20)}
 	for _, n := range []int{24, 25, 100, 400} {
 		l := slices.Repeat([]impl.Token{twenty}, n)
@@ -139,6 +143,7 @@ func noText(t *testing.T, l []impl.Token) {
 
 // Promise 25: Kinds and Texts that may not be: each text has one kind alone.
 func TestPromise25Kinds(t *testing.T) {
+	t.Parallel()
 	kinds := []int{0, 1, 2, 3, 4, 5, 6, -1, -5, 255, 257, 1 << 32, 1<<32 + 1, math.MinInt64, math.MaxInt64}
 	for _, token := range allTokens() {
 		for _, kind := range kinds {
@@ -164,6 +169,7 @@ func notTokens() []string {
 }
 
 func TestPromise25Texts(t *testing.T) {
+	t.Parallel()
 	for _, text := range notTokens() {
 		for kind := range 7 {
 			noText(t, []impl.Token{{Kind: kind, Text: text}})
@@ -173,6 +179,7 @@ func TestPromise25Texts(t *testing.T) {
 
 // Promise 25: one that may not be, at any place, and one too many.
 func TestPromise25TokensText(t *testing.T) {
+	t.Parallel()
 	c := newChance(53)
 	for n := 1; n <= 400; n += 19 {
 		l := c.tokens(n)
@@ -196,6 +203,7 @@ func TestPromise25TokensText(t *testing.T) {
 
 // Promise 25: texts that are no TokFloat's have no word.
 func TestPromise25FloatOf(t *testing.T) {
+	t.Parallel()
 	l := notTokens()
 	for _, token := range allTokens() {
 		if token.Kind != impl.TokFloat {
@@ -222,6 +230,7 @@ func TestPromise25FloatOf(t *testing.T) {
 
 // Promise 25: sources of any bytes and any length end in tokens or in a fault.
 func TestPromise25Sources(t *testing.T) {
+	t.Parallel()
 	c := newChance(54)
 	for range 3000 {
 		b := make([]byte, c.Intn(2100))
@@ -252,6 +261,7 @@ func sharesText(text, of string) bool {
 
 // Promise 25: lists and texts that are answered are new memory.
 func TestPromise25NewTokens(t *testing.T) {
+	t.Parallel()
 	c := newChance(55)
 	for n := range 200 {
 		l := c.tokens(n)
@@ -272,6 +282,7 @@ func TestPromise25NewTokens(t *testing.T) {
 
 // Promise 25: what one call of Words and Signs answers is its own.
 func TestPromise25WordsAndSigns(t *testing.T) {
+	t.Parallel()
 	for i, call := range []func() []string{impl.Words, impl.Signs} {
 		want := [][]string{wantWords, wantSigns}[i]
 		first, second := call(), call()

@@ -25,6 +25,7 @@ func heldSource(t *testing.T, source string) {
 }
 
 func TestWordsAndSigns(t *testing.T) {
+	t.Parallel()
 	if got := impl.Words(); !slices.Equal(got, wantWords) || len(got) != 13 {
 		t.Errorf("words: %q", got)
 	}
@@ -41,6 +42,7 @@ func TestWordsAndSigns(t *testing.T) {
 }
 
 func TestReadsEveryPairOfBytes(t *testing.T) {
+	t.Parallel()
 	heldSource(t, "")
 	for a := range 256 {
 		heldSource(t, string([]byte{byte(a)}))
@@ -52,6 +54,7 @@ func TestReadsEveryPairOfBytes(t *testing.T) {
 }
 
 func TestReadsEveryFourOfSomeBytes(t *testing.T) {
+	t.Parallel()
 	some := "a0.!</=&| \n_\xc3\xa9"
 	for i := range len(some) * len(some) * len(some) * len(some) {
 		var b [4]byte
@@ -64,6 +67,7 @@ func TestReadsEveryFourOfSomeBytes(t *testing.T) {
 }
 
 func TestReadsEveryPairOfPieces(t *testing.T) {
+	t.Parallel()
 	for _, a := range pieces {
 		for _, b := range pieces {
 			heldSource(t, a+b)
@@ -73,6 +77,7 @@ func TestReadsEveryPairOfPieces(t *testing.T) {
 }
 
 func TestReadsManyPieces(t *testing.T) {
+	t.Parallel()
 	c := newChance(41)
 	for n := range 20000 {
 		heldSource(t, c.source(n%10))
@@ -80,6 +85,7 @@ func TestReadsManyPieces(t *testing.T) {
 }
 
 func TestReadsTokensWithAndWithoutBlanks(t *testing.T) {
+	t.Parallel()
 	c := newChance(42)
 	for n := range 3000 {
 		var b strings.Builder
@@ -92,6 +98,7 @@ func TestReadsTokensWithAndWithoutBlanks(t *testing.T) {
 }
 
 func TestReadsAnyBytes(t *testing.T) {
+	t.Parallel()
 	c := newChance(43)
 	for range 20000 {
 		b := make([]byte, c.Intn(12))
@@ -104,6 +111,7 @@ func TestReadsAnyBytes(t *testing.T) {
 
 // Each rune alone, with a letter on both sides, and cut off by a byte.
 func TestReadsEveryRune(t *testing.T) {
+	t.Parallel()
 	for r := rune(0); r <= utf8.MaxRune; r++ {
 		if r >= 0x3000 && r%61 != 0 {
 			continue
@@ -120,6 +128,7 @@ func wantName(s string) bool {
 }
 
 func TestGoodName(t *testing.T) {
+	t.Parallel()
 	c := newChance(44)
 	names := slices.Concat(pieces, brokenRunes, wholeRunes, []string{""})
 	for range 5000 {
@@ -146,6 +155,7 @@ func heldFloat(t *testing.T, text string) {
 }
 
 func TestFloatOf(t *testing.T) {
+	t.Parallel()
 	c := newChance(45)
 	for range 200000 {
 		heldFloat(t, c.floatText())
@@ -160,6 +170,7 @@ func TestFloatOf(t *testing.T) {
 // Just between two words, and a billionth below and above: from 2^15 to 2^29
 // the middle has 9 digits behind its point at most.
 func TestFloatOfBetweenTwo(t *testing.T) {
+	t.Parallel()
 	c := newChance(46)
 	least := big.NewRat(1, 1000000000)
 	for range 30000 {

@@ -92,6 +92,7 @@ func body(statements string) string { return "kernel k ( ) { " + statements + " 
 func value(expr string) string { return body("x = " + expr + " ;") }
 
 func TestStatementsAsNodes(t *testing.T) {
+	t.Parallel()
 	heldKernels(t, []string{
 		"kernel k(){}", "16 k 1, 15 0",
 		"kernel größe(int a,float b,buffer int c,buffer float d){}", "16 größe 5, 17 a 0, 18 b 0, 19 c 0, 20 d 0, 15 0",
@@ -115,6 +116,7 @@ func TestStatementsAsNodes(t *testing.T) {
 
 // An expression, its shape, and what is shown of it.
 func TestExpressionsAsTrees(t *testing.T) {
+	t.Parallel()
 	l := []string{
 		"1 - 2 - 3", "-(-(1,2),3)", "1 - 2 - 3",
 		"(1 - 2) - 3", "-(-(1,2),3)", "1 - 2 - 3",
@@ -182,6 +184,7 @@ func TestExpressionsAsTrees(t *testing.T) {
 // What stands in a condition, a bound, a value or a place has no brackets
 // around it.
 func TestNoBracketsAround(t *testing.T) {
+	t.Parallel()
 	source := "kernel k(){let a=(1+2);a=(1-2);b[(1*2)]=(1/2);if(1<2){}for i in(1|2)..(1&2){}}"
 	want := "kernel k ( ) { let a = 1 + 2 ; a = 1 - 2 ; b [ 1 * 2 ] = 1 / 2 ; if 1 < 2 { } for i in 1 | 2 .. 1 & 2 { } }"
 	r := impl.ReadKernel(source)
@@ -191,6 +194,7 @@ func TestNoBracketsAround(t *testing.T) {
 }
 
 func TestTokensThatCannotStand(t *testing.T) {
+	t.Parallel()
 	heldFaults(t, impl.SynToken,
 		"@", " \n@", "// a@", "@k", "@int", "@( )", "@let a = 1 ;", "@{ }", "@1",
 		"kernel@", "kernel @( )", "kernel @1 ( )", "kernel @if ( )", "kernel @kernel k ( ) { }", "kernel @\nlet",
@@ -208,6 +212,7 @@ func TestTokensThatCannotStand(t *testing.T) {
 }
 
 func TestBehindAKernel(t *testing.T) {
+	t.Parallel()
 	heldFaults(t, impl.SynToken,
 		"kernel k ( ) { } @}", "kernel k ( ) { } @;", "kernel k ( ) { } @kernel k ( ) { }", "kernel k ( ) { } @x", "kernel k ( ) { } @1", "kernel k ( ) { }@{", "kernel k ( ) { } // a\n @else { }",
 	)
@@ -216,6 +221,7 @@ func TestBehindAKernel(t *testing.T) {
 }
 
 func TestStatementsThatCannotStand(t *testing.T) {
+	t.Parallel()
 	heldFaults(t, impl.SynToken,
 		body("let @= 1 ;"), body("let @1 = 1 ;"), body("let @let a = 1 ;"), body("let a @;"), body("let a @== 1 ;"), body("let a = @;"), body("let a = 1 @"),
 		body("let a @[ 0 ] = 1 ;"), body("let a = 1 @= 2 ;"), body("let @int a = 1 ;"), body("let a = b @, c = 1 ;"),
@@ -231,6 +237,7 @@ func TestStatementsThatCannotStand(t *testing.T) {
 }
 
 func TestExpressionsThatCannotStand(t *testing.T) {
+	t.Parallel()
 	heldFaults(t, impl.SynToken,
 		value("@"), value("@+ 1"), value("@* 1"), value("@&& a"), value("1 @2"), value("1 @x"), value("x @1"), value("1 + @"), value("1 + @+ 1"), value("1 + @* 1"), value("1 * @/ 1"), value("1 @! 2"), value("1 != @= 2"), value("a @= b"),
 		value("- @"), value("- @+ 1"), value("! @* a"), value("- - @"), value("- @)"), value("1 - @"), value("1 - - @"), value("a @!"), value("a @! b"), value("a @! = b"), value("! @= b"),
@@ -243,6 +250,7 @@ func TestExpressionsThatCannotStand(t *testing.T) {
 
 // Calls are no names, and names are no calls.
 func TestNamesOfCalls(t *testing.T) {
+	t.Parallel()
 	for _, name := range wantCalls {
 		heldFaults(t, impl.SynToken,
 			value(name+" @"), value(name+" @+ 1"), value(name+" @[ 0 ]"), value("1 + "+name+" @"), value("- "+name+" @"), value("( "+name+" @)"), value("a [ "+name+" @]"), value(name+" @= 1"), value(name+" @x"),
@@ -263,6 +271,7 @@ func TestNamesOfCalls(t *testing.T) {
 }
 
 func TestTooFewAndTooManyInACall(t *testing.T) {
+	t.Parallel()
 	for _, name := range wantCalls {
 		args := slices.Repeat([]string{"1"}, wantArity[name])
 		heldRead(t, value(name+" ( "+strings.Join(args, " , ")+" )"))
@@ -281,6 +290,7 @@ func TestTooFewAndTooManyInACall(t *testing.T) {
 }
 
 func TestParametersAtTheirLimit(t *testing.T) {
+	t.Parallel()
 	six := strings.Repeat("int a , ", 5) + "buffer float b"
 	heldRead(t, "kernel k ( "+six+" ) { }", "kernel k ( int a ) { }", "kernel k ( int a , int a ) { }")
 	heldFaults(t, impl.SynToken,
@@ -296,6 +306,7 @@ func chain(open, closed string, n int) string {
 
 // The kernel's own { is one of those that are open.
 func TestDeepBrackets(t *testing.T) {
+	t.Parallel()
 	for _, pair := range [][2]string{{"(", ")"}, {"a [", "]"}, {"abs (", ")"}, {"float (", ")"}, {"-", ""}, {"!", ""}, {"1 + (", ")"}, {"min ( 1 ,", ")"}} {
 		heldRead(t, value(chain(pair[0], pair[1], 9)))
 		for _, n := range []int{10, 11, 30} {
@@ -327,6 +338,7 @@ func TestDeepBrackets(t *testing.T) {
 
 // Brackets that are closed, and signs whose operand has ended, are open no more.
 func TestClosedAgain(t *testing.T) {
+	t.Parallel()
 	nine, signs := chain("(", ")", 9), chain("-", "", 9)
 	loads, calls := chain("a [", "]", 9), chain("abs (", ")", 9)
 	heldRead(t,
@@ -353,6 +365,7 @@ func TestClosedAgain(t *testing.T) {
 
 // SynToken and SynDeep in one source: the first from the left.
 func TestDeepAndWrong(t *testing.T) {
+	t.Parallel()
 	ten := "kernel k ( ) { x = " + strings.Repeat("( ", 9)
 	heldFaults(t, impl.SynDeep, ten+"@( ) ; }", ten+"@( ;", ten+"@(", ten+"@- )", ten+"@- - -", ten+"@! = 1", ten+"a @[ ]", ten+"abs @( )", ten+"tid @( 1", ten+"1 + @- + 1", ten+"1 * @( * 2")
 	heldFaults(t, impl.SynToken,
@@ -365,6 +378,7 @@ func TestDeepAndWrong(t *testing.T) {
 
 // The codes of ReadTokens are told ahead of all others, wherever they are.
 func TestCodesOfTokensFirst(t *testing.T) {
+	t.Parallel()
 	deep := value(chain("(", ")", 12))
 	heldKernels(t, []string{
 		") #", "LexRune at 2",
@@ -387,6 +401,7 @@ func TestCodesOfTokensFirst(t *testing.T) {
 func ones(n int) string { return "1" + strings.Repeat("+1", n-1) }
 
 func TestManyNodes(t *testing.T) {
+	t.Parallel()
 	most, more := value(ones(124)), value("- "+ones(124))
 	if r := impl.ReadKernel(most); r.Code != 0 || len(r.Nodes) != 250 || !impl.GoodKernel(r.Nodes) {
 		t.Errorf("250 nodes: %d, %d", r.Code, len(r.Nodes))
@@ -439,6 +454,7 @@ func notGood(t *testing.T, ahead string, l ...string) {
 }
 
 func TestKernelsThatAreNotGood(t *testing.T) {
+	t.Parallel()
 	if impl.GoodKernel(nil) || impl.GoodKernel([]impl.Node{}) {
 		t.Error("no nodes are a kernel")
 	}
@@ -454,6 +470,7 @@ func TestKernelsThatAreNotGood(t *testing.T) {
 }
 
 func TestStatementsThatAreNotGood(t *testing.T) {
+	t.Parallel()
 	notGood(t, "16 k 1, 15 1, ",
 		"17 a 0", "20 a 0", "15 0", "16 k 1, 15 0", "1 1 0", "4 x 0", "8 tid 0", "7 + 2, 1 1 0, 1 1 0", "0 0",
 		"14 x 0", "14 1, 14 0", "14 ; 0", "14 barrier 0", "14 -1", "14 0, 14 0",
@@ -467,6 +484,7 @@ func TestStatementsThatAreNotGood(t *testing.T) {
 }
 
 func TestExpressionsThatAreNotGood(t *testing.T) {
+	t.Parallel()
 	notGood(t, "16 k 1, 15 1, 10 x 1, ",
 		"1 01 0", "1 -1 0", "1 2147483648 0", "1 1.5 0", "1 x 0", "1 0", "1 1 1, 1 1 0", "1 1 + 1 0", "1 true 0", "1 ( 1 ) 0", "1 1 -1",
 		"2 1 0", "2 1. 0", "2 .5 0", "2 1.0000000000 0", "2 -1.5 0", "2 0", "2 1.5 1, 1 1 0", "3 1 0", "3 0", "3 bool 0", "3 x 0", "3 True 0", "3 true 1, 1 1 0",
@@ -481,6 +499,7 @@ func TestExpressionsThatAreNotGood(t *testing.T) {
 
 // Trees at the limits of their depth and of their nodes.
 func TestTreesAtTheirLimits(t *testing.T) {
+	t.Parallel()
 	leaf := tree{kind: impl.NWhole, text: "1"}
 	deeper := map[string]func(tree) tree{
 		"-":      func(t tree) tree { return tree{impl.NUnary, "-", []tree{t}} },
@@ -541,6 +560,7 @@ func heldLimit(t *testing.T, l []tree, shown bool, bytes, tokens int) {
 
 // A text of MaxSource bytes and one more, of far less than MaxTokens tokens.
 func TestShownAtMaxSource(t *testing.T) {
+	t.Parallel()
 	zero := tree{kind: impl.NWhole, text: "0"}
 	set := func(name string) tree { return tree{impl.NSet, name, []tree{zero}} }
 	twenty := strings.Repeat("é", 20)
@@ -557,6 +577,7 @@ func TestShownAtMaxSource(t *testing.T) {
 
 // A text of MaxTokens tokens and one more, of far less than MaxSource bytes.
 func TestShownAtMaxTokens(t *testing.T) {
+	t.Parallel()
 	zero := tree{kind: impl.NWhole, text: "0"}
 	two, four := tree{kind: impl.NBarrier}, tree{impl.NSet, "x", []tree{zero}}
 	five := tree{impl.NSet, "x", []tree{{impl.NUnary, "-", []tree{zero}}}}
@@ -577,6 +598,7 @@ func TestShownAtMaxTokens(t *testing.T) {
 }
 
 func TestNodeEndsAtTheirEdges(t *testing.T) {
+	t.Parallel()
 	kids := func(l ...int) []impl.Node {
 		var nodes []impl.Node
 		for _, n := range l {

@@ -13,6 +13,7 @@ import (
 // l4_trees_test.go.
 
 func TestConstantsOfGrammar(t *testing.T) {
+	t.Parallel()
 	kinds := []int{
 		impl.NWhole, impl.NFloat, impl.NBool, impl.NName, impl.NLoad, impl.NUnary, impl.NBinary, impl.NCall, impl.NLet, impl.NSet,
 		impl.NStore, impl.NIf, impl.NFor, impl.NBarrier, impl.NBlock, impl.NKernel, impl.NWholeIn, impl.NFloatIn, impl.NWholeBuf, impl.NFloatBuf,
@@ -28,6 +29,7 @@ func TestConstantsOfGrammar(t *testing.T) {
 }
 
 func TestCalls(t *testing.T) {
+	t.Parallel()
 	if got := impl.Calls(); !slices.Equal(got, wantCalls) || !slices.IsSorted(got) || len(got) != 11 {
 		t.Errorf("calls: %q", got)
 	}
@@ -49,6 +51,7 @@ func TestCalls(t *testing.T) {
 }
 
 func TestStrengths(t *testing.T) {
+	t.Parallel()
 	between := 0
 	for _, sign := range slices.Concat(wantSigns, wantWords, pieces, brokenRunes, []string{"", "+ ", " +", "++", "&&&", "<=>", "!!", "+\x00"}) {
 		if got := impl.Strength(sign); got != wantStrength[sign] {
@@ -79,6 +82,7 @@ func heldParsed(t *testing.T, source string, want impl.Parsed) bool {
 }
 
 func TestReadsKernelsByChance(t *testing.T) {
+	t.Parallel()
 	c := newChance(61)
 	for n := range 1500 {
 		k := c.goodKernel(n % 60)
@@ -104,6 +108,7 @@ var allOfIt = strings.Fields(`kernel all ( int n , float f , buffer int a , buff
 }`)
 
 func TestAllOfItHasEverything(t *testing.T) {
+	t.Parallel()
 	r := impl.ReadKernel(strings.Join(allOfIt, " "))
 	for kind := impl.NWhole; kind <= impl.NFloatBuf; kind++ {
 		if !slices.ContainsFunc(r.Nodes, func(n impl.Node) bool { return n.Kind == kind }) {
@@ -140,6 +145,7 @@ func heldEachToken(t *testing.T, change func(held func(tokens ...string), at int
 }
 
 func TestReadsOneTokenLeftOut(t *testing.T) {
+	t.Parallel()
 	heldEachToken(t, func(held func(...string), at int) {
 		if at < len(allOfIt) {
 			held(allOfIt[at+1:]...)
@@ -148,6 +154,7 @@ func TestReadsOneTokenLeftOut(t *testing.T) {
 }
 
 func TestReadsOneTokenPutIn(t *testing.T) {
+	t.Parallel()
 	heldEachToken(t, func(held func(...string), at int) {
 		for _, other := range others {
 			held(append([]string{other}, allOfIt[at:]...)...)
@@ -156,6 +163,7 @@ func TestReadsOneTokenPutIn(t *testing.T) {
 }
 
 func TestReadsOneTokenForAnother(t *testing.T) {
+	t.Parallel()
 	heldEachToken(t, func(held func(...string), at int) {
 		for _, other := range others {
 			if at < len(allOfIt) {
@@ -166,6 +174,7 @@ func TestReadsOneTokenForAnother(t *testing.T) {
 }
 
 func TestReadsOneTokenForItsNeighbour(t *testing.T) {
+	t.Parallel()
 	heldEachToken(t, func(held func(...string), at int) {
 		if at+1 < len(allOfIt) {
 			held(slices.Concat([]string{allOfIt[at+1], allOfIt[at]}, allOfIt[at+2:])...)
@@ -175,6 +184,7 @@ func TestReadsOneTokenForItsNeighbour(t *testing.T) {
 
 // Cut off behind each token, with and without what may stand behind it.
 func TestReadsWhatIsCutOff(t *testing.T) {
+	t.Parallel()
 	heldEachToken(t, func(held func(...string), at int) {
 		held()
 		for _, behind := range []string{"", "\n", "// a", " \t//\n "} {
@@ -188,6 +198,7 @@ func TestReadsWhatIsCutOff(t *testing.T) {
 
 // Several faults at once, and tokens by chance where they may stand.
 func TestReadsTokensByChance(t *testing.T) {
+	t.Parallel()
 	c := newChance(62)
 	read := 0
 	for n := range 1500 {
@@ -225,6 +236,7 @@ func (c chance) standingTokens(limit int) []string {
 
 // Whatever can stand is read, up to the limit of what is open.
 func TestReadsStandingTokens(t *testing.T) {
+	t.Parallel()
 	c := newChance(63)
 	deep := 0
 	for n := range 400 {
@@ -255,6 +267,7 @@ func heldGood(t *testing.T, l []impl.Node) bool {
 }
 
 func TestGoodKernelsByChance(t *testing.T) {
+	t.Parallel()
 	c := newChance(64)
 	good, deep := 0, 0
 	for n := range 4000 {
@@ -312,6 +325,7 @@ func heldChanges(t *testing.T, l []impl.Node) {
 }
 
 func TestGoodKernelsWithOneChange(t *testing.T) {
+	t.Parallel()
 	heldChanges(t, impl.ReadKernel(strings.Join(allOfIt, " ")).Nodes)
 	heldChanges(t, impl.ReadKernel("kernel k ( ) { }").Nodes)
 	heldChanges(t, impl.ReadKernel("kernel k ( int a , float b , buffer int c , buffer float d , int e , int f ) { barrier ; }").Nodes)
@@ -320,6 +334,7 @@ func TestGoodKernelsWithOneChange(t *testing.T) {
 // Any kind of node above any other: each node of a kernel replaced by each of
 // its trees.
 func TestGoodKernelsWithTreesForOthers(t *testing.T) {
+	t.Parallel()
 	l := impl.ReadKernel(strings.Join(allOfIt, " ")).Nodes
 	good := 0
 	for i := range l {
@@ -336,6 +351,7 @@ func TestGoodKernelsWithTreesForOthers(t *testing.T) {
 }
 
 func TestGoodKernelsWithNodesByChance(t *testing.T) {
+	t.Parallel()
 	c := newChance(65)
 	for range 20000 {
 		l := make([]impl.Node, c.Intn(8))
@@ -362,6 +378,7 @@ func heldShown(t *testing.T, k tree) {
 }
 
 func TestShowsKernelsByChance(t *testing.T) {
+	t.Parallel()
 	c := newChance(66)
 	for n := range 1500 {
 		heldShown(t, c.goodKernel(n%50))
@@ -379,6 +396,7 @@ func setTo(e tree) tree {
 // Each sign between two within each other one, on both sides, with signs ahead
 // around it and within.
 func TestShowsEachTwoSigns(t *testing.T) {
+	t.Parallel()
 	a, b, d := exprOf([]string{"a"}), exprOf([]string{"-", "b"}), exprOf([]string{"c", "[", "1", "]"})
 	for _, outer := range betweenSigns {
 		for _, inner := range betweenSigns {
@@ -409,6 +427,7 @@ func heldEnd(t *testing.T, l []impl.Node, at int) {
 }
 
 func TestNodeEnds(t *testing.T) {
+	t.Parallel()
 	c := newChance(67)
 	for n := range 300 {
 		l := c.anyKernel(n).nodes()

@@ -27,6 +27,7 @@ func kernelComesBack(t *testing.T, l []impl.Node) (string, bool) {
 
 // Promise 4: kernels with nodes of every kind come back from their text.
 func TestPromise4KernelsComeBack(t *testing.T) {
+	t.Parallel()
 	c := newChance(71)
 	kinds := map[int]int{}
 	for n := range 3000 {
@@ -73,6 +74,7 @@ func sourceComesBack(t *testing.T, source string) bool {
 
 // Promise 4: sources that are read have a text.
 func TestPromise4SourcesHaveAText(t *testing.T) {
+	t.Parallel()
 	c := newChance(72)
 	if !sourceComesBack(t, strings.Join(allOfIt, " ")) || !sourceComesBack(t, strings.Join(allOfIt, "\n")) {
 		t.Error("the kernel with everything in it is not read")
@@ -105,6 +107,7 @@ func TestPromise4SourcesHaveAText(t *testing.T) {
 // Promise 4: a source without blanks may be read though its text is too long,
 // and one with many brackets has a text with few.
 func TestPromise4TextsThatAreTooLong(t *testing.T) {
+	t.Parallel()
 	name := strings.Repeat("a", 15)
 	for n := 100; n < 124; n++ {
 		source := "kernel k(){x=" + name + strings.Repeat("+"+name, n-1) + ";}"
@@ -127,6 +130,7 @@ func TestPromise4TextsThatAreTooLong(t *testing.T) {
 // Promise 4: without any one pair of the brackets that are told another tree is
 // read, or none.
 func TestPromise4EachPairIsNeeded(t *testing.T) {
+	t.Parallel()
 	c := newChance(73)
 	pairs := 0
 	for n := range 1500 {
@@ -155,6 +159,7 @@ func TestPromise4EachPairIsNeeded(t *testing.T) {
 // Promise 25: nodes with Kinds, Texts and Kids of any sort, few of them and
 // many.
 func TestPromise25AnyNodes(t *testing.T) {
+	t.Parallel()
 	c := newChance(74)
 	texts := slices.Concat(wrongTexts, brokenRunes, []string{strings.Repeat("x", 5000), "\x00", "k\x00"})
 	some := func(n int) int {
@@ -183,6 +188,7 @@ func TestPromise25AnyNodes(t *testing.T) {
 
 // Promise 25: a Text that is no UTF-8, or no token's, at each node.
 func TestPromise25BrokenTexts(t *testing.T) {
+	t.Parallel()
 	l := impl.ReadKernel(strings.Join(allOfIt, " ")).Nodes
 	for i := range l {
 		for _, text := range slices.Concat(brokenRunes, notTokens()) {
@@ -204,6 +210,7 @@ func TestPromise25BrokenTexts(t *testing.T) {
 // Promise 25: more nodes than there may be, beneath one another or side by
 // side.
 func TestPromise25ManyNodes(t *testing.T) {
+	t.Parallel()
 	for _, n := range []int{251, 1000, 200000} {
 		for _, node := range []impl.Node{{Kind: impl.NUnary, Text: "-", Kids: 1}, {Kind: impl.NBinary, Text: "+", Kids: 2}, {Kind: impl.NBlock, Kids: 1}, {Kind: impl.NBarrier}, {Kind: impl.NWholeIn, Text: "a"}, {Kind: math.MaxInt64, Kids: math.MaxInt64}} {
 			l := append([]impl.Node{{Kind: impl.NKernel, Text: "k", Kids: 1}, {Kind: impl.NBlock, Kids: n}}, slices.Repeat([]impl.Node{node}, n)...)
@@ -216,6 +223,7 @@ func TestPromise25ManyNodes(t *testing.T) {
 
 // Promise 25: sources of any bytes and any length end in nodes or in a fault.
 func TestPromise25AnySources(t *testing.T) {
+	t.Parallel()
 	c := newChance(75)
 	sources := slices.Concat(brokenRunes, pieces, []string{"", strings.Repeat("(", 100000), strings.Repeat("kernel k ( ) { ", 200), strings.Repeat("-", 3000)})
 	for n := range 3000 {
@@ -242,6 +250,7 @@ func TestPromise25AnySources(t *testing.T) {
 // Promise 25: nothing is written into nodes that are given, and what is
 // answered is new memory.
 func TestPromise25NewNodes(t *testing.T) {
+	t.Parallel()
 	c := newChance(76)
 	for n := range 200 {
 		l := c.anyKernel(n).nodes()
@@ -269,6 +278,7 @@ func TestPromise25NewNodes(t *testing.T) {
 
 // Promise 25: what lies behind the nodes' length is not read.
 func TestPromise25BehindNodes(t *testing.T) {
+	t.Parallel()
 	whole := impl.ReadKernel(strings.Join(allOfIt, " ")).Nodes
 	for n := range whole {
 		if impl.GoodKernel(whole[:n]) || impl.NodeEnd(whole[:n], 0) != -1 {
@@ -283,6 +293,7 @@ func TestPromise25BehindNodes(t *testing.T) {
 
 // Promise 25: what one call of Calls answers is its own.
 func TestPromise25CallsAreNew(t *testing.T) {
+	t.Parallel()
 	first, second := impl.Calls(), impl.Calls()
 	for i := range first[:cap(first)] {
 		first[:cap(first)][i] = "x"

@@ -77,6 +77,7 @@ func given(statements string) string {
 
 // A kernel with nodes of every kind.
 func TestEveryNodeHasOneType(t *testing.T) {
+	t.Parallel()
 	source := given("let x = 1 ; let y = n + 0.5 ; let p = x < f ; y = x ; a [ x ] = a [ 0 ] ; b [ tid ( ) ] = - n ; if p && ! true { x = int ( y ) ; } else { p = false ; } for i in x .. size ( ) { let q = i ; q = i % 2 ; } barrier ;")
 	l := impl.ReadKernel(source).Nodes
 	got := impl.TypeKernel(l)
@@ -97,6 +98,7 @@ func TestEveryNodeHasOneType(t *testing.T) {
 }
 
 func TestTypesOfNamesThatAreSet(t *testing.T) {
+	t.Parallel()
 	heldTypes(t, []string{
 		given("let x = 0.5; x = 1;"), "-ifif-" + "ff" + "fi",
 		given("let x = 0.5; x = n * 2;"), "-ifif-" + "ff" + "fiii",
@@ -123,6 +125,7 @@ func TestTypesOfNamesThatAreSet(t *testing.T) {
 }
 
 func TestTypesOfOperations(t *testing.T) {
+	t.Parallel()
 	heldTypes(t, []string{
 		given("let x = -true;"), "TypKind at 7: -(true)",
 		given("let x = !1;"), "TypKind at 7: !(1)",
@@ -166,6 +169,7 @@ func TestTypesOfOperations(t *testing.T) {
 }
 
 func TestNamesThatAreNotVisible(t *testing.T) {
+	t.Parallel()
 	heldTypes(t, []string{
 		given("let x = q;"), "TypName at 7: q",
 		given("let x = a;"), "TypName at 7: a",
@@ -191,6 +195,7 @@ func TestNamesThatAreNotVisible(t *testing.T) {
 }
 
 func TestNamesThatAreThereTwice(t *testing.T) {
+	t.Parallel()
 	heldTypes(t, []string{
 		"kernel k(int n, int n) { }", "TypTwice at 2: in n",
 		"kernel k(int n, float n) { }", "TypTwice at 2: in n",
@@ -222,6 +227,7 @@ func TestNamesThatAreThereTwice(t *testing.T) {
 }
 
 func TestConditionsAndBounds(t *testing.T) {
+	t.Parallel()
 	heldTypes(t, []string{
 		given("if n { }"), "TypKind at 6: if",
 		given("if f { }"), "TypKind at 6: if",
@@ -238,6 +244,7 @@ func TestConditionsAndBounds(t *testing.T) {
 }
 
 func TestWhatMayNotBeSet(t *testing.T) {
+	t.Parallel()
 	heldTypes(t, []string{
 		given("n = 1;"), "TypSet at 6: n =",
 		given("f = 1;"), "TypSet at 6: f =",
@@ -255,6 +262,7 @@ func TestWhatMayNotBeSet(t *testing.T) {
 }
 
 func TestBarriers(t *testing.T) {
+	t.Parallel()
 	heldTypes(t, []string{
 		given("barrier;"), "-ifif-" + "-",
 		given("barrier; barrier;"), "-ifif-" + "--",
@@ -270,6 +278,7 @@ func TestBarriers(t *testing.T) {
 }
 
 func TestWhatIsVisible(t *testing.T) {
+	t.Parallel()
 	heldTypes(t, []string{
 		given("let x = x;"), "TypName at 7: x",
 		given("let x = 1; let y = x;"), "-ifif-" + "ii" + "ii",
@@ -294,6 +303,7 @@ func TestWhatIsVisible(t *testing.T) {
 }
 
 func TestWhatIsVisibleInLoops(t *testing.T) {
+	t.Parallel()
 	heldTypes(t, []string{
 		given("for i in i .. 1 { }"), "TypName at 7: i",
 		given("for i in 0 .. i { }"), "TypName at 8: i",
@@ -314,6 +324,7 @@ func TestWhatIsVisibleInLoops(t *testing.T) {
 
 // Two faults and more in one kernel: nodes are looked at behind their kids.
 func TestTheFirstFault(t *testing.T) {
+	t.Parallel()
 	heldTypes(t, []string{
 		given("let n = q;"), "TypName at 7: q",
 		given("let n = 1 + true;"), "TypKind at 7: +(1,true)",
@@ -346,6 +357,7 @@ func TestTheFirstFault(t *testing.T) {
 }
 
 func TestTheFirstFaultOfALoop(t *testing.T) {
+	t.Parallel()
 	heldTypes(t, []string{
 		given("for n in q .. 1 { }"), "TypName at 7: q",
 		given("for n in 0 .. q { }"), "TypName at 8: q",
@@ -384,6 +396,7 @@ var faultyStatements = []faultyStatement{
 
 // Each two faults in one kernel, in each order: what stands ahead is told.
 func TestEachTwoFaultsInEachOrder(t *testing.T) {
+	t.Parallel()
 	around := map[string]int{ // with how many nodes there are ahead of the first statement
 		"# @": 6, "if true { # } @": 9, "if true { # @ }": 9, "if true { } else { # @ }": 10, "if true { # } else { @ }": 9, "for w in 0 .. 1 { # @ }": 10, "for w in 0 .. 1 { # } @": 10,
 		"if 1 { # } @": 9, "if 1 { } else { # } @": 10, "for w in f .. 1 { # } @": 10, "for w in 0 .. true { # @ }": 10, "let w = 1 ; # @": 8, "barrier ; # if q { @ }": 7,
@@ -418,6 +431,7 @@ func heldNames(t *testing.T, source, names string, loops int) {
 }
 
 func TestNamesAndLoops(t *testing.T) {
+	t.Parallel()
 	heldNames(t, given(""), "", 0)
 	heldNames(t, given("a[0] = n; barrier; if true { }"), "", 0)
 	heldNames(t, given("let x = 1; x = 2; let größe = x;"), "x größe", 0)
@@ -434,6 +448,7 @@ func TestNamesAndLoops(t *testing.T) {
 
 // A kernel with a fault has no names and no loops, wherever the fault is.
 func TestNamesAndLoopsBesideAFault(t *testing.T) {
+	t.Parallel()
 	for _, fault := range faultyStatements {
 		for _, form := range []string{"let x = 1 ; for i in 0 .. 1 { } #", "# let x = 1 ; for i in 0 .. 1 { }", "for i in 0 .. 1 { let x = 1 ; # }", "for i in 0 .. 1 { for j in 0 .. 1 { } } if true { # }"} {
 			heldNames(t, given(strings.Replace(form, "#", fault.text, 1)), "", 0)

@@ -76,6 +76,7 @@ func agrees(l []impl.Node, types []int, at int) bool {
 
 // Promise 5: each node has one type, and it goes with those beneath it.
 func TestPromise5TypesGoTogether(t *testing.T) {
+	t.Parallel()
 	c := newChance(87)
 	typed := 0
 	for n := range 2000 {
@@ -107,6 +108,7 @@ func cutAt(k tree, count int) tree {
 // Promise 5: what stands ahead of the statement with the fault has none, and
 // what stands behind it makes no other one of it.
 func TestPromise5TheFirstFaultIsTold(t *testing.T) {
+	t.Parallel()
 	c := newChance(88)
 	faults := 0
 	for n := range 3000 {
@@ -139,6 +141,7 @@ func TestPromise5TheFirstFaultIsTold(t *testing.T) {
 // Promise 5: statements put behind a kernel leave its types, or its fault, as
 // they are.
 func TestPromise5WhatIsAddedBehind(t *testing.T) {
+	t.Parallel()
 	c := newChance(89)
 	for n := range 1000 {
 		k := c.kernelWithTypes(n%80, n%3*30)
@@ -159,6 +162,7 @@ func TestPromise5WhatIsAddedBehind(t *testing.T) {
 
 // Promise 5: other names, alike where they were alike, have the same types.
 func TestPromise5OtherNames(t *testing.T) {
+	t.Parallel()
 	c := newChance(90)
 	for n := range 1000 {
 		l := c.kernelWithTypes(n%80, n%3*40).nodes()
@@ -177,6 +181,7 @@ func TestPromise5OtherNames(t *testing.T) {
 
 // Promise 5: a kernel that comes back from its text has the same types.
 func TestPromise5TypesComeBack(t *testing.T) {
+	t.Parallel()
 	c := newChance(91)
 	for n := range 1000 {
 		l := c.kernelWithTypes(n%80, n%2*60).nodes()
@@ -210,6 +215,7 @@ var typedAll = given("let x = 1 ; let y = n + 0.5 ; let p = ! ( x < f ) ; y = mi
 // Promise 25: lists that are no good kernel have no types, no names and no
 // loops.
 func TestPromise25NoTypes(t *testing.T) {
+	t.Parallel()
 	noTypes(t, nil)
 	noTypes(t, []impl.Node{})
 	l := impl.ReadKernel(typedAll).Nodes
@@ -246,6 +252,7 @@ func TestPromise25NoTypes(t *testing.T) {
 // Promise 25: too many nodes, too deep ones, and kernels just within these
 // limits.
 func TestPromise25TypesAtTheLimits(t *testing.T) {
+	t.Parallel()
 	kernel := func(l []tree) []impl.Node {
 		return tree{impl.NKernel, "k", []tree{{impl.NBlock, "", l}}}.nodes()
 	}
@@ -289,6 +296,7 @@ func TestPromise25TypesAtTheLimits(t *testing.T) {
 
 // Promise 25: nodes of any sort.
 func TestPromise25TypesOfAnyNodes(t *testing.T) {
+	t.Parallel()
 	c := newChance(92)
 	some := func(n int) int {
 		if c.Intn(3) == 0 {
@@ -317,6 +325,7 @@ func TestPromise25TypesOfAnyNodes(t *testing.T) {
 // Promise 25: nothing is written into nodes that are given, and types and names
 // are new memory.
 func TestPromise25NewTypes(t *testing.T) {
+	t.Parallel()
 	c := newChance(93)
 	for n := range 300 {
 		l := c.kernelWithTypes(n, n%3*50).nodes()
@@ -335,6 +344,7 @@ func TestPromise25NewTypes(t *testing.T) {
 // Promise 25: a call finds nothing of those ahead of it, and reads nothing
 // behind the nodes' length.
 func TestPromise25TypesOfOneCallAlone(t *testing.T) {
+	t.Parallel()
 	first, second := impl.ReadKernel(given("let x = 1 ;")).Nodes, impl.ReadKernel("kernel k ( ) { x = n ; }").Nodes
 	for range 3 {
 		if got := impl.TypeKernel(first); got.Code != 0 {

@@ -48,6 +48,7 @@ func typedSource(t *testing.T, source string) impl.Typed {
 }
 
 func TestConstantsOfTypes(t *testing.T) {
+	t.Parallel()
 	got := []int{impl.TNone, impl.TWhole, impl.TFloat, impl.TBool, impl.TypName, impl.TypTwice, impl.TypKind, impl.TypSet, impl.TypBarrier}
 	if !slices.Equal(got, []int{0, 1, 2, 3, 1, 2, 3, 4, 5}) {
 		t.Error(got)
@@ -55,6 +56,7 @@ func TestConstantsOfTypes(t *testing.T) {
 }
 
 func TestTypeNames(t *testing.T) {
+	t.Parallel()
 	want := map[int]string{0: "none", 1: "int", 2: "float", 3: "bool"}
 	for _, kind := range slices.Concat(wrongInts, []int{-1, 0, 1, 2, 3, 4, 5, math.MinInt64, math.MaxInt64, math.MinInt64 + 2, 1 << 32, 1<<32 + 1, 1<<32 + 3, 256, 257}) {
 		if got := impl.TypeName(kind); got != want[kind] {
@@ -121,6 +123,7 @@ func heldOperation(t *testing.T, text, letters string, operands []string) {
 // Every sign and every call at every row of operand types, and at everything
 // that has such a type.
 func TestEveryOperation(t *testing.T) {
+	t.Parallel()
 	arity := map[string][]int{"!": {1}, "-": {1, 2}}
 	for _, sign := range betweenSigns {
 		if sign != "-" {
@@ -155,6 +158,7 @@ func TestEveryOperation(t *testing.T) {
 
 // Whatever takes one type, at everything of every type.
 func TestEveryPlaceForAType(t *testing.T) {
+	t.Parallel()
 	wants := map[string]string{
 		"a [ # ] = 1 ;": "i", "b [ # ] = 1 ;": "i", "a [ 0 ] = # ;": "i", "b [ 0 ] = # ;": "if", "y = # ;": "i", "z = # ;": "if", "p = # ;": "b",
 		"let x = # ;": "ifb", "if # { }": "b", "if # { } else { }": "b", "for x in # .. 1 { }": "i", "for x in 0 .. # { }": "i", "let x = a [ # ] ;": "i", "let x = b [ # ] ;": "i",
@@ -182,6 +186,7 @@ var shortStatements = []string{
 
 // Each two short statements, behind one another and in one another's blocks.
 func TestEveryTwoStatements(t *testing.T) {
+	t.Parallel()
 	around := []string{
 		"# @", "if true { # } @", "if true { # @ }", "if true { # } else { @ }", "if true { } else { # } @", "for i in 0 .. 1 { # } @", "for i in 0 .. 1 { # @ }", "for x in 0 .. 1 { # } @", "if 1 { # } @", "if true { # if true { @ } }",
 		"# for i in 0 .. 1 { @ }", "# if x == x { @ } else { @ }", "for x in 0.5 .. 1 { # } @", "let x = 1 ; # @", "let x = 0.5 ; if true { # } @",
@@ -203,6 +208,7 @@ func TestEveryTwoStatements(t *testing.T) {
 }
 
 func TestKernelsWithTypesByChance(t *testing.T) {
+	t.Parallel()
 	c := newChance(82)
 	kinds := map[int]int{}
 	for n := range 2500 {
@@ -222,6 +228,7 @@ func TestKernelsWithTypesByChance(t *testing.T) {
 }
 
 func TestKernelsWithFaultsByChance(t *testing.T) {
+	t.Parallel()
 	c := newChance(83)
 	found := map[told5]int{}
 	for n := range 8000 {
@@ -252,6 +259,7 @@ var everyFault = []told5{
 // A kernel without a fault in which one text is another one, or one node has
 // another kind.
 func TestKernelsWithOneChange(t *testing.T) {
+	t.Parallel()
 	c := newChance(84)
 	for n := range 28 {
 		l := c.kernelWithTypes(n, 0).nodes()
@@ -272,6 +280,7 @@ func TestKernelsWithOneChange(t *testing.T) {
 
 // A kernel in which one expression is another one, of any type.
 func TestKernelsWithOneExpressionForAnother(t *testing.T) {
+	t.Parallel()
 	c := newChance(85)
 	for n := range 60 {
 		l := c.kernelWithTypes(n, 0).nodes()
@@ -289,6 +298,7 @@ func TestKernelsWithOneExpressionForAnother(t *testing.T) {
 
 // Kernels by chance with names and types as they come.
 func TestAnyGoodKernelsHaveTypesOrAFault(t *testing.T) {
+	t.Parallel()
 	c := newChance(86)
 	for n := range 2000 {
 		heldTyped(t, c.goodKernel(n%60).nodes())

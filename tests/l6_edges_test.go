@@ -32,12 +32,14 @@ func heldWholeEdges(t *testing.T, l []wholeEdge) {
 }
 
 func TestQuotientsAndRestsByNought(t *testing.T) {
+	t.Parallel()
 	for _, a := range []int64{0, 1, -1, 5, -5, math.MaxInt32, math.MinInt32} {
 		heldWholeEdges(t, []wholeEdge{{"/", a, 0, 0}, {"%", a, 0, 0}})
 	}
 }
 
 func TestQuotientsAndRests(t *testing.T) {
+	t.Parallel()
 	heldWholeEdges(t, []wholeEdge{
 		{"/", 7, 2, 3}, {"/", -7, 2, -3}, {"/", 7, -2, -3}, {"/", -7, -2, 3},
 		{"%", 7, 2, 1}, {"%", -7, 2, -1}, {"%", 7, -2, 1}, {"%", -7, -2, -1},
@@ -56,6 +58,7 @@ func TestQuotientsAndRests(t *testing.T) {
 }
 
 func TestShifts(t *testing.T) {
+	t.Parallel()
 	heldWholeEdges(t, []wholeEdge{
 		{"<<", 1, 0, 1}, {"<<", 1, 1, 2}, {"<<", 1, 31, math.MinInt32}, {"<<", 1, 32, 1}, {"<<", 1, 33, 2}, {"<<", 1, 64, 1},
 		{"<<", 1, -1, math.MinInt32}, {"<<", 1, -31, 2}, {"<<", 1, -32, 1}, {"<<", 1, -33, math.MinInt32}, {"<<", 3, -30, 12},
@@ -70,6 +73,7 @@ func TestShifts(t *testing.T) {
 }
 
 func TestSumsAndProductsWrap(t *testing.T) {
+	t.Parallel()
 	heldWholeEdges(t, []wholeEdge{
 		{"+", math.MaxInt32, 1, math.MinInt32}, {"+", math.MinInt32, -1, math.MaxInt32}, {"+", math.MinInt32, math.MinInt32, 0}, {"+", -1, 1, 0}, {"+", 2, 3, 5},
 		{"-", math.MinInt32, 1, math.MaxInt32}, {"-", 0, math.MinInt32, math.MinInt32}, {"-", math.MaxInt32, -1, math.MinInt32}, {"-", 2, 5, -3},
@@ -79,6 +83,7 @@ func TestSumsAndProductsWrap(t *testing.T) {
 }
 
 func TestWholesCompared(t *testing.T) {
+	t.Parallel()
 	heldWholeEdges(t, []wholeEdge{
 		{"<", -1, 0, 1}, {"<", 0, -1, 0}, {"<", 3, 3, 0}, {"<", math.MinInt32, math.MaxInt32, 1}, {"<", math.MaxInt32, math.MinInt32, 0},
 		{"<=", 3, 3, 1}, {"<=", 4, 3, 0}, {"<=", -4, 3, 1}, {">", 0, -1, 1}, {">", -1, 0, 0}, {">", 3, 3, 0},
@@ -104,6 +109,7 @@ func heldWordEdges(t *testing.T, kind int, l []wordEdge) {
 }
 
 func TestSumsAndProductsOfFloats(t *testing.T) {
+	t.Parallel()
 	heldWordEdges(t, impl.TFloat, []wordEdge{
 		{"+", one, one, two}, {"-", one, one, 0}, {"*", two, threeHalves, 0x40400000}, {"/", one, 0x40400000, 0x3eaaaaab},
 		{"+", 0, minus, 0}, {"+", minus, minus, minus}, {"+", minus, 0, 0}, {"+", 0, 0, 0},
@@ -118,6 +124,7 @@ func TestSumsAndProductsOfFloats(t *testing.T) {
 }
 
 func TestFloatsCompared(t *testing.T) {
+	t.Parallel()
 	heldWordEdges(t, impl.TFloat, []wordEdge{
 		{"==", 0, minus, 1}, {"!=", 0, minus, 0}, {"<", minus, 0, 0}, {"<=", 0, minus, 1}, {">", 0, minus, 0}, {">=", minus, 0, 1},
 		{"<", one | minus, one, 1}, {"<", one, one | minus, 0}, {"<", two | minus, one | minus, 1}, {">", two, one, 1}, {">", two | minus, one, 0},
@@ -133,6 +140,7 @@ func TestFloatsCompared(t *testing.T) {
 }
 
 func TestBoolsOfAnyWords(t *testing.T) {
+	t.Parallel()
 	heldWordEdges(t, impl.TBool, []wordEdge{
 		{"&&", 0, 0, 0}, {"&&", 0, 1, 0}, {"&&", 1, 0, 0}, {"&&", 1, 1, 1}, {"&&", 2, 1, 1}, {"&&", minus, 0xffffffff, 1}, {"&&", 2, 4, 1}, {"&&", 7, 0, 0},
 		{"||", 0, 0, 0}, {"||", 0, 1, 1}, {"||", 1, 0, 1}, {"||", 1, 1, 1}, {"||", 0, 2, 1}, {"||", minus, 0, 1}, {"||", 3, 5, 1},
@@ -154,6 +162,7 @@ func noOp(t *testing.T, op string, kind int) {
 }
 
 func TestSignsWithoutAType(t *testing.T) {
+	t.Parallel()
 	for _, op := range strings.Fields("&& ||") {
 		noOp(t, op, impl.TWhole)
 	}
@@ -174,6 +183,7 @@ func TestSignsWithoutAType(t *testing.T) {
 }
 
 func TestTextsThatAreNoSign(t *testing.T) {
+	t.Parallel()
 	l := slices.Concat(wantCalls, wantWords, brokenRunes, []string{"", " ", " +", "+ ", "++", "+\x00", "!", "=", "(", ")", "[", ",", ";", "..", ":", "{", "}", "===", "<>", "=<", "x", "1", "**", "~", "＋"})
 	for _, op := range l {
 		for _, kind := range kindsOfAll {
@@ -202,6 +212,7 @@ func heldCallEdges(t *testing.T, kind int, l []callEdge) {
 func words6(l ...uint32) []uint32 { return l }
 
 func TestCallsOfWholes(t *testing.T) {
+	t.Parallel()
 	least, most := minus, minus-1
 	heldCallEdges(t, impl.TWhole, []callEdge{
 		{"abs", words6(5), 5}, {"abs", words6(0), 0}, {"abs", words6(0xffffffff), 1}, {"abs", words6(least), least}, {"abs", words6(least + 1), most}, {"abs", words6(most), most},
@@ -214,6 +225,7 @@ func TestCallsOfWholes(t *testing.T) {
 }
 
 func TestCallsOfFloats(t *testing.T) {
+	t.Parallel()
 	heldCallEdges(t, impl.TFloat, []callEdge{
 		{"abs", words6(one | minus), one}, {"abs", words6(one), one}, {"abs", words6(minus), 0}, {"abs", words6(0), 0}, {"abs", words6(infinite | minus), infinite}, {"abs", words6(1 | minus), 1},
 		{"abs", words6(nan), nan}, {"abs", words6(nan | minus), nan}, {"abs", words6(farNaN), nan}, {"abs", words6(0x7f800001), nan},
@@ -237,6 +249,7 @@ func noCall(t *testing.T, name string, kind int, args []uint32) {
 }
 
 func TestTooFewAndTooManyArgs(t *testing.T) {
+	t.Parallel()
 	args := slices.Repeat([]uint32{two, one | minus, nan, 5}, 3)
 	for _, name := range wantCalls {
 		for _, kind := range kindsOfAll {
@@ -262,6 +275,7 @@ func TestTooFewAndTooManyArgs(t *testing.T) {
 }
 
 func TestTextsThatAreNoCall(t *testing.T) {
+	t.Parallel()
 	args := []uint32{two, 7, one}
 	for _, name := range slices.Concat(wantSigns, brokenRunes, []string{"", " abs", "abs ", "Abs", "ABS", "absent", "ab", "x", "bool", "let", "kernel", "none", "1", "min(", "größe"}) {
 		for _, kind := range kindsOfAll {
@@ -273,6 +287,7 @@ func TestTextsThatAreNoCall(t *testing.T) {
 }
 
 func TestWholesMadeFloats(t *testing.T) {
+	t.Parallel()
 	for _, e := range []struct {
 		whole int64
 		want  uint32
@@ -291,6 +306,7 @@ func TestWholesMadeFloats(t *testing.T) {
 }
 
 func TestFloatsMadeWhole(t *testing.T) {
+	t.Parallel()
 	for _, e := range []struct {
 		float uint32
 		want  int64
@@ -325,6 +341,7 @@ func toldConst(l []impl.Node) string {
 }
 
 func TestConstantsWrittenOut(t *testing.T) {
+	t.Parallel()
 	for source, want := range map[string]string{
 		"0": "int 0", "7": "int 7", "2147483647": "int 2147483647", "0.0": "float 0", "1.0": "float 3f800000", "0.1": "float 3dcccccd", "true": "bool 1", "false": "bool 0",
 		"- 7": "int -7", "- 0": "int 0", "- - 7": "int 7", "- 1.0": "float bf800000", "- 0.0": "float 80000000", "! true": "bool 0", "! false": "bool 1", "! ! true": "bool 1",
@@ -358,6 +375,7 @@ func noConst(t *testing.T, l []impl.Node) {
 }
 
 func TestExpressionsThatHangOnAThread(t *testing.T) {
+	t.Parallel()
 	for _, hanging := range []string{"x", "x [ 0 ]", "tid ( )", "local ( )", "group ( )", "size ( )"} {
 		for _, around := range []string{"#", "- #", "1 + #", "# + 1", "abs ( # )", "min ( 1 , # )", "max ( # , 1 )", "fma ( 1 , 2 , # )", "sqrt ( # )", "float ( # )", "int ( # )", "( 1 + # ) * 0", "0 * - ( 1 - # )", "# == #", "0 & #", "true || 1 == #", "! ( 1 < # )"} {
 			noConst(t, exprOf(strings.Fields(strings.ReplaceAll(around, "#", hanging))).nodes())
@@ -369,6 +387,7 @@ func TestExpressionsThatHangOnAThread(t *testing.T) {
 }
 
 func TestExpressionsWithoutAType(t *testing.T) {
+	t.Parallel()
 	for _, source := range []string{
 		"- true", "! 1", "! 0.5", "1 + true", "true + true", "1 % 0.5", "0.5 << 1", "true & true", "1 && 1", "true || 1", "0.5 && 0.5", "true == 1", "0.5 != true", "true < false",
 		"abs ( true )", "min ( 1 , true )", "max ( true , 1 )", "fma ( 1 , 2 , true )", "sqrt ( true )", "float ( true )", "int ( true )",
@@ -381,6 +400,7 @@ func TestExpressionsWithoutAType(t *testing.T) {
 }
 
 func TestListsThatAreNoOneExpression(t *testing.T) {
+	t.Parallel()
 	for _, text := range []string{
 		"1 1 0, 1 1 0", "1 1 0, 1 2 0, 7 + 2", "7 + 2, 1 1 0", "7 + 2", "7 + 2, 1 1 0, 1 2 0, 1 3 0", "7 + 3, 1 1 0, 1 2 0, 1 3 0", "7 + 1, 1 1 0", "7 + 0", "7 + -1, 1 1 0, 1 2 0",
 		"6 - 0", "6 - 1", "6 - 2, 1 1 0, 1 2 0", "6 - 1, 1 1 0, 1 1 0", "6 + 1, 1 1 0", "6 ~ 1, 1 1 0", "6 1, 1 1 0", "7 ! 2, 3 true 0, 3 true 0", "7 = 2, 1 1 0, 1 1 0", "7 2, 1 1 0, 1 1 0", "7 .. 2, 1 1 0, 1 1 0",
@@ -400,6 +420,7 @@ func TestListsThatAreNoOneExpression(t *testing.T) {
 
 // Signs that may not stand there, with operands of every type.
 func TestSignsThatMayNotStand(t *testing.T) {
+	t.Parallel()
 	for _, operand := range nodesOf("1 1 0, 2 0.5 0, 3 true 0") {
 		for _, sign := range slices.Concat(wrongTexts, brokenRunes, []string{"--", "!!", "- ", " !"}) {
 			if sign != "-" && sign != "!" {
@@ -422,6 +443,7 @@ func sumOfOnes(n int) tree {
 }
 
 func TestConstantsAtMaxNodes(t *testing.T) {
+	t.Parallel()
 	minusOf := func(t tree) tree { return tree{impl.NUnary, "-", []tree{t}} }
 	for _, e := range []struct {
 		t     tree
@@ -467,6 +489,7 @@ func heldFolds(t *testing.T, l []string) {
 }
 
 func TestFoldedToWholesAndBools(t *testing.T) {
+	t.Parallel()
 	heldFolds(t, []string{
 		"let x = 1 + 2 ;", "let x = 3 ;",
 		"let x = 3 - 8 ;", "let x = - 5 ;",
@@ -499,6 +522,7 @@ func TestFoldedToWholesAndBools(t *testing.T) {
 }
 
 func TestFoldedFromTheLeavesOn(t *testing.T) {
+	t.Parallel()
 	heldFolds(t, []string{
 		"let x = n + ( 1 + 2 ) ;", "let x = n + 3 ;",
 		"let x = n + 1 + 2 ;", "let x = n + 1 + 2 ;",
@@ -521,6 +545,7 @@ func TestFoldedFromTheLeavesOn(t *testing.T) {
 }
 
 func TestFoldedInEveryStatement(t *testing.T) {
+	t.Parallel()
 	heldFolds(t, []string{
 		"let x = 1 ; x = 2 + 2 ;", "let x = 1 ; x = 4 ;",
 		"a [ 1 + 2 ] = 3 - 2 * 4 ;", "a [ 3 ] = - 5 ;",
@@ -542,6 +567,7 @@ func TestFoldedInEveryStatement(t *testing.T) {
 }
 
 func TestFloatsStay(t *testing.T) {
+	t.Parallel()
 	heldFolds(t, []string{
 		"let x = 0.5 ;", "let x = 0.5 ;",
 		"let x = - 0.5 ;", "let x = - 0.5 ;",
@@ -565,6 +591,7 @@ func TestFloatsStay(t *testing.T) {
 }
 
 func TestTheLeastWholeNumberStays(t *testing.T) {
+	t.Parallel()
 	heldFolds(t, []string{
 		"let x = - 2147483647 - 1 ;", "let x = - 2147483647 - 1 ;",
 		"let x = 0 - 2147483647 - 1 ;", "let x = - 2147483647 - 1 ;",
@@ -599,6 +626,7 @@ func nested(blocks int, statements string) string {
 // A sign ahead opens one more than a sign between two: where that is too deep
 // the kernel is as it was, in all its parts.
 func TestFoldedTooDeep(t *testing.T) {
+	t.Parallel()
 	for blocks := range 10 {
 		was, folded := nested(blocks, "let x = 3 - 8 ;"), nested(blocks, "let x = - 5 ;")
 		ahead, also := "let y = 1 + 1 ;", "let y = 2 ;"
@@ -633,6 +661,7 @@ func noFold(t *testing.T, l []impl.Node) {
 }
 
 func TestListsWithoutTypesAreNotFolded(t *testing.T) {
+	t.Parallel()
 	noFold(t, nil)
 	noFold(t, []impl.Node{})
 	noFold(t, []impl.Node{{}})

@@ -11,6 +11,7 @@ import (
 
 // Promise 25: signs, calls and kinds of any sort.
 func TestPromise25AnyOperations(t *testing.T) {
+	t.Parallel()
 	c := newChance(110)
 	texts := slices.Concat(betweenSigns, wrongTexts, brokenRunes, []string{strings.Repeat("+", 100000), "+\n", "\x00", "abs\x00"})
 	for _, text := range texts {
@@ -29,6 +30,7 @@ func TestPromise25AnyOperations(t *testing.T) {
 // Promise 25: what a sign or a call answers hangs on nothing but what it is
 // given, and it is one word for each of them.
 func TestPromise25OperationsAgain(t *testing.T) {
+	t.Parallel()
 	c := newChance(111)
 	for range 200 {
 		args := c.words(3)
@@ -46,6 +48,7 @@ func TestPromise25OperationsAgain(t *testing.T) {
 
 // Promise 25: args are not changed, and nothing behind their length is read.
 func TestPromise25Args(t *testing.T) {
+	t.Parallel()
 	c := newChance(112)
 	for range 100 {
 		for n := range 5 {
@@ -69,6 +72,7 @@ func TestPromise25Args(t *testing.T) {
 
 // Promise 25: every word is made a float, and every float a whole number.
 func TestPromise25EveryWordIsMade(t *testing.T) {
+	t.Parallel()
 	c := newChance(113)
 	for range 100000 {
 		a := c.Uint32()
@@ -83,6 +87,7 @@ func TestPromise25EveryWordIsMade(t *testing.T) {
 
 // Promise 25: nodes of any sort.
 func TestPromise25ConstantsOfAnyNodes(t *testing.T) {
+	t.Parallel()
 	c := newChance(114)
 	some := func(n int) int {
 		if c.Intn(3) == 0 {
@@ -115,6 +120,7 @@ func TestPromise25ConstantsOfAnyNodes(t *testing.T) {
 // Promise 25: Kinds, Kids and Texts that are not as said, in a kernel with nodes
 // of every kind.
 func TestPromise25FoldsWithOneChange(t *testing.T) {
+	t.Parallel()
 	l := impl.ReadKernel(given("let x = 1 + 2 ; let p = ! ( 1 < 2 ) ; x = 3 - 8 ; a [ 1 + 1 ] = a [ abs ( - 2 ) ] ; b [ tid ( ) ] = 0.5 * ( 2 - 4 ) ; if p || 1 == 1 { x = int ( 1.5 ) ; } else { p = false ; } barrier ; for i in 1 - 1 .. 2 * 2 { x = i ; }")).Nodes
 	if got := heldFold(t, l); slices.Equal(got, l) || len(got) >= len(l) {
 		t.Errorf("FoldKernel(%v) = %v", l, got)
@@ -156,6 +162,7 @@ func newTexts(l []impl.Node) []impl.Node {
 // Promise 25: nodes that are given are not changed, and those that are answered
 // are new memory, also where they are as they were.
 func TestPromise25NewFoldedNodes(t *testing.T) {
+	t.Parallel()
 	c := newChance(115)
 	deep := impl.ReadKernel(given(nested(9, "let x = 3 - 8 ;"))).Nodes
 	for n := range 200 {
@@ -184,6 +191,7 @@ func TestPromise25NewFoldedNodes(t *testing.T) {
 
 // Promise 25: what lies behind the nodes' length is not read.
 func TestPromise25BehindFoldedNodes(t *testing.T) {
+	t.Parallel()
 	expr := exprOf(strings.Fields("1 + 2 * 3")).nodes()
 	long := append(slices.Clone(expr), expr...)
 	if got := toldConst(long[:len(expr)]); got != "int 7" {
@@ -202,6 +210,7 @@ func TestPromise25BehindFoldedNodes(t *testing.T) {
 // A folded kernel has types again, as many statements in the same order, and
 // nothing more to fold.
 func TestFoldedKernelsAreKernels(t *testing.T) {
+	t.Parallel()
 	c := newChance(116)
 	statements := func(l []impl.Node) []impl.Node {
 		return slices.DeleteFunc(slices.Clone(l), func(n impl.Node) bool { return n.Kind <= impl.NCall })
@@ -224,6 +233,7 @@ func TestFoldedKernelsAreKernels(t *testing.T) {
 // Every expression of a folded kernel that hangs on nothing has the value that
 // it had ahead.
 func TestFoldedExpressionsKeepTheirValue(t *testing.T) {
+	t.Parallel()
 	c := newChance(117)
 	for n := range 3000 {
 		letter := typeLetters[1+n%3]

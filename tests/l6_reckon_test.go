@@ -39,6 +39,7 @@ func heldCall(t *testing.T, name string, kind int, args []uint32) {
 }
 
 func TestEverySignAtEveryKind(t *testing.T) {
+	t.Parallel()
 	words := wordsToReckon()
 	for _, op := range betweenSigns {
 		for kind := range 5 {
@@ -52,6 +53,7 @@ func TestEverySignAtEveryKind(t *testing.T) {
 }
 
 func TestSignsOfWordsByChance(t *testing.T) {
+	t.Parallel()
 	c := newChance(101)
 	for range 3000 {
 		a, b := c.word(), c.word()
@@ -69,6 +71,7 @@ func TestSignsOfWordsByChance(t *testing.T) {
 }
 
 func TestEveryCallAtEveryKind(t *testing.T) {
+	t.Parallel()
 	words := wordsToReckon()
 	few := fewWords()
 	for _, name := range wantCalls {
@@ -90,6 +93,7 @@ func TestEveryCallAtEveryKind(t *testing.T) {
 }
 
 func TestCallsOfWordsByChance(t *testing.T) {
+	t.Parallel()
 	c := newChance(102)
 	for range 3000 {
 		args := c.words(3)
@@ -112,6 +116,7 @@ func heldMade(t *testing.T, a uint32) {
 }
 
 func TestToFloatAndToWhole(t *testing.T) {
+	t.Parallel()
 	for _, a := range slices.Concat(wordsToReckon(), moreWords()) {
 		for n := range uint32(5) {
 			heldMade(t, a+n-2)
@@ -157,6 +162,7 @@ func heldFold(t *testing.T, l []impl.Node) []impl.Node {
 
 // Every operation at operands of every row of types.
 func TestConstantsOfEveryOperation(t *testing.T) {
+	t.Parallel()
 	forms := map[rune][]string{
 		'i': {"0", "1", "2147483647", "- 7", "( 0 - 2147483647 - 1 )", "5"},
 		'f': {"0.0", "- 0.0", "0.5", "- 7.5", "( 1.0 / 0.0 )", "( 0.0 / 0.0 )", "3000000.0"},
@@ -199,6 +205,7 @@ func TestConstantsOfEveryOperation(t *testing.T) {
 }
 
 func TestConstantsByChance(t *testing.T) {
+	t.Parallel()
 	c := newChance(104)
 	for n := range 12000 {
 		letter := typeLetters[1+n%3]
@@ -211,6 +218,7 @@ func TestConstantsByChance(t *testing.T) {
 
 // An expression that hangs on nothing, with one node changed.
 func TestConstantsWithOneChange(t *testing.T) {
+	t.Parallel()
 	c := newChance(105)
 	for n := range 40 {
 		l := c.constExpr(typeLetters[1+n%3], n).nodes()
@@ -237,6 +245,7 @@ func TestConstantsWithOneChange(t *testing.T) {
 
 // Expressions as they come: with names, loads and calls, with types or without.
 func TestConstantsOfAnyExpressions(t *testing.T) {
+	t.Parallel()
 	c := newChance(106)
 	values := 0
 	for n := range 6000 {
@@ -250,6 +259,7 @@ func TestConstantsOfAnyExpressions(t *testing.T) {
 }
 
 func TestFoldsKernelsByChance(t *testing.T) {
+	t.Parallel()
 	c := newChance(107)
 	folded, kept := 0, 0
 	for n := range 1500 {
@@ -266,6 +276,7 @@ func TestFoldsKernelsByChance(t *testing.T) {
 }
 
 func TestFoldsAnyGoodKernels(t *testing.T) {
+	t.Parallel()
 	c := newChance(108)
 	for n := range 1500 {
 		heldFold(t, c.kernelWithTypes(n%80, n%3*30).nodes())
@@ -276,6 +287,7 @@ func TestFoldsAnyGoodKernels(t *testing.T) {
 
 // A kernel in which each expression in turn hangs on nothing.
 func TestFoldsEachExpression(t *testing.T) {
+	t.Parallel()
 	c := newChance(109)
 	for n := range 40 {
 		l := c.kernelWithTypes(n, 0).nodes()

@@ -57,6 +57,7 @@ func namedIn(l []*ast.BlockStmt) (named, assigned map[string]bool) {
 }
 
 func TestTableOfOperations(t *testing.T) {
+	t.Parallel()
 	const table = "operations"
 	bodies := functionsOf(t)
 	named, assigned := map[string]map[string]bool{}, map[string]map[string]bool{}
@@ -81,6 +82,7 @@ func TestTableOfOperations(t *testing.T) {
 
 // No other function names the table, or OpWords, by which it would be read.
 func TestOnlyOpWordsReadsTheTable(t *testing.T) {
+	t.Parallel()
 	for name, bodies := range functionsOf(t) {
 		named, _ := namedIn(bodies)
 		if named["operations"] != (name == "OpWords") || named["OpWords"] {

@@ -51,6 +51,7 @@ func heldLayouts(t *testing.T, rule int, l []string) {
 }
 
 func TestTightLayouts(t *testing.T) {
+	t.Parallel()
 	heldLayouts(t, impl.RuleTight, []string{
 		"x half", "x 0 2 0; 2 2",
 		"x half 1", "x 0 2 2; 2 2",
@@ -78,6 +79,7 @@ func TestTightLayouts(t *testing.T) {
 }
 
 func TestBufferLayouts(t *testing.T) {
+	t.Parallel()
 	heldLayouts(t, impl.RuleBuffer, []string{
 		"x half", "x 0 2 0; 2 2",
 		"x half 1", "x 0 2 2; 2 2",
@@ -107,6 +109,7 @@ func TestBufferLayouts(t *testing.T) {
 
 // By this rule alone arrays raise their alignment, and so does the struct.
 func TestUniformLayouts(t *testing.T) {
+	t.Parallel()
 	heldLayouts(t, impl.RuleUniform, []string{
 		"x half", "x 0 2 0; 16 16",
 		"x half 1", "x 0 16 16; 16 16",
@@ -136,6 +139,7 @@ func TestUniformLayouts(t *testing.T) {
 
 // As many fields as may be, of the longest that there are.
 func TestLongestLayouts(t *testing.T) {
+	t.Parallel()
 	var l []impl.Field
 	for i := range 12 {
 		l = append(l, impl.Field{Name: "m" + strconv.Itoa(i), Type: "mat4", Array: 64})
@@ -153,6 +157,7 @@ func TestLongestLayouts(t *testing.T) {
 }
 
 func TestTypeSizes(t *testing.T) {
+	t.Parallel()
 	const sizes = `half 2 2 2 2 2 2, int 4 4 4 4 4 4, float 4 4 4 4 4 4, vec2 8 4 8 8 8 8, vec3 12 4 12 16 12 16, vec4 16 4 16 16 16 16, mat2 16 4 16 8 32 16, mat3 36 4 48 16 48 16, mat4 64 4 64 16 64 16`
 	for _, row := range strings.Split(sizes, ", ") {
 		w := strings.Fields(row)
@@ -229,6 +234,7 @@ func noLayout(t *testing.T, l []impl.Field, rule int) {
 }
 
 func TestHowManyFields(t *testing.T) {
+	t.Parallel()
 	var l []impl.Field
 	heldGoodFields(t, false, nil)
 	heldGoodFields(t, false, []impl.Field{})
@@ -239,6 +245,7 @@ func TestHowManyFields(t *testing.T) {
 }
 
 func TestNamesOfFields(t *testing.T) {
+	t.Parallel()
 	one := func(name string) []impl.Field { return []impl.Field{{Name: name, Type: "int"}} }
 	for _, name := range slices.Concat(wantWords, wantSigns, brokenRunes, []string{"", " ", "1", "1x", "x y", "x ", " x", "x\n", "x.", "x\x00", strings.Repeat("x", 21), strings.Repeat("é", 21), strings.Repeat("x", 100000)}) {
 		heldGoodFields(t, false, one(name))
@@ -265,6 +272,7 @@ func TestNamesOfFields(t *testing.T) {
 }
 
 func TestTypesOfFields(t *testing.T) {
+	t.Parallel()
 	for _, kind := range wantTypes {
 		heldGoodFields(t, true, []impl.Field{{Name: "x", Type: kind}})
 		heldGoodFields(t, true, []impl.Field{{Name: "x", Type: kind, Array: 2}})
@@ -277,6 +285,7 @@ func TestTypesOfFields(t *testing.T) {
 }
 
 func TestArraysOfFields(t *testing.T) {
+	t.Parallel()
 	for _, kind := range wantTypes {
 		for array := -3; array <= 70; array++ {
 			heldGoodFields(t, array >= 0 && array <= 64, []impl.Field{{Name: "x", Type: kind, Array: array}})
@@ -289,6 +298,7 @@ func TestArraysOfFields(t *testing.T) {
 }
 
 func TestRulesThatAreNone(t *testing.T) {
+	t.Parallel()
 	for _, rule := range badRules {
 		for _, kind := range wantTypes {
 			noLayout(t, []impl.Field{{Name: "x", Type: kind}}, rule)
@@ -328,6 +338,7 @@ func toldCells(t *testing.T, l []impl.Field, rule int) string {
 }
 
 func TestWhatLiesAtEachByte(t *testing.T) {
+	t.Parallel()
 	for _, row := range []struct {
 		rule         int
 		fields, want string
@@ -378,6 +389,7 @@ func heldBytes(t *testing.T, rule int, fields string, values [][]uint32, want []
 }
 
 func TestBytesOfStructs(t *testing.T) {
+	t.Parallel()
 	heldBytes(t, impl.RuleTight, "h half, x int", [][]uint32{{0x0102}, {0x03040506}}, []byte{2, 1, 0, 0, 6, 5, 4, 3})
 	heldBytes(t, impl.RuleTight, "x float, h half", [][]uint32{{one}, {0x3c00}}, []byte{0, 0, 128, 63, 0, 60, 0, 0})
 	heldBytes(t, impl.RuleTight, "h half 3", [][]uint32{{65535, 0, 256}}, []byte{255, 255, 0, 0, 0, 1})
@@ -410,6 +422,7 @@ func noBytes(t *testing.T, fields string, values [][]uint32) {
 }
 
 func TestHalvesAreBelow65536(t *testing.T) {
+	t.Parallel()
 	for _, word := range []uint32{65536, 65537, 1 << 17, 0x10000 | 0x3c00, one, infinite, minus, math.MaxUint32} {
 		noBytes(t, "h half", [][]uint32{{word}})
 		noBytes(t, "h half 2", [][]uint32{{0, word}})
@@ -429,6 +442,7 @@ func TestHalvesAreBelow65536(t *testing.T) {
 }
 
 func TestTooFewAndTooManyValues(t *testing.T) {
+	t.Parallel()
 	for _, kind := range wantTypes {
 		for _, array := range []int{0, 1, 2, 64} {
 			f := impl.Field{Name: "x", Type: kind, Array: array}
@@ -453,6 +467,7 @@ func TestTooFewAndTooManyValues(t *testing.T) {
 }
 
 func TestTooFewAndTooManyBytes(t *testing.T) {
+	t.Parallel()
 	for _, rule := range allRules {
 		for _, kind := range wantTypes {
 			for _, array := range []int{0, 1, 2, 64} {

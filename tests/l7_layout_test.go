@@ -87,6 +87,7 @@ func heldStruct(t *testing.T, c chance, l []impl.Field, rule int, every int) {
 }
 
 func TestEveryTypeAlone(t *testing.T) {
+	t.Parallel()
 	c := newChance(121)
 	for _, rule := range allRules {
 		for _, kind := range wantTypes {
@@ -99,6 +100,7 @@ func TestEveryTypeAlone(t *testing.T) {
 
 // Every two types, each of them alone and as an array, and a half behind them.
 func TestEveryTwoTypes(t *testing.T) {
+	t.Parallel()
 	c := newChance(122)
 	for _, rule := range allRules {
 		for _, a := range wantTypes {
@@ -115,6 +117,7 @@ func TestEveryTwoTypes(t *testing.T) {
 
 // Every three types, of which halves come to stand anywhere.
 func TestEveryThreeTypes(t *testing.T) {
+	t.Parallel()
 	for _, rule := range allRules {
 		for _, a := range wantTypes {
 			for _, b := range wantTypes {
@@ -128,6 +131,7 @@ func TestEveryThreeTypes(t *testing.T) {
 }
 
 func TestStructsByChance(t *testing.T) {
+	t.Parallel()
 	c := newChance(123)
 	for n := range 600 {
 		heldStruct(t, c, c.fields(1+n%12), allRules[c.Intn(3)], 1+c.Intn(40))
@@ -136,6 +140,7 @@ func TestStructsByChance(t *testing.T) {
 
 // Structs without arrays, byte by byte.
 func TestShortStructsByChance(t *testing.T) {
+	t.Parallel()
 	c := newChance(124)
 	for n := range 300 {
 		l := c.fields(1 + n%12)
@@ -150,6 +155,7 @@ func TestShortStructsByChance(t *testing.T) {
 
 // Fields of any sort.
 func TestFieldsByChance(t *testing.T) {
+	t.Parallel()
 	c := newChance(125)
 	good := 0
 	for n := range 6000 {
@@ -197,6 +203,7 @@ func (c chance) changeField(l []impl.Field) {
 
 // Values and bytes of any sort for fields that are good.
 func TestValuesByChance(t *testing.T) {
+	t.Parallel()
 	c := newChance(126)
 	packed, unpacked := 0, 0
 	for n := range 2000 {

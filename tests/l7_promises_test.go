@@ -39,6 +39,7 @@ func numbersComeBack(t *testing.T, c chance, l []impl.Field, rule int) {
 
 // Promise 7: what is packed is unpacked as it was.
 func TestPromise7NumbersComeBack(t *testing.T) {
+	t.Parallel()
 	c := newChance(127)
 	for n := range 500 {
 		for _, rule := range allRules {
@@ -50,6 +51,7 @@ func TestPromise7NumbersComeBack(t *testing.T) {
 // Promise 7: fields stand in order, none in another one, each at a multiple of its
 // alignment, with less than that left free ahead of it.
 func TestPromise7NoFieldLiesInAnother(t *testing.T) {
+	t.Parallel()
 	c := newChance(128)
 	for n := range 3000 {
 		l, rule := c.fields(1+n%12), allRules[n%3]
@@ -82,6 +84,7 @@ func TestPromise7NoFieldLiesInAnother(t *testing.T) {
 
 // Promise 7: each byte of each number lies at one place, and within its field.
 func TestPromise7EachByteLiesOnce(t *testing.T) {
+	t.Parallel()
 	c := newChance(129)
 	for n := range 60 {
 		l, rule := c.fields(1+n%6), allRules[n%3]
@@ -119,6 +122,7 @@ func TestPromise7EachByteLiesOnce(t *testing.T) {
 
 // A number that is changed changes its own bytes alone.
 func TestPromise7ANumbersOwnBytes(t *testing.T) {
+	t.Parallel()
 	c := newChance(130)
 	for n := range 200 {
 		l, rule := c.fields(1+n%5), allRules[n%3]
@@ -144,6 +148,7 @@ func TestPromise7ANumbersOwnBytes(t *testing.T) {
 
 // Promise 25: fields, rules, places, values and bytes of any sort.
 func TestPromise25AnyFields(t *testing.T) {
+	t.Parallel()
 	c := newChance(131)
 	texts := slices.Concat(wrongTexts, wantTypes, brokenRunes, badTypes)
 	rules := slices.Concat(allRules, badRules, wrongInts)
@@ -198,6 +203,7 @@ func flat(l [][]uint32) []uint32 { return slices.Concat(l...) }
 
 // Promise 25: fields are not changed, and no answer shares their memory.
 func TestPromise25FieldsAreKept(t *testing.T) {
+	t.Parallel()
 	c := newChance(132)
 	for n := range 200 {
 		l, rule := newNames(c.fields(1+n%12)), allRules[n%3]
@@ -226,6 +232,7 @@ func TestPromise25FieldsAreKept(t *testing.T) {
 // Promise 25: values and bytes are not changed, and no answer shares their
 // memory.
 func TestPromise25ValuesAndBytesAreKept(t *testing.T) {
+	t.Parallel()
 	c := newChance(133)
 	for n := range 200 {
 		l, rule := c.fields(1+n%12), allRules[n%3]
@@ -250,6 +257,7 @@ func TestPromise25ValuesAndBytesAreKept(t *testing.T) {
 // Promise 25: no two lists of one answer share any memory, nor those of two
 // answers.
 func TestPromise25ListsOfOneAnswer(t *testing.T) {
+	t.Parallel()
 	c := newChance(134)
 	for n := range 200 {
 		l, rule := c.fields(1+n%12), allRules[n%3]
@@ -280,6 +288,7 @@ func TestPromise25ListsOfOneAnswer(t *testing.T) {
 
 // Promise 25: what lies behind the length of a list is not looked at.
 func TestPromise25BehindFields(t *testing.T) {
+	t.Parallel()
 	long := fieldsOf("a int, b half, c vec3, a bool -1")
 	values := [][]uint32{{1, 99}, {2, math.MaxUint32}, {3, 4, 5, 99}, {6}}
 	for i, n := range []int{1, 1, 3} {
@@ -302,6 +311,7 @@ func TestPromise25BehindFields(t *testing.T) {
 
 // Promise 25: answers hang on what is given alone.
 func TestPromise25LayoutsAgain(t *testing.T) {
+	t.Parallel()
 	c := newChance(135)
 	for n := range 300 {
 		l, rule := c.fields(1+n%12), allRules[n%3]

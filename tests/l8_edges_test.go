@@ -58,6 +58,7 @@ func variesBy(t *testing.T, statements, whys string) {
 }
 
 func TestLeaningByExpressions(t *testing.T) {
+	t.Parallel()
 	leansAre(t, "", "")
 	leansAre(t, "let x = 1 ;", "x:")
 	leansAre(t, "let x = tid ( ) ;", "x: tid")
@@ -73,6 +74,7 @@ func TestLeaningByExpressions(t *testing.T) {
 
 // A load counts by what stands in its place, not by its buffer.
 func TestLeaningByLoads(t *testing.T) {
+	t.Parallel()
 	leansAre(t, "let x = a [ 0 ] ;", "x:")
 	leansAre(t, "let x = a [ n ] + b [ size ( ) ] ;", "x:")
 	leansAre(t, "let x = a [ tid ( ) ] ;", "x: tid")
@@ -81,12 +83,14 @@ func TestLeaningByLoads(t *testing.T) {
 
 // What is stored leans on nothing: a buffer is no name here.
 func TestStoresDoNotLean(t *testing.T) {
+	t.Parallel()
 	leansAre(t, "let x = 1 ; let y = 2 ; a [ tid ( ) ] = x ; a [ y ] = tid ( ) ; let z = a [ 0 ] ;", "x:, y:, z:")
 	leansAre(t, "let x = 1 ; if tid ( ) == 0 { a [ x ] = x ; }", "x:")
 	leansAre(t, "let x = 1 ; barrier ; if x == tid ( ) { } else { }", "x:")
 }
 
 func TestLeaningByWhatIsSet(t *testing.T) {
+	t.Parallel()
 	leansAre(t, "let x = 1 ; x = tid ( ) ;", "x: tid")
 	leansAre(t, "let x = tid ( ) ; x = 1 ;", "x: tid")
 	leansAre(t, "let x = 1 ; let y = 2 ; let z = 3 ; x = y ; x = z ; x = local ( ) ;", "x: local y z, y:, z:")
@@ -97,6 +101,7 @@ func TestLeaningByWhatIsSet(t *testing.T) {
 }
 
 func TestLeaningByBounds(t *testing.T) {
+	t.Parallel()
 	leansAre(t, "for i in 0 .. n { }", "i:")
 	leansAre(t, "for i in tid ( ) .. 8 { }", "i: tid")
 	leansAre(t, "for i in 0 .. local ( ) { }", "i: local")
@@ -107,6 +112,7 @@ func TestLeaningByBounds(t *testing.T) {
 // What is set in a block leans on the bounds around it, but on the loop's name
 // only where that stands in its expression.
 func TestLeaningByBoundsAround(t *testing.T) {
+	t.Parallel()
 	leansAre(t, "let x = 1 ; for i in 0 .. tid ( ) { x = 2 ; }", "x: tid, i: tid")
 	leansAre(t, "let x = 1 ; for i in local ( ) .. 9 { x = i ; }", "x: i local, i: local")
 	leansAre(t, "let x = 1 ; let y = 2 ; for i in 0 .. y { for j in x .. 1 { let z = 1 ; } let w = 1 ; } let v = 1 ;", "x:, y:, i: y, j: x y, z: x y, w: y, v:")
@@ -115,6 +121,7 @@ func TestLeaningByBoundsAround(t *testing.T) {
 }
 
 func TestLeaningByConditionsAround(t *testing.T) {
+	t.Parallel()
 	leansAre(t, "let x = 1 ; if tid ( ) == 0 { x = 2 ; }", "x: tid")
 	leansAre(t, "let x = 1 ; if tid ( ) == 0 { } else { x = 2 ; }", "x: tid")
 	leansAre(t, "let x = 1 ; let y = 1 ; if local ( ) < n { x = 2 ; } else { y = 2 ; }", "x: local, y: local")
@@ -128,6 +135,7 @@ func TestLeaningByConditionsAround(t *testing.T) {
 
 // Several deep, in each order: all that is around counts.
 func TestLeaningByAllAround(t *testing.T) {
+	t.Parallel()
 	leansAre(t, "let x = 1 ; let y = 2 ; let z = 3 ; let w = 4 ; if x == 1 { if y == 1 { } else { if z == 1 { w = 5 ; } } }", "x:, y:, z:, w: x y z")
 	leansAre(t, "let x = 1 ; let y = 2 ; let z = 3 ; let w = 4 ; if x == 1 { for i in y .. 9 { if z == 1 { for j in local ( ) .. w { w = 5 ; } } } }", "x:, y:, z:, w: local w x y z, i: x y, j: local w x y z")
 	leansAre(t, "if tid ( ) == 0 { if true { if true { if true { if true { if true { if true { if true { if local ( ) == 0 { let x = 1 ; } } } } } } } } }", "x: local tid")
@@ -135,6 +143,7 @@ func TestLeaningByAllAround(t *testing.T) {
 
 // Behind a block its condition counts no more, nor within the other one's blocks.
 func TestLeaningBehindABlock(t *testing.T) {
+	t.Parallel()
 	leansAre(t, "let x = 1 ; if tid ( ) == 0 { } x = 2 ;", "x:")
 	leansAre(t, "let x = 1 ; if tid ( ) == 0 { } else { } x = 2 ;", "x:")
 	leansAre(t, "let x = 1 ; for i in 0 .. tid ( ) { } x = 2 ;", "x:, i: tid")
@@ -146,6 +155,7 @@ func TestLeaningBehindABlock(t *testing.T) {
 
 // Names of one text are one, wherever they stand, and of whatever type.
 func TestLeaningOfNamesOfOneText(t *testing.T) {
+	t.Parallel()
 	leansAre(t, "if true { let x = tid ( ) ; } let x = 1 ;", "x: tid")
 	leansAre(t, "if true { let x = tid ( ) ; } else { let x = local ( ) ; }", "x: local tid")
 	leansAre(t, "let y = 1 ; for i in 0 .. y { } for i in 0 .. tid ( ) { }", "y:, i: tid y")
@@ -158,6 +168,7 @@ func TestLeaningOfNamesOfOneText(t *testing.T) {
 
 // Rising by bytes, `local` and `tid` at their places among the names.
 func TestUsesRise(t *testing.T) {
+	t.Parallel()
 	lets := "let zz = 1 ; let z = 1 ; let tie = 1 ; let tid0 = 1 ; let ti = 1 ; let m = 1 ; let locam = 1 ; let locals = 1 ; let loca = 1 ; let aa = 1 ; let a0 = 1 ; let _ = 1 ; let Z = 1 ; let é = 1 ; let 𐀀 = 1 ; let ｆ = 1 ; "
 	l := leansAre(t, lets+"let x = zz + z + tie + tid ( ) + tid0 + ti + m + locam + locals + local ( ) + loca + aa + a0 + _ + Z + é + 𐀀 + ｆ + tid ( ) + é ;",
 		"zz:, z:, tie:, tid0:, ti:, m:, locam:, locals:, loca:, aa:, a0:, _:, Z:, é:, 𐀀:, ｆ:, x: Z _ a0 aa loca local locals locam m ti tid tid0 tie z zz é ｆ 𐀀")
@@ -168,6 +179,7 @@ func TestUsesRise(t *testing.T) {
 
 // Names that are none of a kernel's lets and loops.
 func TestNamesThatAreNoneOfTheKernels(t *testing.T) {
+	t.Parallel()
 	l := impl.ReadKernel("kernel kern ( int n , float f , buffer int a , buffer float b ) { let x = tid ( ) + n ; for i in 0 .. x { a [ i ] = int ( b [ x ] + f ) ; } }").Nodes
 	for _, name := range slices.Concat(notNames, strings.Fields("kern n f a b y X xx x_ int float abs kernel for tid() tid( group 1 + =")) {
 		heldUses(t, l, name, nil)
@@ -180,6 +192,7 @@ func TestNamesThatAreNoneOfTheKernels(t *testing.T) {
 }
 
 func TestNothingVaries(t *testing.T) {
+	t.Parallel()
 	variesBy(t, "", "")
 	variesBy(t, "a [ tid ( ) ] = local ( ) ; if tid ( ) == 0 { a [ 0 ] = 1 ; }", "")
 	variesBy(t, "let x = n ; let y = size ( ) ; let z = group ( ) + x ; for i in 0 .. y { z = z + i * a [ i ] ; }", "")
@@ -188,6 +201,7 @@ func TestNothingVaries(t *testing.T) {
 }
 
 func TestVaryingByOneLink(t *testing.T) {
+	t.Parallel()
 	variesBy(t, "let x = tid ( ) ;", "x: tid")
 	variesBy(t, "let x = local ( ) ;", "x: local")
 	variesBy(t, "let x = tid ( ) - local ( ) ;", "x: local")
@@ -198,6 +212,7 @@ func TestVaryingByOneLink(t *testing.T) {
 }
 
 func TestVaryingThroughNames(t *testing.T) {
+	t.Parallel()
 	variesBy(t, "let x = tid ( ) ; let y = x ; let z = y ; let w = z + 1 ; let v = 1 ;", "x: tid, y: x tid, z: y x tid, w: z y x tid")
 	variesBy(t, "let x = tid ( ) ; let y = 1 ; let z = 2 ; if x == 0 { y = 2 ; } if y == 2 { z = 3 ; }", "x: tid, y: x tid, z: y x tid")
 	variesBy(t, "let x = local ( ) ; for i in 0 .. x { for j in 0 .. 1 { let y = 1 ; } }", "x: local, i: x local, j: x local, y: x local")
@@ -207,6 +222,7 @@ func TestVaryingThroughNames(t *testing.T) {
 
 // A circle of names varies as one, where one of it does.
 func TestVaryingThroughACircle(t *testing.T) {
+	t.Parallel()
 	variesBy(t, "let x = 1 ; let y = x ; let z = y ; x = z ;", "")
 	variesBy(t, "let x = 1 ; let y = x ; let z = y ; x = z ; y = local ( ) ;", "y: local, z: y local, x: z y local")
 	variesBy(t, "let x = 1 ; x = x + tid ( ) ;", "x: tid")
@@ -216,6 +232,7 @@ func TestVaryingThroughACircle(t *testing.T) {
 
 // The shortest chain counts ahead of its texts.
 func TestTheShortestChain(t *testing.T) {
+	t.Parallel()
 	variesBy(t, "let c = tid ( ) ; let d = c ; let a0 = d ; let z = local ( ) ; let x = a0 + z ;", "c: tid, d: c tid, a0: d c tid, z: local, x: z local")
 	variesBy(t, "let c = tid ( ) ; let x = c ; x = tid ( ) ;", "c: tid, x: tid")
 	variesBy(t, "let c = tid ( ) ; let d = c ; let p = d ; let q = c ; let x = p ; x = q ; let y = x ; y = p ;", "c: tid, d: c tid, p: d c tid, q: c tid, x: q c tid, y: p d c tid")
@@ -224,6 +241,7 @@ func TestTheShortestChain(t *testing.T) {
 // Of several as short the first one by its first link, then by its second one,
 // and so on.
 func TestTheFirstOfChainsAsShort(t *testing.T) {
+	t.Parallel()
 	variesBy(t, "let p = tid ( ) ; let q = local ( ) ; let x = q + p ;", "p: tid, q: local, x: p tid")
 	variesBy(t, "let q = tid ( ) ; let p = local ( ) ; let x = q + p ;", "q: tid, p: local, x: p local")
 	variesBy(t, "let p = tid ( ) + local ( ) ; let x = p ;", "p: local, x: p local")
@@ -235,6 +253,7 @@ func TestTheFirstOfChainsAsShort(t *testing.T) {
 
 // As many names as a kernel has room for, each of which leans on the one ahead.
 func TestTheLongestChain(t *testing.T) {
+	t.Parallel()
 	var names []string
 	body := tree{kind: impl.NBlock}
 	for i := range 124 {

@@ -33,6 +33,7 @@ func chainHolds(t *testing.T, l []impl.Node, why impl.Why) {
 
 // Each name that varies has a chain, each other one leans on none that varies.
 func TestChainsHold(t *testing.T) {
+	t.Parallel()
 	c := newChance(140)
 	for n := range 200 {
 		l := c.tangled(1+n%len(linkNames), 10+n%50)
@@ -57,6 +58,7 @@ func TestChainsHold(t *testing.T) {
 
 // Statements that come behind take nothing away on which a name leans.
 func TestStatementsBehindTakeNothingAway(t *testing.T) {
+	t.Parallel()
 	c := newChance(141)
 	for n := range 100 {
 		l := c.tangled(1+n%len(linkNames), 5+n%50)
@@ -80,6 +82,7 @@ func TestStatementsBehindTakeNothingAway(t *testing.T) {
 
 // Promise 25: lists that are no kernel with types.
 func TestPromise25NothingVaries(t *testing.T) {
+	t.Parallel()
 	noneVary(t, nil)
 	noneVary(t, []impl.Node{})
 	l := impl.ReadKernel(given("let x = tid ( ) ; let y = x ; if y == local ( ) { x = a [ y ] ; } else { for i in x .. y { y = i ; } }")).Nodes
@@ -116,6 +119,7 @@ func TestPromise25NothingVaries(t *testing.T) {
 
 // Promise 25: kernels with a fault of each sort, wherever it is.
 func TestPromise25NothingVariesBesideAFault(t *testing.T) {
+	t.Parallel()
 	for _, fault := range faultyStatements {
 		for _, form := range []string{"let x = tid ( ) ; # ", "# let x = tid ( ) ;", "for i in 0 .. tid ( ) { let x = i ; # }", "if tid ( ) == 0 { # } let x = local ( ) ;"} {
 			noneVary(t, impl.ReadKernel(given(strings.Replace(form, "#", fault.text, 1))).Nodes)
@@ -129,6 +133,7 @@ func TestPromise25NothingVariesBesideAFault(t *testing.T) {
 
 // Promise 25: nodes of any sort, and names of any bytes.
 func TestPromise25VaryingOfAnyNodes(t *testing.T) {
+	t.Parallel()
 	c := newChance(142)
 	some := func(n int) int {
 		if c.Intn(3) == 0 {
@@ -166,6 +171,7 @@ func byOf(l []impl.Node, name string) []string {
 // Promise 25: nodes and names are not changed, and no answer shares their memory,
 // nor that of another answer.
 func TestPromise25NewNamesThatVary(t *testing.T) {
+	t.Parallel()
 	c := newChance(143)
 	for n := range 150 {
 		l := newTexts(c.tangled(1+n%len(linkNames), 5+n%30))
@@ -185,6 +191,7 @@ func TestPromise25NewNamesThatVary(t *testing.T) {
 // Promise 25: what is answered is the same at every call, whatever was asked
 // between, and wherever the texts lie.
 func TestPromise25VaryingAgain(t *testing.T) {
+	t.Parallel()
 	c := newChance(144)
 	for n := range 100 {
 		l := c.tangled(1+n%len(linkNames), 5+n%30)
@@ -209,6 +216,7 @@ func TestPromise25VaryingAgain(t *testing.T) {
 
 // Promise 25: what lies behind the length of a list is not looked at.
 func TestPromise25VaryingBehindNodes(t *testing.T) {
+	t.Parallel()
 	l := impl.ReadKernel(given("let x = 1 ; let y = x ; if n == 0 { y = 2 ; }")).Nodes
 	long := append(slices.Clone(l), nodesOf("10 y 1, 8 tid 0")...)
 	heldVary(t, long[:len(l)])

@@ -48,6 +48,7 @@ func heldVary(t *testing.T, l []impl.Node, others ...string) web {
 var notNames = []string{"", "tid", "local", "group", "size", "let", "nil", " a", "a ", "a\x00", "0", "buf", "\xff", "é\xc3"}
 
 func TestVaryingOfAnyKernels(t *testing.T) {
+	t.Parallel()
 	c := newChance(136)
 	varying, same := 0, 0
 	for n := range 600 {
@@ -62,6 +63,7 @@ func TestVaryingOfAnyKernels(t *testing.T) {
 }
 
 func TestVaryingOfTangledKernels(t *testing.T) {
+	t.Parallel()
 	c := newChance(137)
 	long := map[int]int{}
 	for n := range 1000 {
@@ -93,6 +95,7 @@ func sumOf(words []string) tree {
 // Of many chains as short the first one: names in layers, each of which leans on
 // some of the layer ahead.
 func TestChainsAsShortInLayers(t *testing.T) {
+	t.Parallel()
 	c := newChance(139)
 	for range 400 {
 		names := c.Perm(len(linkNames))
@@ -124,6 +127,7 @@ func TestChainsAsShortInLayers(t *testing.T) {
 
 // Kernels with a fault, or with one change in a node.
 func TestVaryingBesideFaults(t *testing.T) {
+	t.Parallel()
 	c := newChance(138)
 	faults := 0
 	for n := range 800 {

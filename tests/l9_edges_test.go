@@ -83,6 +83,7 @@ func leavesA(t *testing.T, statements, want string, steps int) {
 }
 
 func TestGroupsAndSizes(t *testing.T) {
+	t.Parallel()
 	l := kernelWith(t, given(""))
 	for groups := -2; groups <= 10; groups++ {
 		for size := -2; size <= 12; size++ {
@@ -114,6 +115,7 @@ func launchOf(words int, buffers ...int) impl.Launch {
 }
 
 func TestWordsAndBuffersOfALaunch(t *testing.T) {
+	t.Parallel()
 	for source, counts := range map[string][2]int{
 		"kernel k ( ) { }":                {0, 0},
 		"kernel k ( int n ) { }":          {1, 0},
@@ -140,6 +142,7 @@ func TestWordsAndBuffersOfALaunch(t *testing.T) {
 }
 
 func TestLengthsOfBuffers(t *testing.T) {
+	t.Parallel()
 	l := kernelWith(t, given(""))
 	for _, a := range []int{0, 1, 63, 64, 65, 66, 1000} {
 		for _, b := range []int{0, 1, 63, 64, 65, 66, 1000} {
@@ -154,6 +157,7 @@ func TestLengthsOfBuffers(t *testing.T) {
 }
 
 func TestLaunchesOfKernelsWithoutTypes(t *testing.T) {
+	t.Parallel()
 	for _, fault := range faultyStatements {
 		l := impl.ReadKernel(given(fault.text)).Nodes
 		if len(l) == 0 {
@@ -171,6 +175,7 @@ func TestLaunchesOfKernelsWithoutTypes(t *testing.T) {
 
 // Words and buffers belong to parameters by their order, each of its own sort.
 func TestParametersInMixedOrder(t *testing.T) {
+	t.Parallel()
 	l := kernelWith(t, "kernel k ( buffer float c , int n , buffer int d , float f , int m , buffer int e ) { c [ 0 ] = f ; c [ 1 ] = n ; d [ 0 ] = n ; d [ 1 ] = m ; e [ 0 ] = m - n ; e [ 1 ] = d [ 2 ] ; }")
 	x := impl.Launch{Groups: 1, Size: 1, Words: []uint32{7, threeHalves, 9}, Buffers: [][]uint32{{0, 0}, {1, 2, 3}, {4, 5, 6}}}
 	got := impl.RunKernel(l, x)
@@ -181,6 +186,7 @@ func TestParametersInMixedOrder(t *testing.T) {
 }
 
 func TestWhatEachThreadKnows(t *testing.T) {
+	t.Parallel()
 	own := "a [ tid ( ) ] = tid ( ) * 1000 + group ( ) * 100 + local ( ) * 10 + size ( ) ;"
 	leaves(t, around(2, 3, 9, 9, 9, 9, 9, 9, 9), own, "3 1013 2023 3103 4113 5123 9 | 0.5 2 -3.25 | 6")
 	leaves(t, around(3, 2, 9, 9, 9, 9, 9, 9, 9), own, "2 1012 2102 3112 4202 5212 9 | 0.5 2 -3.25 | 6")
@@ -195,6 +201,7 @@ func TestWhatEachThreadKnows(t *testing.T) {
 }
 
 func TestNamesAreGivenValues(t *testing.T) {
+	t.Parallel()
 	leavesA(t, "let x = 3 ; a [ 0 ] = x ; x = x + 4 ; a [ 1 ] = x ; x = 0 - x ; a [ 2 ] = x ;", "3 7 -7 0", 6)
 	leavesA(t, "let x = n ; let y = x * x ; x = y + x ; a [ y - 25 ] = x ;", "30 0 0 0", 4)
 	leavesA(t, "let p = true ; if p { a [ 0 ] = 1 ; } p = n < 5 ; if p { a [ 1 ] = 1 ; } if ! p { a [ 2 ] = 1 ; }", "1 0 1 0", 7)
@@ -206,6 +213,7 @@ func TestNamesAreGivenValues(t *testing.T) {
 // A whole number is made a float where the name or the buffer is one, and
 // nowhere else.
 func TestWholeNumbersGivenToFloats(t *testing.T) {
+	t.Parallel()
 	leaves(t, around(1, 1), "let x = 0.5 ; x = 7 ; b [ 0 ] = x ; b [ 1 ] = n ; x = 16777217 ; b [ 2 ] = x ;", " | 7 5 1.6777216e+07 | 6")
 	leaves(t, around(1, 1), "let x = 7 ; b [ 0 ] = x / 2 ; let y = 7.0 ; b [ 1 ] = y / 2 ; y = x / 2 ; b [ 2 ] = y ;", " | 3 3.5 3 | 6")
 	leaves(t, around(1, 1), "let x = f ; x = 0 - n ; b [ 0 ] = x ; x = x / 2 ; b [ 1 ] = x ; b [ 2 ] = 0 - 1 ;", " | -5 -2.5 -1 | 6")
@@ -221,6 +229,7 @@ func TestWholeNumbersGivenToFloats(t *testing.T) {
 
 // Words of a launch are taken bit by bit, NaNs of any sort among them.
 func TestWordsAreKeptBitByBit(t *testing.T) {
+	t.Parallel()
 	l := kernelWith(t, given("a [ 0 ] = n ; b [ 0 ] = f ; b [ 1 ] = b [ 2 ] ; let x = b [ 3 ] ; b [ 2 ] = x ; x = f ; b [ 4 ] = - x ; b [ 5 ] = x + 0 ; a [ 1 ] = a [ 2 ] ;"))
 	x := impl.Launch{Groups: 1, Size: 1, Words: []uint32{minus, 0x7f800001}, Buffers: [][]uint32{{0, 0, 0xfedcba98}, {0, 0, 0xffffffff, 0xffc00001, 0, 0}}}
 	want := impl.Ran{Buffers: [][]uint32{{minus, 0xfedcba98, 0xfedcba98}, {0x7f800001, 0xffffffff, 0xffc00001, 0xffc00001, impl.TheNaN, impl.TheNaN}}, Steps: 9}
@@ -231,6 +240,7 @@ func TestWordsAreKeptBitByBit(t *testing.T) {
 }
 
 func TestPlacesThatAreNotThere(t *testing.T) {
+	t.Parallel()
 	for _, place := range []string{"0 - 1", "4", "5", "64", "65", "256", "65536", "2147483647", "0 - 2147483647", "0 - 2147483647 - 1", "0 - 4", "n - 6", "1 << 31", "16777216", "tid ( ) - 1", "a [ 0 ] - 1"} {
 		leavesA(t, "a [ "+place+" ] = 7 ;", "0 0 0 0", 1)
 		leavesA(t, "a [ 1 ] = 7 ; a [ 1 ] = a [ "+place+" ] ; a [ 2 ] = 1 + a [ "+place+" ] ;", "0 0 1 0", 3)
@@ -245,6 +255,7 @@ func TestPlacesThatAreNotThere(t *testing.T) {
 
 // The place of one buffer is none of another one's.
 func TestBuffersAreApart(t *testing.T) {
+	t.Parallel()
 	leaves(t, around(1, 1, 1, 2), "b [ 2 ] = a [ 1 ] ; a [ 2 ] = 5 ; a [ 0 ] = int ( b [ 0 ] + b [ 1 ] + b [ 2 ] ) ;", "4 2 | 0.5 2 2 | 3")
 	same := []uint32{1, 2, 3}
 	x := impl.Launch{Groups: 1, Size: 1, Words: []uint32{0, 0}, Buffers: [][]uint32{same, same}}
@@ -255,6 +266,7 @@ func TestBuffersAreApart(t *testing.T) {
 }
 
 func TestBothBlocksOfAnIf(t *testing.T) {
+	t.Parallel()
 	leavesA(t, "if n == 5 { a [ 0 ] = 1 ; } else { a [ 1 ] = 1 ; }", "1 0 0 0", 2)
 	leavesA(t, "if n != 5 { a [ 0 ] = 1 ; } else { a [ 1 ] = 1 ; }", "0 1 0 0", 2)
 	leavesA(t, "if n == 5 { a [ 0 ] = 1 ; a [ 1 ] = 2 ; } a [ 2 ] = 3 ;", "1 2 3 0", 4)
@@ -270,6 +282,7 @@ func TestBothBlocksOfAnIf(t *testing.T) {
 
 // Both operands are reckoned always, also where one would do.
 func TestBothOperandsAreReckoned(t *testing.T) {
+	t.Parallel()
 	x := around(1, 2, 0, 0, 0, 0)
 	for _, sign := range []string{"&&", "||"} {
 		for _, first := range []string{"true", "false"} {
@@ -283,6 +296,7 @@ func TestBothOperandsAreReckoned(t *testing.T) {
 }
 
 func TestLoopsTakeEachNumber(t *testing.T) {
+	t.Parallel()
 	leavesA(t, "for i in 0 .. 4 { a [ i ] = i * i ; }", "0 1 4 9", 9)
 	leavesA(t, "for i in 1 .. 3 { a [ i ] = 7 ; }", "0 7 7 0", 5)
 	leavesA(t, "for i in 0 - 2 .. 2 { a [ 0 ] = a [ 0 ] + 1 ; a [ 1 ] = a [ 1 ] + i ; }", "4 -2 0 0", 13)
@@ -293,6 +307,7 @@ func TestLoopsTakeEachNumber(t *testing.T) {
 }
 
 func TestLoopsThatDoTheirBlockNoTime(t *testing.T) {
+	t.Parallel()
 	leavesA(t, "for i in 0 .. 0 { a [ 0 ] = 1 ; }", "0 0 0 0", 1)
 	leavesA(t, "for i in 3 .. 2 { a [ 0 ] = 1 ; }", "0 0 0 0", 1)
 	leavesA(t, "for i in 3 .. 3 { a [ 0 ] = 1 ; } a [ 1 ] = 2 ;", "0 2 0 0", 2)
@@ -302,6 +317,7 @@ func TestLoopsThatDoTheirBlockNoTime(t *testing.T) {
 
 // Bounds are reckoned once, whatever the block does to what they stand on.
 func TestBoundsAreReckonedOnce(t *testing.T) {
+	t.Parallel()
 	leavesA(t, "let m = 3 ; for i in 0 .. m { m = m + 1 ; a [ 0 ] = m ; }", "6 0 0 0", 11)
 	leavesA(t, "let m = 3 ; for i in 0 .. m { m = 0 ; a [ i ] = 1 ; }", "1 1 1 0", 11)
 	leavesA(t, "let m = 0 ; for i in m .. 2 { m = 7 ; a [ i ] = 1 ; }", "1 1 0 0", 8)
@@ -313,6 +329,7 @@ func TestBoundsAreReckonedOnce(t *testing.T) {
 // A loop's name is set anew each time, also by a loop of the same name further
 // on.
 func TestLoopsSetTheirNameAnew(t *testing.T) {
+	t.Parallel()
 	leavesA(t, "for i in 0 .. 2 { let x = i ; x = x + 5 ; a [ i ] = x + i ; } for i in 2 .. 4 { a [ i ] = i ; }", "5 7 2 3", 14)
 	leavesA(t, "for i in 0 .. 2 { for j in 5 .. 7 { a [ i ] = a [ i ] * 10 + j ; } a [ i + 2 ] = i ; }", "56 56 0 1", 15)
 	leavesA(t, "for i in 0 .. 2 { if i == 0 { let x = 9 ; a [ 0 ] = x ; } if true { let x = 1 ; x = x + 1 ; a [ i + 1 ] = x ; } }", "9 2 2 0", 15)
@@ -321,6 +338,7 @@ func TestLoopsSetTheirNameAnew(t *testing.T) {
 }
 
 func TestBoundsAtTheEndsOfWholeNumbers(t *testing.T) {
+	t.Parallel()
 	least := "0 - 2147483647 - 1"
 	leavesA(t, "for i in 2147483646 .. 2147483647 { a [ 0 ] = a [ 0 ] + 1 ; a [ 1 ] = i ; }", "1 2147483646 0 0", 4)
 	leavesA(t, "for i in 2147483644 .. 2147483647 { a [ 0 ] = a [ 0 ] + 1 ; a [ 1 ] = i ; }", "3 2147483646 0 0", 10)
@@ -341,6 +359,7 @@ func TestBoundsAtTheEndsOfWholeNumbers(t *testing.T) {
 }
 
 func TestStepsOfEachStatement(t *testing.T) {
+	t.Parallel()
 	for statements, steps := range stepsOfStatements {
 		l := kernelWith(t, given(statements))
 		if got := impl.RunKernel(l, around(1, 1, 0, 0, 0)); got.Steps != steps || got.Code != 0 {
@@ -376,6 +395,7 @@ var stepsOfStatements = map[string]int{
 // Just as many steps as there may be, and one more, whatever takes the last
 // one.
 func TestTheLastStep(t *testing.T) {
+	t.Parallel()
 	x := around(1, 1, 0, 0, 0)
 	for statements, steps := range stepsOfStatements {
 		for _, form := range []string{"for i in 0 .. # { } @", "@ for i in 0 .. # { }", "for i in 0 .. # { } barrier ; @", "@ barrier ; for i in 0 .. # { }"} {
@@ -397,6 +417,7 @@ func TestTheLastStep(t *testing.T) {
 
 // The steps of all threads add up, those of all parts, too.
 func TestStepsOfManyThreads(t *testing.T) {
+	t.Parallel()
 	for _, c := range [][3]int{{4, 8, 124}, {4, 1, 999}, {1, 8, 499}, {2, 4, 499}, {4, 5, 199}, {1, 5, 799}} {
 		x := around(c[0], c[1], 0)
 		turns := strconv.Itoa(c[2])
@@ -415,6 +436,7 @@ func TestStepsOfManyThreads(t *testing.T) {
 
 // Loops within one another that would never end.
 func TestLoopsOfThousandsOfMillions(t *testing.T) {
+	t.Parallel()
 	great := "0 - 2147483647 .. 2147483647"
 	for _, statements := range []string{
 		"for i in " + great + " { for j in " + great + " { for l in " + great + " { a [ 0 ] = 1 ; } } }",
@@ -429,6 +451,7 @@ func TestLoopsOfThousandsOfMillions(t *testing.T) {
 }
 
 func TestABarrierPartsTheBlock(t *testing.T) {
+	t.Parallel()
 	meet := "a [ tid ( ) ] = tid ( ) + 1 ; # a [ 4 + tid ( ) ] = a [ ( tid ( ) + 1 ) % 4 ] ;"
 	leaves(t, around(1, 4, make([]int, 8)...), strings.Replace(meet, "#", "barrier ;", 1), "1 2 3 4 2 3 4 1 | 0.5 2 -3.25 | 8")
 	leaves(t, around(1, 4, make([]int, 8)...), strings.Replace(meet, "#", "", 1), "1 2 3 4 0 0 0 1 | 0.5 2 -3.25 | 8")
@@ -442,6 +465,7 @@ func TestABarrierPartsTheBlock(t *testing.T) {
 }
 
 func TestBarriersAtTheEndsAndSideBySide(t *testing.T) {
+	t.Parallel()
 	order := "a [ 0 ] = a [ 0 ] * 10 + tid ( ) + 1 ;"
 	for _, form := range []string{"barrier ; # @", "# @ barrier ;", "barrier ; # @ barrier ;", "barrier ; barrier ; # @ barrier ; barrier ;"} {
 		leaves(t, around(1, 2, 0), strings.NewReplacer("#", order, "@", order).Replace(form), "1122 | 0.5 2 -3.25 | 4")
@@ -459,6 +483,7 @@ func TestBarriersAtTheEndsAndSideBySide(t *testing.T) {
 
 // Names keep their values from one part to the next, in each thread its own.
 func TestNamesBehindABarrier(t *testing.T) {
+	t.Parallel()
 	leaves(t, around(1, 3, 0, 0, 0), "let x = tid ( ) * 2 ; barrier ; a [ tid ( ) ] = x ; x = x + 1 ; barrier ; a [ tid ( ) ] = a [ tid ( ) ] * 10 + x ;", "1 23 45 | 0.5 2 -3.25 | 12")
 	leaves(t, around(2, 2, 0, 0, 0, 0), "let x = tid ( ) + 1 ; let y = 0.5 ; barrier ; y = x ; barrier ; x = int ( y * 2 ) ; barrier ; a [ tid ( ) ] = x ;", "2 4 6 8 | 0.5 2 -3.25 | 20")
 	leaves(t, around(1, 2, 0, 0), "let p = tid ( ) == 0 ; barrier ; let x = 5 ; if p { x = 6 ; } barrier ; a [ tid ( ) ] = x ;", "6 5 | 0.5 2 -3.25 | 9")
@@ -472,6 +497,7 @@ func toldOrder(l []impl.Node, x impl.Launch, groups, threads []int) string {
 }
 
 func TestOrdersOfGroupsAndThreads(t *testing.T) {
+	t.Parallel()
 	one := kernelWith(t, given("a [ 0 ] = a [ 0 ] * 10 + tid ( ) + 1 ;"))
 	two := kernelWith(t, given("a [ 0 ] = a [ 0 ] * 10 + tid ( ) + 1 ; barrier ; a [ 0 ] = a [ 0 ] * 10 + tid ( ) + 1 ;"))
 	for _, c := range []struct {
@@ -505,6 +531,7 @@ func TestOrdersOfGroupsAndThreads(t *testing.T) {
 }
 
 func TestOrdersThatAreNone(t *testing.T) {
+	t.Parallel()
 	l := kernelWith(t, given("a [ 0 ] = a [ 0 ] + 1 ;"))
 	x := around(3, 2, 0)
 	groups, threads := []int{1, 2, 0}, []int{1, 0}
@@ -563,6 +590,7 @@ func raceAt(t *testing.T, groups, size int, statements, want string) {
 }
 
 func TestRacesInOnePart(t *testing.T) {
+	t.Parallel()
 	raceAt(t, 1, 2, "let x = a [ 0 ] + a [ tid ( ) ] ;", "")
 	raceAt(t, 1, 2, "a [ tid ( ) ] = 1 ;", "")
 	raceAt(t, 1, 2, "a [ 1 ] = 1 ;", "0 1: 0 1")
@@ -577,6 +605,7 @@ func TestRacesInOnePart(t *testing.T) {
 }
 
 func TestRacesInTwoParts(t *testing.T) {
+	t.Parallel()
 	raceAt(t, 1, 2, "a [ tid ( ) ] = 1 ; barrier ; let x = a [ 1 - tid ( ) ] ;", "")
 	raceAt(t, 1, 2, "let x = a [ 0 ] ; barrier ; if tid ( ) == 0 { a [ 0 ] = x ; } barrier ; x = a [ 0 ] ;", "")
 	raceAt(t, 1, 2, "if tid ( ) == 0 { a [ 0 ] = 1 ; } barrier ; if tid ( ) == 1 { a [ 0 ] = 1 ; }", "")
@@ -588,6 +617,7 @@ func TestRacesInTwoParts(t *testing.T) {
 
 // Threads of two groups race whatever the parts.
 func TestRacesOfTwoGroups(t *testing.T) {
+	t.Parallel()
 	raceAt(t, 2, 1, "let x = a [ 0 ] ;", "")
 	raceAt(t, 2, 1, "a [ tid ( ) ] = a [ tid ( ) ] + 1 ;", "")
 	raceAt(t, 2, 1, "a [ 0 ] = 1 ;", "0 0: 0 1")
@@ -602,6 +632,7 @@ func TestRacesOfTwoGroups(t *testing.T) {
 
 // Of more than two threads the two least.
 func TestTheTwoLeastThatRace(t *testing.T) {
+	t.Parallel()
 	raceAt(t, 1, 8, "a [ 2 ] = 1 ;", "0 2: 0 1")
 	raceAt(t, 4, 8, "a [ 2 ] = 1 ;", "0 2: 0 1")
 	raceAt(t, 1, 8, "if tid ( ) >= 5 { a [ 2 ] = 1 ; }", "0 2: 5 6")
@@ -617,6 +648,7 @@ func TestTheTwoLeastThatRace(t *testing.T) {
 
 // By buffer, then by place; whatever place was touched first.
 func TestRacesInOrder(t *testing.T) {
+	t.Parallel()
 	raceAt(t, 1, 2, "b [ 2 ] = 1 ; a [ 3 ] = 1 ; b [ 0 ] = 1 ; a [ 0 ] = 1 ; a [ 1 ] = 2 ;", "0 0: 0 1, 0 1: 0 1, 0 3: 0 1, 1 0: 0 1, 1 2: 0 1")
 	raceAt(t, 1, 2, "for i in 0 .. 4 { a [ 3 - i ] = i ; b [ 3 - i ] = i ; }", "0 0: 0 1, 0 1: 0 1, 0 2: 0 1, 0 3: 0 1, 1 0: 0 1, 1 1: 0 1, 1 2: 0 1")
 	raceAt(t, 2, 2, "b [ local ( ) ] = 1 ; a [ group ( ) ] = 1 ;", "0 0: 0 1, 0 1: 2 3, 1 0: 0 2, 1 1: 1 3")
@@ -630,6 +662,7 @@ func TestRacesInOrder(t *testing.T) {
 // Places that are not there do not count; what hangs on another thread's words
 // does, as the run goes.
 func TestRacesAtPlacesThatAreNotThere(t *testing.T) {
+	t.Parallel()
 	for _, place := range []string{"4", "0 - 1", "64", "2147483647", "0 - 2147483647 - 1", "a [ 0 ] - 1"} {
 		raceAt(t, 2, 2, "a [ "+place+" ] = 1 ; let x = a [ "+place+" ] ;", "")
 	}
@@ -642,6 +675,7 @@ func TestRacesAtPlacesThatAreNotThere(t *testing.T) {
 // Reads count wherever an expression stands: in bounds, conditions, places and
 // what is stored or set.
 func TestReadsThatRace(t *testing.T) {
+	t.Parallel()
 	for _, reads := range []string{"let x = a [ 1 ] ;", "let x = 0 ; x = - a [ 1 ] ;", "a [ 2 ] = a [ 1 ] ;", "a [ a [ 1 ] + 2 ] = 0 ;", "if a [ 1 ] == 0 { }", "if ! ( a [ 1 ] == 0 ) { } else { }", "for i in a [ 1 ] .. 0 { }", "for i in 0 .. a [ 1 ] { }", "let x = a [ a [ 1 ] + 3 ] ;", "let x = fma ( 1 , 2 , a [ 1 ] ) ;", "let x = false && a [ 1 ] == 1 ;", "let x = true || a [ 1 ] == 1 ;", "b [ 1 ] = a [ 1 ] ;"} {
 		raceAt(t, 1, 2, "if tid ( ) == 0 { a [ 1 ] = 0 ; } else { "+reads+" }", "0 1: 0 1")
 		raceAt(t, 1, 2, "if tid ( ) == 0 { a [ 1 ] = 0 ; } barrier ; if tid ( ) == 1 { "+reads+" }", "")
@@ -649,6 +683,7 @@ func TestReadsThatRace(t *testing.T) {
 }
 
 func TestNoRacesBesideACode(t *testing.T) {
+	t.Parallel()
 	raceAt(t, 1, 2, "a [ 0 ] = 1 ; for i in 0 .. 2000 { }", "0 and false")
 	raceAt(t, 5, 2, "a [ 0 ] = 1 ;", "0 and false")
 	raceAt(t, 1, 0, "a [ 0 ] = 1 ;", "0 and false")
@@ -673,6 +708,7 @@ func watched(t *testing.T, x impl.Launch, statements string, tid int, name strin
 }
 
 func TestWatchedNames(t *testing.T) {
+	t.Parallel()
 	x := around(2, 2, 10, 20, 30, 40)
 	for tid := range 4 {
 		watched(t, x, "let x = tid ( ) ; let y = 1 ; x = x * 2 ; x = 7 ;", tid, "x", 'i', strings.Join([]string{strconv.Itoa(tid), strconv.Itoa(tid * 2), "7"}, " "))
@@ -689,6 +725,7 @@ func TestWatchedNames(t *testing.T) {
 }
 
 func TestWatchedLoops(t *testing.T) {
+	t.Parallel()
 	x := around(1, 2, 0)
 	watched(t, x, "for i in 2 .. 5 { }", 1, "i", 'i', "2 3 4")
 	watched(t, x, "for i in 0 - 2 .. 1 { }", 1, "i", 'i', "-2 -1 0")
@@ -701,6 +738,7 @@ func TestWatchedLoops(t *testing.T) {
 
 // A name that stands in several blocks is one here.
 func TestWatchedInSeveralBlocks(t *testing.T) {
+	t.Parallel()
 	x := around(1, 2, 0)
 	both := "if tid ( ) == 0 { let x = 1 ; x = 2 ; } else { let x = 0.5 ; } let x = 3 ; x = x + 1 ;"
 	watched(t, x, both, 0, "x", 'i', "1 2 3 4")
@@ -711,6 +749,7 @@ func TestWatchedInSeveralBlocks(t *testing.T) {
 }
 
 func TestWatchedWhereNothingIsGiven(t *testing.T) {
+	t.Parallel()
 	x := around(1, 2, 0)
 	watched(t, x, "if tid ( ) == 1 { let x = 1 ; }", 0, "x", 'i', "")
 	watched(t, x, "if tid ( ) == 1 { let x = 1 ; }", 1, "x", 'i', "1")
@@ -719,6 +758,7 @@ func TestWatchedWhereNothingIsGiven(t *testing.T) {
 }
 
 func TestWatchedThatAreNone(t *testing.T) {
+	t.Parallel()
 	statements := "let x = 1 ; for i in 0 .. 2 { } a [ 0 ] = n ;"
 	x := around(2, 3, 0)
 	for _, tid := range []int{-1, -6, 6, 7, 1 << 32, -1 << 32, math.MinInt64, math.MaxInt64} {

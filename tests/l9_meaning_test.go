@@ -99,6 +99,7 @@ func (r *ranTally) count(p *play) {
 }
 
 func TestRunsOfAnyKernels(t *testing.T) {
+	t.Parallel()
 	c := newChance(145)
 	tally := ranTally{}
 	for n := range 600 {
@@ -111,6 +112,7 @@ func TestRunsOfAnyKernels(t *testing.T) {
 }
 
 func TestRunsOfCalmKernels(t *testing.T) {
+	t.Parallel()
 	c := newChance(146)
 	tally := ranTally{}
 	for n := range 300 {
@@ -123,6 +125,7 @@ func TestRunsOfCalmKernels(t *testing.T) {
 }
 
 func TestRunsOfTangledKernels(t *testing.T) {
+	t.Parallel()
 	c := newChance(147)
 	tally := ranTally{}
 	for n := range 250 {
@@ -136,6 +139,7 @@ func TestRunsOfTangledKernels(t *testing.T) {
 
 // Numbers, bools and places as they come, of any size.
 func TestRunsOfWildKernels(t *testing.T) {
+	t.Parallel()
 	c := newChance(148)
 	for n := range 500 {
 		l := c.kernelWithTypes(n%60, 0).nodes()
@@ -144,6 +148,7 @@ func TestRunsOfWildKernels(t *testing.T) {
 }
 
 func TestRunsInAnyOrder(t *testing.T) {
+	t.Parallel()
 	c := newChance(149)
 	unlike := 0
 	for n := range 500 {
@@ -169,6 +174,7 @@ func TestRunsInAnyOrder(t *testing.T) {
 
 // Launches with one thing changed.
 func TestLaunchesByChance(t *testing.T) {
+	t.Parallel()
 	c := newChance(150)
 	good := 0
 	for n := range 3000 {
@@ -234,6 +240,7 @@ func noRacesNorWords(t *testing.T, l []impl.Node, x impl.Launch) {
 
 // Every operation at operands of every row of types, in a thread.
 func TestThreadsReckonEveryOperation(t *testing.T) {
+	t.Parallel()
 	c := newChance(151)
 	forms := map[rune][]string{
 		'i': {"n", "a [ 1 ]", "tid ( )", "- 7"},
@@ -272,6 +279,7 @@ func TestThreadsReckonEveryOperation(t *testing.T) {
 
 // Steps of drawn loops, around as many as there may be.
 func TestRunsNearTheLastStep(t *testing.T) {
+	t.Parallel()
 	c := newChance(152)
 	codes := [3]int{}
 	for n := range 100 {
@@ -299,6 +307,7 @@ func TestRunsNearTheLastStep(t *testing.T) {
 
 // Texts that are no name of a kernel's, and tids that are none.
 func TestWatchingByChance(t *testing.T) {
+	t.Parallel()
 	c := newChance(153)
 	for n := range 300 {
 		l := c.tameKernel(5 + n%60)

@@ -36,6 +36,7 @@ func sameDoing(t *testing.T, c chance, l, folded []impl.Node, x impl.Launch) imp
 
 // Promise 6: a folded kernel does the same, by as many steps.
 func TestPromise6FoldedKernelsDoTheSame(t *testing.T) {
+	t.Parallel()
 	c := newChance(154)
 	changed, codes := 0, [3]int{}
 	for n := range 900 {
@@ -69,6 +70,7 @@ func TestPromise6FoldedKernelsDoTheSame(t *testing.T) {
 // Promise 6: edges of what is folded, where it is written down, counted by or
 // chosen by.
 func TestPromise6FoldedEdges(t *testing.T) {
+	t.Parallel()
 	c := newChance(155)
 	for _, text := range []string{"1 + 2", "3 - 8", "0 - 2147483647 - 1", "- ( 0 - 2147483647 - 1 )", "7 / 0", "- 7 % 3", "1 << 33", "abs ( - 5 )", "int ( 2.5 )", "int ( 999999999.0 * 10 )", "min ( 2 , - 2 ) - - 3", "- 0", "2147483647 + 1", "- - 2", "( 1 + 1 ) * tid ( ) + ( 2 - 2 )"} {
 		for _, form := range []string{"a [ 0 ] = # ;", "a [ # ] = 7 ;", "b [ 1 ] = # ;", "let x = 0.5 ; x = # ; b [ 0 ] = x / 2 ;", "for i in # .. ( # ) + 2 { a [ i ] = i ; }", "if # < 2 && 1 == 1 { a [ 1 ] = 1 ; } else { a [ 2 ] = 1 ; }", "a [ 3 ] = a [ ( # ) - 1 ] ;", "b [ 2 ] = fma ( # , 1.5 , f ) ;"} {
@@ -112,6 +114,7 @@ func sameInGroups(t *testing.T, l []impl.Node, x impl.Launch) int {
 // Promise 8: in a run without races a name that does not vary takes the same
 // values in all threads of a group.
 func TestPromise8WhatDoesNotVaryIsTheSame(t *testing.T) {
+	t.Parallel()
 	c := newChance(156)
 	runs, taken, loads := 0, 0, 0
 	for n := range 600 {
@@ -145,6 +148,7 @@ func TestPromise8WhatDoesNotVaryIsTheSame(t *testing.T) {
 // Promise 8: what all threads read behind a barrier, in conditions, bounds and
 // places.
 func TestPromise8ReadBehindABarrier(t *testing.T) {
+	t.Parallel()
 	x := around(1, 4, 3, 1, 2, 0)
 	for _, statements := range []string{
 		"a [ tid ( ) ] = tid ( ) * 3 ; barrier ; let x = a [ 1 ] + a [ 2 ] ; let y = a [ x - 7 ] ;",
@@ -191,6 +195,7 @@ func turnedRound(n int) []int {
 
 // Promise 9: what has no races leaves the same in every order.
 func TestPromise9NoRacesNoOrder(t *testing.T) {
+	t.Parallel()
 	c := newChance(157)
 	runs, changed, threads := 0, 0, 0
 	for n := range 1500 {
@@ -223,6 +228,7 @@ func TestPromise9NoRacesNoOrder(t *testing.T) {
 
 // Promise 9: every order of a few groups and threads.
 func TestPromise9EveryOrder(t *testing.T) {
+	t.Parallel()
 	orders := func(n int) [][]int {
 		l := [][]int{{}}
 		for i := range n {
@@ -260,6 +266,7 @@ func TestPromise9EveryOrder(t *testing.T) {
 
 // Promise 9: where an order leaves something else two threads race.
 func TestPromise9WhatOrdersShowIsARace(t *testing.T) {
+	t.Parallel()
 	c := newChance(158)
 	shown := 0
 	for n := range 600 {
@@ -285,6 +292,7 @@ func TestPromise9WhatOrdersShowIsARace(t *testing.T) {
 
 // Promise 25: lists that are no kernel with types.
 func TestPromise25RunsOfNoKernels(t *testing.T) {
+	t.Parallel()
 	l := impl.ReadKernel(typedAll).Nodes
 	x := around(2, 2, 1, 2, 3, 4)
 	if p := heldRun(t, l, x); p.code != 0 {
@@ -320,6 +328,7 @@ func TestPromise25RunsOfNoKernels(t *testing.T) {
 
 // Promise 25: launches that are not as said, and orders and names of any kind.
 func TestPromise25AnyLaunches(t *testing.T) {
+	t.Parallel()
 	l := kernelWith(t, given("let x = tid ( ) ; a [ x ] = x ; b [ x ] = f ;"))
 	for _, x := range []impl.Launch{
 		{}, {Groups: 1, Size: 1}, {Groups: 1, Size: 1, Words: []uint32{1, 2}}, {Groups: 1, Size: 1, Buffers: [][]uint32{{}, {}}},
@@ -364,6 +373,7 @@ func TestPromise25AnyLaunches(t *testing.T) {
 // Promise 25: nodes of any sort with launches for as many parameters as stand in
 // them.
 func TestPromise25RunsOfAnyNodes(t *testing.T) {
+	t.Parallel()
 	c := newChance(160)
 	some := func(n int) int {
 		if c.Intn(3) == 0 {
@@ -408,6 +418,7 @@ func launchUnchanged(kept, x impl.Launch) bool {
 // Promise 25: nothing is written into nodes, launches and orders, and no answer
 // shares their memory.
 func TestPromise25LaunchesAreKept(t *testing.T) {
+	t.Parallel()
 	c := newChance(161)
 	for n := range 300 {
 		l := c.tameKernel(5 + n%60)
@@ -485,6 +496,7 @@ func newBuffersOf(t *testing.T, x impl.Launch, run func(impl.Launch) impl.Ran) {
 
 // Promise 25: buffers that are answered are new memory.
 func TestPromise25NewBuffers(t *testing.T) {
+	t.Parallel()
 	c := newChance(162)
 	for n := range 200 {
 		l := c.calmKernel(n%2 == 0, 3, 4)
@@ -510,6 +522,7 @@ func TestPromise25NewBuffers(t *testing.T) {
 
 // Promise 25: what lies behind the lengths of lists is not looked at.
 func TestPromise25BehindLaunches(t *testing.T) {
+	t.Parallel()
 	c := newChance(163)
 	for n := range 200 {
 		l := c.tameKernel(5 + n%60)
@@ -536,6 +549,7 @@ func TestPromise25BehindLaunches(t *testing.T) {
 
 // Promise 25: answers hang on what is given alone, whatever was asked between.
 func TestPromise25RunsAgain(t *testing.T) {
+	t.Parallel()
 	c := newChance(164)
 	for n := range 100 {
 		l := c.tameKernel(10 + n%80)

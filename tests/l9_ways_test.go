@@ -11,6 +11,7 @@ import (
 // label.
 
 func TestStatementsAreClosures(t *testing.T) {
+	t.Parallel()
 	file, err := parser.ParseFile(token.NewFileSet(), "../impl/l9_meaning.go", nil, 0)
 	if err != nil {
 		t.Fatal(err)
