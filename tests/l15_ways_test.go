@@ -10,21 +10,21 @@ import (
 // How chapter 15 is built: a level embeds a set of lines, whose methods are promoted,
 // and policies stand behind an interface.
 
-// memoryFile: what chapter 15 declares, by names.
-type memoryFile struct {
+// layerFile: what the file of a chapter declares, by names.
+type layerFile struct {
 	*ast.File
 	structs    map[string]*ast.StructType
 	interfaces map[string]*ast.InterfaceType
 	methods    map[string]map[string]bool // by their type
 }
 
-func parsedMemory(t *testing.T) memoryFile {
+func parsedLayer(t *testing.T, name string) layerFile {
 	t.Helper()
-	file, err := parser.ParseFile(token.NewFileSet(), "../impl/l15_memory.go", nil, 0)
+	file, err := parser.ParseFile(token.NewFileSet(), "../impl/"+name, nil, 0)
 	if err != nil {
 		t.Fatal(err)
 	}
-	m := memoryFile{file, map[string]*ast.StructType{}, map[string]*ast.InterfaceType{}, map[string]map[string]bool{}}
+	m := layerFile{file, map[string]*ast.StructType{}, map[string]*ast.InterfaceType{}, map[string]map[string]bool{}}
 	ast.Inspect(file, func(n ast.Node) bool {
 		switch x := n.(type) {
 		case *ast.TypeSpec:
@@ -61,7 +61,7 @@ func receiverOf(f *ast.FuncDecl) (string, string) {
 }
 
 // embedded: the types that a struct embeds.
-func (m memoryFile) embedded(of string) []string {
+func (m layerFile) embedded(of string) []string {
 	var names []string
 	if m.structs[of] == nil {
 		return nil
@@ -75,7 +75,7 @@ func (m memoryFile) embedded(of string) []string {
 }
 
 // has: whether a type has a method, of its own or by what it embeds.
-func (m memoryFile) has(of, method string) bool {
+func (m layerFile) has(of, method string) bool {
 	if m.methods[of][method] {
 		return true
 	}
@@ -89,7 +89,7 @@ func (m memoryFile) has(of, method string) bool {
 
 func TestLevelsEmbedLines(t *testing.T) {
 	t.Parallel()
-	m := parsedMemory(t)
+	m := parsedLayer(t, "l15_memory.go")
 	promoted := map[string]bool{}
 	for _, d := range m.Decls {
 		f, ok := d.(*ast.FuncDecl)
@@ -118,7 +118,7 @@ func TestLevelsEmbedLines(t *testing.T) {
 
 func TestPoliciesStandBehindAnInterface(t *testing.T) {
 	t.Parallel()
-	m := parsedMemory(t)
+	m := parsedLayer(t, "l15_memory.go")
 	if len(m.interfaces) != 1 {
 		t.Fatalf("%d interfaces", len(m.interfaces))
 	}
